@@ -1,0 +1,1 @@
+"""Stopanywhere: a small language, its runs, and its way down to a small machine."""

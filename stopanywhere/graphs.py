@@ -1,0 +1,83 @@
+"""Ways in a graph, a dict from each thing to the list of those that it leads to."""
+
+
+def order_from(leads, first):
+    """The things that are come to from the first one, each ahead of those that it leads to, but for rings."""
+    found = []
+    met = {first: True}
+    coming = [(first, list(leads[first]))]
+    while coming:
+        thing, others = coming[-1]
+        if others:
+            other = others.pop()
+            if other not in met:
+                met[other] = True
+                coming.append((other, list(leads[other])))
+        else:
+            found.append(thing)
+            coming.pop()
+    return list(reversed(found))
+
+
+def nearest_ahead(leads, first):
+    """The dict from each thing that is come to, but the first one, to the last other one that is on all ways to it."""
+    order = order_from(leads, first)
+    places = {thing: at for at, thing in enumerate(order)}
+    leading = {thing: [] for thing in order}
+    for thing in order:
+        for other in leads[thing]:
+            leading[other].append(thing)
+    nearest = {first: first}
+    is_changed = True
+    while is_changed:
+        is_changed = False
+        for thing in order[1:]:
+            told = [other for other in leading[thing] if other in nearest]
+            found = told[0]
+            for other in told[1:]:
+                found = _on_both_ways(nearest, places, found, other)
+            if nearest.get(thing) != found:
+                nearest[thing] = found
+                is_changed = True
+    del nearest[first]
+    return nearest
+
+
+def _on_both_ways(nearest, places, one, other):
+    while one != other:
+        if places[one] > places[other]:
+            one = nearest[one]
+        else:
+            other = nearest[other]
+    return one
+
+
+def shortest_way(leads, first, last, shunned):
+    """A shortest list of things that lead from the first one to the last one and not over a shunned one, or None.
+
+    The last one may be the shunned one itself.
+    """
+    if first == last:
+        return [first]
+    if first == shunned:
+        return None
+    ahead = {first: first}
+    coming = [first]
+    while coming:
+        further = []
+        for thing in coming:
+            for other in leads[thing]:
+                if other not in ahead and (other == last or other != shunned):
+                    ahead[other] = thing
+                    further.append(other)
+        if last in ahead:
+            return _way_behind(ahead, first, last)
+        coming = further
+    return None
+
+
+def _way_behind(ahead, first, last):
+    way = [last]
+    while way[-1] != first:
+        way.append(ahead[way[-1]])
+    return list(reversed(way))

@@ -1,0 +1,60 @@
+"""Which units use which: orders and rings."""
+
+
+def order_by_uses(uses):
+    """The names of a dict from names to the names that they use, each behind those that it uses.
+
+    Always the least one that can come next; fewer than all if there is a ring.
+    """
+    found = []
+    ready = [name for name in sorted(uses) if not uses[name]]
+    while ready:
+        found.append(ready[0])
+        ready = [
+            name for name in sorted(uses) if name not in found and all([other in found for other in uses[name]])
+        ]
+    return tuple(found)
+
+
+def shortest_ring(uses):
+    """A shortest tuple of names of which each uses the next one and the last one the first, the least name first.
+
+    Of several the first by their names.
+    """
+    rings = []
+    for name in sorted(uses):
+        ring = _shortest_ring_from(uses, name)
+        if ring is not None:
+            rings.append((len(ring), ring))
+    _, ring = min(rings)
+    return ring
+
+
+def _shortest_ring_from(uses, first):
+    """The shortest ring through a name that goes over greater names alone, of several the first by their names."""
+    # Ways of one length come in the order of their names, so the first way to a name is the first one by names.
+    ways = [(first,)]
+    met = {first: True}
+    while ways:
+        longer = []
+        for way in ways:
+            if first in uses[way[-1]]:
+                return way
+            for name in sorted(set(uses[way[-1]])):
+                if name > first and name not in met:
+                    met[name] = True
+                    longer.append((*way, name))
+        ways = longer
+    return None
+
+
+def users_by_uses(uses, name):
+    """The ascending tuple of the names that come to a name by uses, one after another, without this one."""
+    found = {name: True}
+    size = 0
+    while size < len(found):
+        size = len(found)
+        for user in uses:
+            if any([other in found for other in uses[user]]):
+                found[user] = True
+    return tuple([user for user in sorted(found) if user != name])
