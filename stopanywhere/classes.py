@@ -14,7 +14,8 @@ def wanted_as(wants):
     """The dict from slots to the dicts of the kinds that they are wanted as."""
     found = {}
     for slot, kind in wants:
-        found.setdefault(slot, {})[kind] = True
+        kinds = found.setdefault(slot, {})
+        kinds[kind] = True
     return found
 
 

@@ -163,7 +163,7 @@ def _is_placed_for(place, registers):
 
 def _stands_in_registers(block):
     """Whether calls and ends take what they read from r0 on, and slots stand in copies and formulas alone."""
-    parameters, rows, end = block
+    _, rows, end = block
     for row in rows:
         if row[1] == "call" and (row[0] != "r0" or not _is_from_first(row[3])):
             return False
@@ -175,7 +175,7 @@ def _stands_in_registers(block):
         return False
     if end[0] == "jump" and read != []:
         return False
-    return not any([_is_slot(place) for place in read + [place for place, _ in parameters]])
+    return not any([_is_slot(place) for place in read])
 
 
 def _is_slot(place):

@@ -125,10 +125,8 @@ def narrowed(moment, chosen):
 
 
 def _are_told(frame, names):
-    if not is_list(names) or not all([isinstance(name, str) for name in names]):
-        return False
     told = [name for name, _ in frame[2]]
-    return all([name in told for name in names]) and first_again(names) is None
+    return is_list(names) and all([name in told for name in names]) and first_again(names) is None
 
 
 def fits(moment, other):

@@ -56,8 +56,9 @@ class Run:
         """Ends the last frame with a worth."""
         self.frames.pop()
         if self.frames:
-            self.frames[-1].handler = None
-            self.frames[-1].stack.append(worth)
+            frame = self.frames[-1]
+            frame.handler = None
+            frame.stack.append(worth)
             return "back"
         meeting = Meeting()
         picture = meeting.picture(worth)

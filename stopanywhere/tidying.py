@@ -11,14 +11,7 @@ ROOT = ""
 def tidied(code):
     """The code with its blocks and its places numbered in the order of being met first."""
     name, result, blocks = code
-    order = [0]
-    # The list grows while its items are gone through.
-    at = 0
-    while at < len(order):
-        for other in leads_to(blocks[order[at]][2]):
-            if other not in order:
-                order.append(other)
-        at += 1
+    order = _order_of_meeting(blocks)
     numbers = {number: at for at, number in enumerate(order)}
     given = [place for number in order for place in given_in(blocks[number])]
     others = {place: f"v{at}" for at, place in enumerate(given)}
@@ -29,6 +22,19 @@ def tidied(code):
         other_rows = tuple([row_with(row, others) for row in rows])
         found[numbers[number]] = (told, other_rows, end_with(end_leading(end, numbers), others))
     return name, result, found
+
+
+def _order_of_meeting(blocks):
+    """The blocks from block 0 on, each one's end gone through from left to right."""
+    order = [0]
+    at = 0
+    while at < len(order):
+        end = blocks[order[at]][2]
+        for other in leads_to(end):
+            if other not in order:
+                order.append(other)
+        at += 1
+    return order
 
 
 def arguments_given(blocks):

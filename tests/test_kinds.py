@@ -331,7 +331,8 @@ class AsTold(unittest.TestCase):
             self.assertFalse(self.told(self.table(q=kind, x=kind)))
             self.assertFalse(self.told(self.table(y=kind)))
         for table in (
-            self.table(p="v"), self.table(p="c"), self.table(p="u"), self.table(p=None), self.table(p=("number",)),
+            self.table(p="v"), self.table(p="c"), self.table(p="u"), self.table(p=None), self.table(p=("number",)), self.table(p=["number"]),
+            self.table(result={}), self.table(z=[]),
             self.table(z="number"), self.table(z="k"),
         ):
             self.assertFalse(self.told(table), table)

@@ -187,6 +187,7 @@ class FaultsOfStatements(unittest.TestCase):
         self.assertEqual(body("set p = p set h = h return u", parameters="p"), [
             ("h", 1, "unknown", "h"), ("h", 1, "unknown", "h"), ("h", 2, "unknown", "u"),
         ])
+        self.assertEqual(body("try a = h(c) else c: c return a", parameters="b"), [("h", 0, "unknown", "c")])
         self.assertEqual(body("try a = h() else b: a + b show b return a"), [
             ("h", 0, "unknown", "a"), ("h", 1, "unknown", "b"),
         ])

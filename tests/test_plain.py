@@ -168,6 +168,13 @@ class Failures(unittest.TestCase):
         self.assertEqual(of("try x = h(-2) else y: 99 return x", head)[1], ("returned", -21, ()))
         self.assertEqual(of("try x = g(1) else y: 99 return g(0 - x)", head)[1], ("failed", -10, (("f", 1), ("g", 2))))
 
+    def test_a_try_that_came_back_catches_no_more(self):
+        head = "unit u " + self.G + "function h(b) { try x = g(b) else y: y show g(0 - x) return x } "
+        self.assertEqual(of("let a = h(1) return a", head)[1], ("failed", -10, (("f", 0), ("h", 1), ("g", 2))))
+        self.assertEqual(of("let a = h(-1) return a", head), ([-1, 1, 10], ("returned", -1, ())))
+        # The outer try still catches what the inner one does not.
+        self.assertEqual(of("try a = h(1) else b: b * 3 return a", head)[1], ("returned", -30, ()))
+
     def test_one_event_however_many_frames_end(self):
         text = "unit u " + self.G + "function h(b) { return g(b) } function f() { try x = h(-1) else y: y return x }"
         self.assertEqual(words(text), ["point", "point", "point", "show", "point", "point", "back", "point"])

@@ -216,6 +216,30 @@ class Rules(unittest.TestCase):
             later = come_to(name) & set(listed[at:])
             self.assertEqual(later, set(), name)
 
+    def test_imports_name_the_file_that_defines(self):
+        for name, tree in self.each():
+            for node in tree.body:
+                if isinstance(node, ast.ImportFrom):
+                    other = tree_of(node.module.partition(".")[2])
+                    found = {inner.name for inner in other.body if isinstance(inner, (ast.FunctionDef, ast.ClassDef))}
+                    found |= {inner.targets[0].id for inner in other.body if isinstance(inner, ast.Assign)}
+                    self.assertEqual({alias.name for alias in node.names} - found, set(), (name, node.module))
+
+    def test_tables_are_only_read(self):
+        for name, tree in self.each():
+            tables = {
+                node.targets[0].id for node in tree.body
+                if isinstance(node, ast.Assign) and isinstance(node.value, (ast.Dict, ast.List))
+            }
+            above = {inner: node for node in ast.walk(tree) for inner in ast.iter_child_nodes(node)}
+            for node in ast.walk(tree):
+                if isinstance(node, ast.Name) and node.id in tables and isinstance(node.ctx, ast.Load):
+                    around = above[node]
+                    is_read = isinstance(around, ast.Subscript) and around.value is node
+                    is_read = is_read or isinstance(around, ast.Compare) or isinstance(around, (ast.For, ast.comprehension))
+                    is_asked = isinstance(around, ast.Attribute) and around.attr in ("get", "items", "keys", "values")
+                    self.assertTrue(is_read or is_asked, (name, node.lineno))
+
     def test_interface_is_defined_where_it_is_listed(self):
         for name, words in INTERFACE.items():
             tree = tree_of(name)
