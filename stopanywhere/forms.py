@@ -173,8 +173,6 @@ def _stands_in_registers(block):
     read = reads_of_end(end)
     if end[0] in ("return", "try") and not _is_from_first(read):
         return False
-    if end[0] == "jump" and read != []:
-        return False
     return not any([_is_slot(place) for place in read])
 
 
@@ -188,7 +186,10 @@ def _is_from_first(places):
 
 
 def _has_placed_parameters(blocks):
-    """Whether blocks have no parameters but r0, r1 .. of block 0 and r0 of the blocks of a try."""
+    """Whether blocks have no parameters but r0, r1 .. of block 0 and r0 of the blocks of a try.
+
+    So jumps have no arguments either.
+    """
     tried = {number: True for block in list(blocks.values()) for number in _tried_by(block[2])}
     for number in blocks:
         places = [place for place, _ in blocks[number][0]]

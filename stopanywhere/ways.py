@@ -1,8 +1,8 @@
 """Ways through code: what is held at a spot, one numbering, and parameters that others stand for."""
 
 from stopanywhere.blocks import given_in, leads_to
-from stopanywhere.errors import BadCode, BadPlace, BadScope, BadSpot
-from stopanywhere.forms import Scope, is_named, is_placed
+from stopanywhere.errors import BadCode, BadPlace, BadSpot
+from stopanywhere.forms import is_named, is_placed
 from stopanywhere.graphs import shortest_way
 from stopanywhere.holding import held_at_starts, held_behind
 from stopanywhere.tidying import standing_in, tidied, without_standing_in
@@ -11,7 +11,6 @@ from stopanywhere.values import ascending, is_number, is_number_between, is_tupl
 
 def kinds_at(code, scope, spot):
     """The ascending dict from the places that are held ahead of a spot to their kinds."""
-    _check_scope(scope)
     if not is_named(code, scope) and not is_placed(code, scope, 9):
         raise BadCode("neither named code nor placed code for 9 registers")
     _, _, blocks = code
@@ -23,7 +22,6 @@ def kinds_at(code, scope, spot):
 
 def way_without(code, scope, spot, place):
     """A shortest way to a spot on which a place is not given, None if every one gives it."""
-    _check_scope(scope)
     _check_named(code, scope)
     _, _, blocks = code
     _check_spot(blocks, spot)
@@ -40,14 +38,12 @@ def way_without(code, scope, spot, place):
 
 def tidy(code, scope):
     """The code with its blocks and its places numbered in the order of being met first."""
-    _check_scope(scope)
     _check_named(code, scope)
     return tidied(code)
 
 
 def are_alike(code, other, scope):
     """Whether two codes are equal but for the numbers of their blocks and places."""
-    _check_scope(scope)
     _check_named(code, scope)
     _check_named(other, scope)
     return tidied(code) == tidied(other)
@@ -55,21 +51,14 @@ def are_alike(code, other, scope):
 
 def stand_ins(code, scope):
     """The dict from parameters to the places that stand for them, with all keys that there can be."""
-    _check_scope(scope)
     _check_named(code, scope)
     return standing_in(code)
 
 
 def without_stand_ins(code, scope):
     """The code without the parameters that other places stand for."""
-    _check_scope(scope)
     _check_named(code, scope)
     return without_standing_in(code, standing_in(code))
-
-
-def _check_scope(scope):
-    if not isinstance(scope, Scope):
-        raise BadScope("no scope")
 
 
 def _check_named(code, scope):

@@ -213,6 +213,9 @@ class ScopesOfCodes(unittest.TestCase):
         self.assertIsNone(scope_of_codes([], [with_block(NAMED, 0, parameters=tuple((f"v{k}", "e") for k in range(4)))]))
         self.assertIsNotNone(scope_of_codes([], [with_block(NAMED, 0, parameters=tuple((f"v{k}", "e") for k in range(3)))]))
         self.assertIsNone(scope_of_codes([], [("f", "truth", NAMED[2])]))
+        for place, is_one in (("r8", True), ("r9", False), ("s999", True), ("s1000", False), ("v9999", True), ("v10000", False)):
+            found = scope_of_codes([], [("f", "number", {0: ((), (), ("return", place))})])
+            self.assertEqual(found is not None, is_one, place)
         self.assertIsNone(scope_of_codes([], [("of", "number", NAMED[2])]))
 
     def test_wrong_kinds(self):
@@ -282,6 +285,13 @@ class Named(unittest.TestCase):
         self.right(simple)
         self.wrong(("f", "number", {0: simple[2][0], True: simple[2][1]}), ("f", "number", {False: simple[2][0], 1: simple[2][1]}))
         self.wrong(with_block(simple, 0, end=("jump", True, ())), with_block(simple, 0, end=("jump", 10000, ())))
+        for number in (2, 9999, 10000, 10001):
+            other = ("f", "number", {0: simple[2][0][:2] + (("jump", number, ()),), number: simple[2][1]})
+            self.assertEqual(is_named(other, SCOPE), number < 10000)
+        for place in ("v01", "v10000", "v-1", "w5", "v", 5, None, "r0", "v5 "):
+            self.wrong(("f", "number", {
+                0: simple[2][0][:2] + (("jump", 1, ("v0",)),), 1: (((place, "number"),), simple[2][1][1], ("return", "v0")),
+            }))
 
     def test_where_ends_lead(self):
         self.wrong(
@@ -405,6 +415,7 @@ class Named(unittest.TestCase):
             ("r", ("make", "v", ())), ("c", ("make", "v", (("is", 1),))), ("c", ("make", "w", (("is", 1), ("is", 1)))),
             ("c", ("make", "w", (("is", 1), ("is", 1), ("is", 1)))), ("c", ("make", "w", [("is", 1), ("is", 1), ("lost",)])),
             ("c", ("make", "c", ())), ("c", ("make", "x", ())), ("c", ("make", "w", (("is", 1), ("of", "v1", 1, 0), ("lost",)))),
+            ("c", ("make", "v", (), 1)), ("c", ("make", "v")), ("truth", ("lost",)), (None, ("lost",)), ("of", ("lost",)),
             ("number", ("lost", 1)), ("number", "lost"), ("number", ("gone",)), ("number", ()), ("number", ["lost"]),
             ("c", ("make", "w", (("of", "v12", 1, 0), ("is", 1), ("lost",)))), ("number", None),
         ):
@@ -482,6 +493,43 @@ class Placed(unittest.TestCase):
         code = with_row(code, 0, 9, ("r5", "copy", "r5"))
         self.assertTrue(is_placed(code, three, 6))
         self.assertFalse(is_placed(with_block(code, 3, end=("try", "g", ("r0", "r2", "r1"), 5, 6)), three, 6))
+
+    def test_each_call_gives_and_takes_registers_from_the_first_on(self):
+        last = ("r0", "const", 1)
+        self.right(with_more(PLACED, 11, ("r0", "call", "h", ()), last))
+        self.right(with_more(PLACED, 11, ("r0", "copy", "r1"), ("r0", "call", "g", ("r0",)), last))
+        self.wrong(
+            with_more(PLACED, 11, ("r1", "call", "h", ()), last), with_more(PLACED, 11, ("s1", "call", "h", ()), last),
+            with_more(PLACED, 11, ("r0", "call", "g", ("r1",)), last),
+            with_more(PLACED, 11, ("r0", "call", "g", ("r2",)), last),
+        )
+        self.wrong(with_block(with_more(PLACED, 3, ("r1", "const", 1)), 3, end=("try", "g", ("r1",), 5, 6)))
+
+    def test_each_parameter_is_a_register_from_the_first_on(self):
+        scope = Scope([], {"f": (("number", "number"), "number")})
+
+        def simple(first, second, third, fourth=()):
+            """Block 0, the blocks of a try, and one to which these jump."""
+            rows = ((None, "mark", frames(0)), ("r0", "const", 1))
+            return "f", "number", {
+                0: (first, rows + (("r1", "const", 1),), ("try", "f", ("r0", "r1"), 1, 2)),
+                1: (second, rows, ("jump", 3, tuple(place for place, _ in fourth))),
+                2: (third, rows, ("jump", 3, tuple(place for place, _ in fourth))),
+                3: (fourth, rows, ("return", "r0")),
+            }
+
+        def of(*places):
+            return tuple((place, "number") for place in places)
+
+        self.assertTrue(is_placed(simple(of("r0", "r1"), of("r0"), of("r0")), scope, 9))
+        for code in (
+            simple(of("r1", "r0"), of("r0"), of("r0")), simple(of("r0", "r2"), of("r0"), of("r0")),
+            simple(of("r0", "s1"), of("r0"), of("r0")), simple(of("r0", "r0"), of("r0"), of("r0")),
+            simple(of("r0", "r1"), of("r1"), of("r0")), simple(of("r0", "r1"), of("r0"), of("s0")),
+            simple(of("r0", "r1"), of("r0"), of("r3")), simple(of("r0", "r1"), of("r0"), of("r0"), of("r0")),
+            simple(of("r0", "r1"), of("r0"), of("r0"), of("r0", "r1")),
+        ):
+            self.assertFalse(is_placed(code, scope, 9), code)
 
     def test_slots(self):
         self.right(with_more(PLACED, 11, ("s5", "copy", "r0"), ("r0", "copy", "s5")))

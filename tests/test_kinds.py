@@ -194,10 +194,34 @@ class Clashes(unittest.TestCase):
             self.assertTrue(is_clash(unit, {}, told))
         self.assertFalse(is_clash(unit, {}, ("r", "c", (place(0, 1, 2),))))
 
+    def test_the_shortest_of_all_kinds(self):
+        short = "function g(b) { show b match b { v { } } return 1 } "
+        long = "function f(a) { let x = a let y = x if y { } show a return 1 } "
+        for head in ("unit u choice c = v ", "unit u choice z = v "):
+            for text in (short + long, long + short):
+                unit = read_unit(head + text)
+                found = clash(unit, {})
+                self.assertEqual(len(found[2]), 3)
+                self.assertEqual(set(found[:2]), {"number", head[14]})
+                self.assertTrue(is_clash(unit, {}, found))
+        unit = read_unit(
+            "unit u choice c = v function f(a) { let x = a match x { v { } } show a return 1 } "
+            "function g(b) { show b if b { } return 1 }"
+        )
+        self.assertEqual(clash(unit, {})[:2], ("number", "truth"))
+
     def test_through_calls_of_own_functions_and_of_others(self):
         text = "unit u function f(a) { return g(a) } function g(b) { return not b } function h() { return 1 + f(2) }"
         unit = read_unit(text)
-        self.assertEqual(len(clash(unit, {})[2]), shortest(unit, {}))
+        found = clash(unit, {})
+        self.assertEqual(len(found[2]), shortest(unit, {}))
+        self.assertTrue(is_clash(unit, {}, found))
+        unit = read_unit("unit u function f() { if g() { } return g() } function g() { return h() } function h() { return 1 }")
+        found = clash(unit, {})
+        self.assertEqual(found, ("number", "truth", (
+            ("place", "h", 0, (1,)), ("result", "h"), ("place", "g", 0, (1,)), ("result", "g"), place(0, 1),
+        )))
+        self.assertTrue(is_clash(unit, {}, found))
         other = read_unit("unit u uses b function f() { show e(1, make v) return 1 }")
         self.assertEqual(clash(other, {"b": FACE}), ("number", "truth", (place(0, 1),)))
 

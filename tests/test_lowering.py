@@ -150,6 +150,24 @@ class NamedCode(Case):
                 self.same("function f(n, i) { let x = new r(n, 7) show long r(x) put r(x, i) = 9 show at r(x, i) return x }",
                           length, index)
 
+    def test_rows_of_rows_and_rows_that_lead_to_themselves(self):
+        head = "unit u choice c = v | o(d) | p(c, c) row d of c row e of d row t of truth "
+        outputs, end, _ = self.same(
+            "function f(n) { let x = new d(n, make v) let y = new e(2, x) put d(x, 0) = make o(x) "
+            "put e(y, 1) = new d(1, make p(make o(x), at d(x, 1))) put d(at e(y, 0), n - 1) = make p(make v, make o(at e(y, 1))) "
+            "show long d(at e(y, 0)) let z = new t(n, n < 3) put t(z, 1) = not at t(z, 0) if at t(z, 1) { show 1 } return y }",
+            3, head=head,
+        )
+        self.assertEqual((outputs, end), ([3, 1], ("returned", ("row", 0), (
+            ("e", (("row", 1), ("row", 2))),
+            ("d", (("o", (("row", 1),)), ("v", ()), ("p", (("v", ()), ("o", (("row", 2),)))))),
+            ("d", (("p", (("o", (("row", 1),)), ("v", ()))),)),
+        ))))
+        for number in (0, 1, 2):
+            self.same("function g(a) { put d(a, 0) = make o(a) put d(a, 1) = make v return a } "
+                      "function f(n) { let x = new d(n, make v) try y = g(x) else z: new d(z + 3, make o(x)) return y }",
+                      number, head=head)
+
     def test_ends(self):
         self.same("function f(n) { if n < 1 { return 1 } else { fail 2 } }", 0)
         self.same("function f(n) { if n < 1 { return 1 } else { fail 2 } }", 1)

@@ -101,6 +101,8 @@ class Expressions(Case):
         self.assertEqual(read_expression("(" * 12 + "f(a)" + ")" * 12), ("call", "f", (A,)))
         self.refused(read_expression, "(" * 12 + "f((a))", 1, 15, joined(wanted, ")"))
         self.assertEqual(read_expression("(" * 12 + "a" + ")" * 12 + "+" + "(" * 12 + "b" + ")" * 12), ("plus", A, B))
+        self.refused(read_expression, "(a) + (b) * " + "(" * 13, 1, 25, wanted)
+        self.refused(read_expression, "f((a)) + (b) * " + "(" * 13, 1, 28, wanted)
 
     def test_three_arguments_and_four(self):
         for head in ("f", "make f"):
@@ -175,6 +177,18 @@ fail -1
         self.assertEqual(block_text(()), "")
         self.assertEqual(read_block(""), ())
         self.assertEqual(read_block("\n "), ())
+
+    def test_expressions_of_statements_need_no_parentheses(self):
+        e = ("or", A, ("and", B, C))
+        for statement in (
+            ("let", "x", e), ("set", "x", e), ("put", "k", e, e, e), ("show", e), ("if", e, (), (("show", e),)),
+            ("while", e, ()), ("match", e, (("v", (), ()),)), ("return", e), ("fail", e),
+            ("try", "x", ("call", "f", (e, e)), "y", e),
+        ):
+            text = block_text((statement,))
+            outer = ("f(", "k(") if statement[0] in ("put", "try") else ()
+            self.assertEqual(text.count("("), len(outer[:1]), text)
+            self.assertEqual(read_block(text), (statement,))
 
     def test_four_branches_and_five(self):
         self.assertEqual(len(read_block("match a { v { } v { } v { } v { } }")[0][2]), 4)

@@ -146,7 +146,7 @@ class FunctionsAndUnits(unittest.TestCase):
             ("choice", "k", (("v", ("number",) * 4),)), ("choice", "k", (("v", ["number"]),)),
             ("choice", "k", (["v", ()],)), ("choice", "k", (("v",),)), ("choice", "k", (("v", (), ()),)),
             ("choice", "k", (("of", ()),)), ("choice", "truth", (("v", ()),)), ("choice", "k", (("v", ("of",)),)),
-            ("choice", "k", "v"), ("rows", "k", "number"), ["row", "k", "number"], ("row", "k", "number", ()), (), None,
+            ("choice", "k", "v"), ("rows", "k", "number"), ("rows", "k", (("v", ()),)), ["row", "k", "number"], ("row", "k", "number", ()), (), None,
         ):
             self.assertFalse(is_declaration(thing), thing)
 
