@@ -211,7 +211,7 @@ def _is_right(code, scope):
 
 
 def _is_own(code, scope):
-    """Whether the code is the function's, each block begins with a context row, and rows have as much as they name."""
+    """Whether the code is the function's, each block begins with a context row, and what rows name is there."""
     name, result, blocks = code
     kinds = tuple([kind for _, kind in blocks[0][0]])
     if scope.gives(name) != result or scope.takes(name) != kinds:
@@ -219,21 +219,18 @@ def _is_own(code, scope):
     for _, rows, _ in list(blocks.values()):
         if rows == () or not is_context(rows[0]):
             return False
-        if not all([_is_counted(row, name, scope) for row in rows]):
+        if not all([_is_known(row, name, scope) for row in rows]):
             return False
     return True
 
 
-def _is_counted(row, name, scope):
+def _is_known(row, name, scope):
+    """Whether the part, the kind of rows and the function that a row names by itself are there."""
     word = row[1]
     if is_context(row):
         return frames_of(row)[0][0] == name
-    if word == "make":
-        return len(row[3]) == len(scope.fields(row[2]))
     if word == "part":
         return row[3] < len(scope.fields(row[2]))
-    if word == "call":
-        return len(row[3]) == len(scope.takes(row[2]))
     if word in ("long", "new", "at", "put"):
         # The scope refuses what is no kind of rows.
         scope.item(row[2])

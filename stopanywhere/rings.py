@@ -19,7 +19,7 @@ def order_by_uses(uses):
 def shortest_ring(uses):
     """A shortest tuple of names of which each uses the next one and the last one the first, the least name first.
 
-    Of several the first by their names.
+    Of several the first by their names, so that the least name of each ring comes first.
     """
     rings = []
     for name in sorted(uses):
@@ -31,7 +31,7 @@ def shortest_ring(uses):
 
 
 def _shortest_ring_from(uses, first):
-    """The shortest ring through a name that goes over greater names alone, of several the first by their names."""
+    """The shortest ring through a name, of several the first by their names; None if there is none."""
     # Ways of one length come in the order of their names, so the first way to a name is the first one by names.
     ways = [(first,)]
     met = {first: True}
@@ -41,7 +41,7 @@ def _shortest_ring_from(uses, first):
             if first in uses[way[-1]]:
                 return way
             for name in sorted(set(uses[way[-1]])):
-                if name > first and name not in met:
+                if name not in met:
                     met[name] = True
                     longer.append((*way, name))
         ways = longer

@@ -213,6 +213,8 @@ class ScopesOfCodes(unittest.TestCase):
         self.assertIsNone(scope_of_codes([], [with_block(NAMED, 0, parameters=tuple((f"v{k}", "e") for k in range(4)))]))
         self.assertIsNotNone(scope_of_codes([], [with_block(NAMED, 0, parameters=tuple((f"v{k}", "e") for k in range(3)))]))
         self.assertIsNone(scope_of_codes([], [("f", "truth", NAMED[2])]))
+        for kind in ("truth", "if", None, 1, "", ["number"]):
+            self.assertIsNone(scope_of_codes([], [with_block(NAMED, 0, parameters=(("v0", kind),))]))
         for place, is_one in (("r8", True), ("r9", False), ("s999", True), ("s1000", False), ("v9999", True), ("v10000", False)):
             found = scope_of_codes([], [("f", "number", {0: ((), (), ("return", place))})])
             self.assertEqual(found is not None, is_one, place)
@@ -333,6 +335,13 @@ class Named(unittest.TestCase):
             with_row(NAMED, 9999, 0, (None, "mark", frames(4, told("d", "number", "v57")))),
             with_row(NAMED, 9999, 0, (None, "mark", frames(4, told("d", "number", "v54")))),
         )
+        self.wrong(
+            with_more(NAMED, 9999, ("v3", "minus", "v0", "v51")), with_more(NAMED, 41, ("v57", "const", 1)),
+            with_more(NAMED, 41, ("v51", "const", 1)), with_more(NAMED, 0, ("v0", "const", 1)),
+            with_more(with_more(NAMED, 41, ("v200", "const", 1)), 40, ("v200", "const", 1)),
+            with_block(NAMED, 32, parameters=(("v3", "number"),), rows=((None, "mark", frames(3)),), end=("fail", "v3")),
+        )
+        self.right(with_more(with_more(NAMED, 41, ("v200", "const", 1)), 40, ("v201", "const", 1)))
         self.right(with_more(NAMED, 9999, (None, "show", "v10")))
         self.right(with_more(NAMED, 40, (None, "show", "v57")))
         self.right(with_more(NAMED, 32, (None, "show", "v10"), (None, "still", frames(3, told("x", "c", "v9")))))
@@ -394,7 +403,8 @@ class Named(unittest.TestCase):
             frames(4, told("a", "number", "v0"), told("a", "number", "v0")), frames(4, told("of", "number", "v0")),
             frames(4, told("a", "c", "v0")), frames(4, told("a", "number", "v1")), frames(4, told("a", "number", "v99")),
             frames(4, told("a", "truth", "v0")), frames(4, ("a", "number")), frames(4, ("a", "number", ("lost",), 1)),
-            frames(4) + (("g", 4, (told("a", "number", "v1"),)),), list(frames(4)), frames(4, ["a", "number", ("lost",)]),
+            frames(4) + (("g", 4, (told("a", "number", "v1"),)),), list(frames(4)), frames(4) + (("of", 4, ()),),
+            frames(4) + ((1, 4, ()),), frames(4) + (("g", -1, ()),), frames(4) + (("g", 4, (("if", "number", ("lost",)),)),), frames(4, ["a", "number", ("lost",)]),
         ):
             self.wrong(with_row(NAMED, 41, 0, (None, "still", thing)))
         for thing in (frames(4) * 12, frames(4) + (("g", 99999, ()),), frames(0, told("a", "c", "v1"), told("b", "number", "v57"))):

@@ -337,6 +337,8 @@ class Orders(unittest.TestCase):
             ({"a": "b", "b": "c", "c": "ad", "d": "d"}, "d"), ({"a": "b", "b": "a", "c": "d", "d": "c"}, "ab"),
             ({"d": "c", "c": "d", "a": "b", "b": "e", "e": "a"}, "cd"),
             ({"a": "cb", "b": "a", "c": "a"}, "ab"), ({"a": "bc", "b": "d", "c": "d", "d": "a"}, "abd"),
+            ({"a": "edcb", "b": "f", "c": "f", "d": "f", "e": "f", "f": "a"}, "abf"),
+            ({"c": "edba", "e": "f", "d": "f", "b": "f", "a": "f", "f": "c"}, "afc"), ({"b": "ac", "a": "b", "c": "b"}, "ab"),
             ({"x": "", "y": "x", "z": "yz"}, "z"), ({"a": "b", "b": "c", "c": "b"}, "bc"),
         ):
             with self.assertRaises(UsesRing) as caught:

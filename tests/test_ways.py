@@ -184,7 +184,7 @@ class Tidy(Case):
             found = tidy(code, scope)
             self.assertTrue(is_named(found, scope))
             self.assertEqual(tidy(found, scope), found)
-            self.assertEqual(sorted(found[2]), list(range(len(code[2]))))
+            self.assertEqual(list(found[2]), list(range(len(code[2]))))
             other = self.renumbered(rng, code)
             self.assertTrue(is_named(other, scope))
             self.assertEqual(tidy(other, scope), found)
@@ -307,6 +307,7 @@ class StandIns(Case):
             less = without_stand_ins(code, scope)
             self.assertTrue(is_named(less, scope))
             self.assertEqual(stand_ins(less, scope), {})
+            self.assertEqual(list(less[2]), sorted(code[2]))
             self.assertEqual({place for block in code[2].values() for place in given(block)} - set(found),
                              {place for block in less[2].values() for place in given(block)})
             for number, index in some(rng, spots(code), 5):
