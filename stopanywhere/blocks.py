@@ -44,31 +44,6 @@ def given_in(block):
     return [place for place, _ in parameters] + [row[0] for row in rows if row[0] is not None]
 
 
-def places_of_formula(formula):
-    """The places that a formula tells of."""
-    if formula[0] == "of":
-        return [formula[1]]
-    if formula[0] == "make":
-        return [place for part in formula[2] for place in places_of_formula(part)]
-    return []
-
-
-def places_of_frames(frames):
-    """The places that the formulas of frames tell of."""
-    return [
-        place for _, _, variables in frames for _, _, formula in variables for place in places_of_formula(formula)
-    ]
-
-
-def places_in(block):
-    """All places that stand in a block, formulas too."""
-    _, rows, end = block
-    found = given_in(block) + reads_of_end(end)
-    for row in rows:
-        found.extend(places_of_frames(frames_of(row)) if is_context(row) else reads_of_row(row))
-    return found
-
-
 def _other_parts(parts, letters, others):
     """The parts of a row or an end with places as a dict tells them; a place that it does not tell stays."""
     found = []

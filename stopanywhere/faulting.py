@@ -65,7 +65,6 @@ class FaultFinder:
     def _look_at_function(self, function):
         _, called, parameters, block = function
         self._function = called
-        self._point = None
         told = {}
         for name in parameters:
             self._look_at_told(name, told)

@@ -1,6 +1,6 @@
 """Forms of code: scopes, named code and placed code."""
 
-from stopanywhere.blocks import frames_of, given_in, is_context, leads_to, places_in, reads_of_end, reads_of_row
+from stopanywhere.blocks import frames_of, given_in, is_context, leads_to, reads_of_end, reads_of_row
 from stopanywhere.errors import BadFunctions, BadKinds, BadRegisters, BadScope, Unknown
 from stopanywhere.holding import blocks_in_order, end_finds, held_at_starts, pass_row, row_finds
 from stopanywhere.parts import declared_names
@@ -130,12 +130,9 @@ def is_named(thing, scope):
         raise BadScope("no scope")
     if not _is_startable(thing):
         return False
-    given = []
-    for block in list(thing[2].values()):
-        if not all([place[0] == "v" for place in places_in(block)]):
-            return False
-        given.extend(given_in(block))
-    if first_again(given) is not None:
+    # What is read or told must be held, and so given: no other places need be looked at.
+    given = [place for block in list(thing[2].values()) for place in given_in(block)]
+    if first_again(given) is not None or not all([place[0] == "v" for place in given]):
         return False
     return _is_right(thing, scope)
 
@@ -149,10 +146,10 @@ def is_placed(thing, scope, registers):
     if not _is_startable(thing):
         return False
     _, _, blocks = thing
-    for number in blocks:
-        if not all([_is_placed_for(place, registers) for place in places_in(blocks[number])]):
+    for block in list(blocks.values()):
+        if not all([_is_placed_for(place, registers) for place in given_in(block)]):
             return False
-        if not _stands_in_registers(blocks[number]):
+        if not _stands_in_registers(block):
             return False
     return _is_right(thing, scope) and _has_placed_parameters(blocks)
 
@@ -167,7 +164,7 @@ def _stands_in_registers(block):
     for row in rows:
         if row[1] == "call" and (row[0] != "r0" or not _is_from_first(row[3])):
             return False
-        slots = [] if is_context(row) else [place for place in [row[0]] + reads_of_row(row) if _is_slot(place)]
+        slots = [place for place in [row[0]] + reads_of_row(row) if _is_slot(place)]
         if len(slots) > (1 if row[1] == "copy" else 0):
             return False
     read = reads_of_end(end)
@@ -231,8 +228,8 @@ def _is_known(row, name, scope):
         return frames_of(row)[0][0] == name
     if word == "part":
         return row[3] < len(scope.fields(row[2]))
-    if word in ("long", "new", "at", "put"):
-        # The scope refuses what is no kind of rows.
+    if word == "long":
+        # The scope refuses what is no kind of rows; of new, at and put it does so when it is asked what these read.
         scope.item(row[2])
     return True
 

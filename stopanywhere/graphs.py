@@ -20,7 +20,7 @@ def order_from(leads, first):
 
 
 def nearest_ahead(leads, first):
-    """The dict from each thing that is come to, but the first one, to the last other one that is on all ways to it."""
+    """The dict from each thing that is come to, to the last other one on all ways to it; the first one to itself."""
     order = order_from(leads, first)
     places = {thing: at for at, thing in enumerate(order)}
     leading = {thing: [] for thing in order}
@@ -39,7 +39,6 @@ def nearest_ahead(leads, first):
             if nearest.get(thing) != found:
                 nearest[thing] = found
                 is_changed = True
-    del nearest[first]
     return nearest
 
 

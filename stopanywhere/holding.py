@@ -105,7 +105,8 @@ def row_finds(row, scope, held):
     if word == "copy":
         return kinds[0] is not None
     if word == "tag":
-        return kinds[0] is not None and scope.variants(kinds[0]) != ()
+        # The scope refuses what is no choice.
+        return scope.variants(kinds[0]) != ()
     return kinds == _wanted_kinds(row, scope)
 
 

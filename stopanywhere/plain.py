@@ -137,7 +137,6 @@ def fits(moment, other):
     others, _, _ = other
     if [frame[:2] for frame in frames] != [frame[:2] for frame in others]:
         return False
+    # Of a name that the other one does not tell nothing is left, and so they differ.
     chosen = [[name for name, _ in frame[2]] for frame in frames]
-    if not all([_are_told(frame, names) for frame, names in zip(others, chosen)]):
-        return False
     return narrowed_to(other, chosen) == moment

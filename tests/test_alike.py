@@ -69,6 +69,34 @@ class Like(unittest.TestCase):
                 self.assertEqual(is_like(tree, other), word in ("u", "b", "c", "q", "o", "y"), (at, word))
         self.assertGreater(seen, 40)
 
+    # Each name has a digit or none behind it: names with the same letters and digit name one thing.
+    GROUPS = (
+        "unit a0 uses b0 , c0 choice k1 = v2 | w2 ( number , k1 , r1 ) row r1 of k1 choice a1 = a2 "
+        "function f3 ( a4 , y4 ) { let z4 = a4 match make v2 { v2 { set z4 = a4 } w2 ( p4 , q4 , o4 ) { show p4 + q4 } } "
+        "if z4 { put r1 ( o4 , y4 ) = make w2 ( y4 , make v2 , new r1 ( y4 , make a2 ) ) } else { while y4 { fail z4 } } "
+        "try t4 = g3 ( at r1 ( o4 , long r1 ( o4 ) ) ) else e4 : e4 + t4 return f3 ( t4 , a4 ) + g3 ( e4 ) } "
+        "function g3 ( a5 ) { try y5 = g3 ( a5 ) else z5 : z5 + y5 return not y5 == a5 } "
+    )
+
+    def test_names_of_one_thing_are_put_together(self):
+        tokens = self.GROUPS.split()
+        places = {}
+        for at, token in enumerate(tokens):
+            if token[-1] in "012345":
+                places.setdefault(token, []).append(at)
+        plain = [token.rstrip("012345") for token in tokens]
+        tree = read_unit(" ".join(plain))
+        rng = random.Random(31)
+        for token, told in places.items():
+            ways = [told, told[:1], told[1:], told[:-1], told[-1:]] + [[at for at in told if rng.random() < 0.5] for _ in range(6)]
+            for some in ways:
+                words = list(plain)
+                for at in some:
+                    words[at] = "fresh"
+                other = read_unit(" ".join(words))
+                self.assertEqual(is_like(tree, other), len(some) in (0, len(told)), (token, some))
+                self.assertEqual(is_like(other, tree), len(some) in (0, len(told)), (token, some))
+
     def test_numbers_and_truths_count(self):
         head, end = "unit a function f() { return ", " }"
         self.assertFalse(self.like(head + "1" + end, head + "2" + end))

@@ -220,6 +220,98 @@ class ScopesOfCodes(unittest.TestCase):
             self.assertEqual(found is not None, is_one, place)
         self.assertIsNone(scope_of_codes([], [("of", "number", NAMED[2])]))
 
+    def test_wrong_parts(self):
+        """The form alone is asked: what stands in rows, ends and frames may be anywhere, but must have its form."""
+        def told(row, end=("return", "v0")):
+            return scope_of_codes([], [("f", "number", {0: ((), (row,), end)})]) is not None
+
+        place = ("v0", "r0")
+        names = ("a", "is")
+        for word, forms in (
+            ("const", "n"), ("copy", "p"), ("plus", "pp"), ("minus", "pp"), ("times", "pp"), ("less", "pp"), ("atmost", "pp"),
+            ("same", "pp"), ("not", "p"), ("make", "xP"), ("tag", "p"), ("part", "xkp"), ("long", "xp"), ("over", "pp"),
+            ("rest", "pp"), ("new", "xpp"), ("at", "xpp"), ("put", "xppp"), ("show", "p"), ("call", "xP"), ("mark", "F"),
+            ("back", "F"), ("still", "F"),
+        ):
+            right = {"n": -3, "p": "s5", "x": "w", "P": ("v0", "r0"), "k": 7, "F": (("g", 5, ()),)}
+            head = None if word in ("put", "show", "mark", "back", "still") else "r1"
+            row = (head, word) + tuple(right[form] for form in forms)
+            self.assertTrue(told(row), row)
+            self.assertFalse(told(row + (1,)))
+            self.assertFalse(told(row[:-1]))
+            self.assertFalse(told(("r1" if head is None else None,) + row[1:]))
+            for thing in odd_values():
+                is_number = isinstance(thing, int) and not isinstance(thing, bool)
+                for at, form in enumerate(forms):
+                    is_right = {
+                        "n": is_number, "k": is_number and thing >= 0, "p": isinstance(thing, str) and thing in place,
+                        "x": isinstance(thing, str) and thing in names, "P": isinstance(thing, tuple) and not thing, "F": False,
+                    }[form]
+                    other = row[:at + 2] + (thing,) + row[at + 3:]
+                    self.assertEqual(told(other), is_right, other)
+                    if form == "P":
+                        is_right = isinstance(thing, str) and thing in place
+                        self.assertEqual(told(row[:at + 2] + (("v0", thing),) + row[at + 3:]), is_right)
+
+    def test_wrong_parts_of_ends(self):
+        def told(end):
+            return scope_of_codes([], [("f", "number", {0: ((), (), end)})]) is not None
+
+        for right, forms in (
+            (("jump", 9999, ("v0", "s1")), "bP"), (("branch", "r0", 1, 2), "pbb"), (("return", "v1"), "p"),
+            (("fail", "v1"), "p"), (("try", "f", ("r0",), 0, 5), "xPbb"),
+        ):
+            self.assertTrue(told(right))
+            self.assertFalse(told(right + (1,)))
+            self.assertFalse(told(right[:-1]))
+            for thing in odd_values() + [10000, 9999]:
+                is_block = isinstance(thing, int) and not isinstance(thing, bool) and 0 <= thing <= 9999
+                is_place = isinstance(thing, str) and thing in ("v0", "r0")
+                for at, form in enumerate(forms):
+                    is_right = {
+                        "b": is_block, "p": is_place, "x": isinstance(thing, str) and thing in ("a", "is"),
+                        "P": isinstance(thing, tuple) and not thing,
+                    }[form]
+                    self.assertEqual(told(right[:at + 1] + (thing,) + right[at + 2:]), is_right, (right, at, thing))
+                    if form == "P":
+                        self.assertEqual(told(right[:at + 1] + ((thing,),) + right[at + 2:]), is_place)
+
+    def test_wrong_parts_of_frames(self):
+        def told(thing):
+            return scope_of_codes([], [("f", "number", {0: ((), ((None, "still", thing),), ("return", "v0"))})]) is not None
+
+        def of(formula):
+            return told((("g", 5, (("x", "k", formula),)),))
+
+        for formula in (
+            ("is", 0), ("of", "s7", -1, -2), ("lost",), ("make", "w", ()), ("make", "w", (("lost",), ("of", "v0", 1, 0), ("is", 5))),
+            ("make", "w", (("make", "w", (("make", "v", ()),)),)),
+        ):
+            self.assertTrue(of(formula))
+        for thing in odd_values():
+            is_number = isinstance(thing, int) and not isinstance(thing, bool)
+            is_name = isinstance(thing, str) and thing in ("a", "is")
+            for formula, is_right in (
+                (thing, False), (("is", thing), is_number), (("of", thing, 1, 0), isinstance(thing, str) and thing in ("v0", "r0")),
+                (("of", "v0", thing, 0), is_number and thing in (1, -1)), (("of", "v0", 1, thing), is_number),
+                (("make", thing, ()), is_name), (("make", "w", thing), isinstance(thing, tuple) and not thing),
+                (("make", "w", (thing,)), False), (("make", "w", (("lost",), ("make", "w", (thing,)))), False),
+                (("lost", thing), False), ((thing,), False), (("is", 1, thing), False), (("of", "v0", 1, 0, thing), False),
+                (("make", "w", (), thing), False),
+            ):
+                self.assertEqual(of(formula), is_right, formula)
+            for frame, is_right in (
+                ((thing, 5, ()), is_name), (("g", thing, ()), is_number and thing >= 0), (("g", 5, thing), repr(thing) == "()"),
+                (("g", 5, (thing,)), False), (("g", 5, ((thing, "k", ("lost",)),)), is_name), (thing, False),
+                (("g", 5, (("x", thing, ("lost",)),)), is_name), (("g", 5, (), thing), False),
+            ):
+                self.assertEqual(told((frame,)), is_right, frame)
+                self.assertEqual(told((("g", 5, ()), frame)), is_right, frame)
+
+    def test_long_places_are_none(self):
+        for place in ("v" + "1" * 5000, "r" + "0" * 5000, "s" + "9" * 4, "v" + "9" * 5, "r10", "s1000"):
+            self.assertIsNone(scope_of_codes([], [("f", "number", {0: ((), (), ("return", place))})]))
+
     def test_wrong_kinds(self):
         for thing in odd_values():
             if not (isinstance(thing, (list, tuple)) and len(thing) == 0):

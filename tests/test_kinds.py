@@ -167,7 +167,36 @@ class Clashes(unittest.TestCase):
                 self.assertFalse(is_clash(unit, {}, ("number", "truth", thing)))
                 self.assertFalse(is_clash(unit, {}, ("number", "truth", WAY[:4] + (thing,))))
                 self.assertFalse(is_clash(unit, {}, (thing, "truth", WAY)) and thing != "number")
+                self.assertFalse(is_clash(unit, {}, ("number", thing, WAY)) and thing != "truth")
         self.assertFalse(is_clash(sound, {}, ("number", "truth", WAY)))
+
+    def test_any_value_in_a_slot(self):
+        unit = read_unit(EXAMPLE)
+        for thing in odd_values():
+            for slot in (
+                ("variable", "f", thing), ("variable", thing, "x"), (thing, "f", "x"), ("variable", "f", "x", thing),
+                ("parameter", "f", thing, 0), ("parameter", "f", 0, thing), ("parameter", thing, 0), ("result", thing),
+                ("place", thing, 0, (2,)), ("place", "f", thing, (2,)), ("place", "f", 0, thing), ("place", "f", 0),
+                ("place", "f", 0, (2,), thing), ("place", "f", 0, (2, thing)), ("place", "f", 0, (thing,)), (thing,),
+                (thing, thing), (thing, thing, thing), (thing, thing, thing, thing),
+            ):
+                for at in range(5):
+                    way = WAY[:at] + (slot,) + WAY[at + 1:]
+                    is_same = repr(way) == repr(WAY)
+                    self.assertIs(is_clash(unit, {}, ("number", "truth", way)), is_same, slot)
+
+    def test_kinds_that_are_not_wanted_there(self):
+        unit = read_unit(EXAMPLE)
+        for other in ("zebra", "truths", "variable", "x"):
+            self.assertFalse(is_clash(unit, {}, ("number", other, WAY)))
+        for kind in ("a", "f", "Truth", "", "numbe"):
+            self.assertFalse(is_clash(unit, {}, (kind, "truth", WAY)))
+        # A way as long as the clashes', between two that are wanted as one kind.
+        unit = read_unit("unit u function f(a, b) { show a if a { } show b show b return 1 }")
+        way = (place(2, 1), ("parameter", "f", 1), place(3, 1))
+        self.assertEqual(len(clash(unit, {})[2]), len(way))
+        for told in (("number", "number", way), ("number", "truth", way), ("number", "zebra", way)):
+            self.assertFalse(is_clash(unit, {}, told))
 
     def test_several_of_one_length(self):
         unit = read_unit("unit u row r of truth function f(a, b) { show a if a { } show b if b { } return new r(1, 1) }")
@@ -409,6 +438,12 @@ class WrongUnits(unittest.TestCase):
             with self.assertRaises(Faulty) as caught:
                 call(unit, {"b": FACE})
             self.assertEqual((caught.exception.fault, caught.exception.unit), (("f", 2, "unknown", "x"), "u"))
+        # The first fault is told.
+        several = read_unit("unit u uses b function f(a, a) { let x = y return z } function g() { }")
+        for call in self.CALLS:
+            with self.assertRaises(Faulty) as caught:
+                call(several, {"b": FACE})
+            self.assertEqual(caught.exception.fault, (None, None, "again", "g"))
         self.assertFalse(is_sound(unit=unit, faces={"b": FACE}))
         self.assertTrue(is_sound(read_unit("unit u uses b"), {"b": FACE}))
         clashing = read_unit(EXAMPLE)

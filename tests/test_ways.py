@@ -95,6 +95,11 @@ class KindsAt(Case):
             "r0": "number", "r1": "number", "r2": "number", "s0": "number", "s7": "c", "s999": "c",
         })
 
+    def test_placed_for_nine_registers(self):
+        blocks = dict(PLACED[2])
+        blocks[11] = ((), blocks[11][1] + (("r8", "copy", "r1"),), blocks[11][2])
+        self.assertEqual(kinds_at(("f", "number", blocks), SCOPE, (11, 2))["r8"], "number")
+
     def test_random_codes(self):
         rng = random.Random(28)
         for code, scope in self.codes(22, 60):

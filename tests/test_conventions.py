@@ -1,0 +1,263 @@
+"""Point 3, for all functions at once: names of parameters, what is passed, what is returned."""
+
+import copy
+import importlib
+import inspect
+import unittest
+
+from odd_values import as_bool, as_list, changed, odd_values
+from stopanywhere.faces import all_faces
+from stopanywhere.forms import Scope, is_named, is_placed, scope_of_codes
+from stopanywhere.kinds import as_told, clash, is_clash, kinds_of
+from stopanywhere.lowering import named_code, scope_of
+from stopanywhere.names import does_end
+from stopanywhere.plain import Plain, Program, told_run
+from stopanywhere.texts import read_unit
+from stopanywhere.ways import tidy
+from test_forms import PLACED, SCOPE
+
+# Of each function its parameters, of each class those of its objects' making, of each method its own.
+PARAMETERS = {
+    "words": {"is_name": "thing", "sort_of": "word"},
+    "trees": {
+        "is_kind": "thing", "is_expression": "thing", "is_block": "thing", "is_function": "thing",
+        "is_declaration": "thing", "is_unit": "thing", "statements": "function", "calls_in": "tree", "depth": "tree",
+    },
+    "texts": {
+        "words_of": "text", "read_unit": "text", "read_expression": "text", "read_block": "text", "can_follow": "text",
+        "unit_text": "unit", "expression_text": "expression", "block_text": "block", "places_of": "text",
+        "point_at": "text line column",
+    },
+    "alike": {"is_like": "one other", "with_names": "unit names"},
+    "names": {
+        "in_sight": "function point", "does_end": "block", "faults": "unit faces", "order_of": "units",
+        "users_of": "units name",
+    },
+    "kinds": {
+        "ties": "unit faces", "wants": "unit faces", "clash": "unit faces", "is_clash": "unit faces thing",
+        "kinds_of": "unit faces", "kind_at": "unit faces function point path", "as_told": "unit faces kinds",
+        "is_sound": "unit faces",
+    },
+    "faces": {"face_of": "unit faces", "is_face": "thing", "all_faces": "units"},
+    "plain": {
+        "Program": "units", "Plain": "program function arguments", "Plain.step": "", "Plain.go": "", "Plain.events": "",
+        "Plain.moment": "", "Plain.outputs": "", "Plain.end": "", "told_run": "program function arguments most",
+        "narrowed": "moment chosen", "fits": "moment other",
+    },
+    "forms": {
+        "Scope": "kinds functions", "Scope.choice": "variant", "Scope.variants": "choice", "Scope.fields": "variant",
+        "Scope.item": "kind", "Scope.takes": "function", "Scope.gives": "function", "scope_of_codes": "kinds codes",
+        "is_named": "thing scope", "is_placed": "thing scope registers",
+    },
+    "ways": {
+        "kinds_at": "code scope spot", "way_without": "code scope spot place", "tidy": "code scope",
+        "are_alike": "code other scope", "stand_ins": "code scope", "without_stand_ins": "code scope",
+    },
+    "lowering": {"scope_of": "unit faces", "named_code": "unit faces name", "named_codes": "unit faces"},
+}
+A = read_unit(
+    "unit a choice c = v | w(number, c) row r of c "
+    "function f(p, q) { let x = new r(p + 2, make v) put r(x, 0) = make w(p, make v) while q and 0 < p { show p set p = p - 1 } "
+    "match at r(x, 0) { v { return 0 } w(n, m) { try y = g(x) else z: z return y + n } } } "
+    "function g(o) { return long r(o) over 0 }"
+)
+B = read_unit("unit b uses a function h(p) { return f(p, true) } function e() { return make w(1, make v) }")
+CLASHING = read_unit("unit a function f(a) { show a if a { } return 1 }")
+FACES = {"a": all_faces([A])["a"]}
+CODE = named_code(A, {}, "f")
+IN_A = scope_of(A, {})
+PROGRAM = Program([A, B])
+MOMENT = told_run(PROGRAM, "h", [1], 20)[2][-1]
+NAMES = [[name for name, _ in frame[2]] for frame in MOMENT[0]]
+LAST = max(CODE[2])
+TEXT = "unit a\nfunction g() { show 1 } function f() { while true { show 2 } }"
+
+
+def samples():
+    """Calls with values that are right: the function's name, then its arguments."""
+    return [
+        ("words.is_name", ["a"]), ("words.sort_of", ["a"]), ("trees.is_unit", [A]), ("trees.statements", [A[4][0]]),
+        ("trees.calls_in", [A[4][0]]), ("trees.depth", [A[4][0][3]]), ("texts.words_of", [TEXT]),
+        ("texts.read_unit", [TEXT]), ("texts.read_expression", ["a + 1"]), ("texts.read_block", ["show 1"]),
+        ("texts.can_follow", ["unit a"]), ("texts.unit_text", [A]), ("texts.expression_text", [("number", 1)]),
+        ("texts.block_text", [A[4][0][3]]), ("texts.places_of", [TEXT]), ("texts.point_at", [TEXT, 2, 16]),
+        ("alike.is_like", [A, B]), ("alike.with_names", [A, {"x": "xx", "a": "u"}]), ("names.in_sight", [A[4][0], 3]),
+        ("names.does_end", [A[4][0][3]]), ("names.faults", [B, FACES]), ("names.faults", [A, {}]),
+        ("names.faults", [read_unit("unit a function f() { }"), {}]), ("names.order_of", [[B, A]]),
+        ("names.users_of", [[B, A], "a"]), ("kinds.ties", [B, FACES]), ("kinds.ties", [A, {}]), ("kinds.wants", [B, FACES]),
+        ("kinds.clash", [B, FACES]), ("kinds.clash", [CLASHING, {}]), ("kinds.is_clash", [CLASHING, {}, clash(CLASHING, {})]),
+        ("kinds.kinds_of", [B, FACES]), ("kinds.kinds_of", [A, {}]), ("kinds.kind_at", [A, {}, "f", 0, (2, 2)]),
+        ("kinds.as_told", [A, {}, kinds_of(A, {})]), ("kinds.is_sound", [B, FACES]), ("faces.face_of", [B, FACES]),
+        ("faces.is_face", [FACES["a"]]), ("faces.all_faces", [[B, A]]), ("plain.told_run", [PROGRAM, "f", [2, True], 50]),
+        ("plain.told_run", [PROGRAM, "e", [], 50]), ("plain.narrowed", [MOMENT, NAMES]), ("plain.fits", [MOMENT, MOMENT]),
+        ("forms.scope_of_codes", [list(A[3]), [CODE]]), ("forms.is_named", [CODE, IN_A]),
+        ("forms.is_placed", [PLACED, SCOPE, 9]), ("ways.kinds_at", [CODE, IN_A, (LAST, 1)]),
+        ("ways.kinds_at", [PLACED, SCOPE, (8, 1)]), ("ways.way_without", [CODE, IN_A, (0, 0), "v3"]),
+        ("ways.tidy", [CODE, IN_A]), ("ways.are_alike", [CODE, tidy(CODE, IN_A), IN_A]), ("ways.stand_ins", [CODE, IN_A]),
+        ("ways.stand_ins", [STANDING, IN_F]), ("ways.without_stand_ins", [STANDING, IN_F]), ("ways.tidy", [STANDING, IN_F]),
+        ("lowering.scope_of", [B, FACES]), ("lowering.named_code", [B, FACES, "h"]), ("lowering.named_codes", [B, FACES]),
+        ("lowering.named_codes", [A, {}]),
+    ]
+
+
+MARK = (None, "mark", (("f", 0, ()),))
+STANDING = ("f", "number", {
+    9: ((("v11", "number"), ("v12", "number")), (MARK,), ("return", "v11")),
+    0: ((("v0", "number"),), (MARK,), ("jump", 9, ("v0", "v0"))),
+})
+IN_F = Scope([], {"f": (("number",), "number")})
+
+
+def called(path):
+    module, _, name = path.partition(".")
+    return getattr(importlib.import_module("stopanywhere." + module), name)
+
+
+def parts(thing):
+    """A value and all that stands in it."""
+    yield thing
+    if isinstance(thing, (list, tuple)):
+        for part in thing:
+            yield from parts(part)
+    elif isinstance(thing, dict):
+        for key in thing:
+            yield from parts(thing[key])
+
+
+def kept(thing):
+    """The lists and dicts in a value, by their identities."""
+    return {id(part): part for part in parts(thing) if isinstance(part, (list, dict))}
+
+
+def other_lists(thing):
+    """A value with each list as a tuple."""
+    if isinstance(thing, (list, tuple)):
+        return tuple(other_lists(part) for part in thing)
+    if isinstance(thing, dict):
+        return {key: other_lists(thing[key]) for key in thing}
+    return thing
+
+
+def turned(thing):
+    """A value with the keys of each dict the other way round."""
+    if isinstance(thing, (list, tuple)):
+        return thing.__class__(turned(part) for part in thing)
+    if isinstance(thing, dict):
+        return {key: turned(thing[key]) for key in reversed(list(thing))}
+    return thing
+
+
+class Parameters(unittest.TestCase):
+    def test_names(self):
+        for module, told in PARAMETERS.items():
+            for name, words in told.items():
+                found = importlib.import_module("stopanywhere." + module)
+                for part in name.split("."):
+                    found = getattr(found, part)
+                listed = list(inspect.signature(found).parameters.values())
+                if "." in name:
+                    listed = listed[1:]
+                self.assertEqual([parameter.name for parameter in listed], words.split(), (module, name))
+                for parameter in listed:
+                    self.assertEqual(parameter.kind, parameter.POSITIONAL_OR_KEYWORD)
+                    self.assertIs(parameter.default, parameter.empty)
+
+    def test_by_position_and_by_name(self):
+        for path, arguments in samples():
+            module, _, name = path.partition(".")
+            words = PARAMETERS[module][name].split()
+            self.assertTrue(called(path)(*arguments) == called(path)(**dict(zip(words, arguments))), path)
+
+    def test_methods_stand_in_their_classes(self):
+        for module, told in PARAMETERS.items():
+            for name in told:
+                if "." in name:
+                    owner, _, method = name.partition(".")
+                    self.assertIn(method, vars(getattr(importlib.import_module("stopanywhere." + module), owner)))
+        self.assertIn("__eq__", vars(Program))
+        self.assertIn("__eq__", vars(Scope))
+
+
+class WhatIsPassed(unittest.TestCase):
+    def test_nothing_is_changed(self):
+        for path, arguments in samples():
+            plain = [None if isinstance(argument, (Program, Scope)) else argument for argument in arguments]
+            before = copy.deepcopy(plain)
+            orders = [list(part) for part in parts(plain) if isinstance(part, dict)]
+            called(path)(*arguments)
+            self.assertEqual(plain, before, path)
+            self.assertEqual([list(part) for part in parts(plain) if isinstance(part, dict)], orders, path)
+
+    def test_tuples_for_lists(self):
+        for path, arguments in samples():
+            found = [other_lists(argument) for argument in arguments]
+            self.assertTrue(called(path)(*found) == called(path)(*arguments), path)
+
+    def test_the_order_of_keys_has_no_meaning(self):
+        for path, arguments in samples():
+            one = called(path)(*arguments)
+            other = called(path)(*[turned(argument) for argument in arguments])
+            self.assertTrue(other == one, path)
+            self.assertEqual(repr(other) if kept(other) else "", repr(one) if kept(one) else "", path)
+
+
+class WhatIsReturned(unittest.TestCase):
+    def test_equal_results(self):
+        for path, arguments in samples():
+            self.assertTrue(called(path)(*arguments) == called(path)(*arguments), path)
+
+    def test_lists_and_dicts_are_new_at_every_depth(self):
+        for path, arguments in samples():
+            one, other = called(path)(*arguments), called(path)(*arguments)
+            for found in (kept(one), kept(other)):
+                self.assertEqual(set(found) & set(kept(arguments)), set(), path)
+            self.assertEqual(set(kept(one)) & set(kept(other)), set(), path)
+
+    def test_keys_are_ascending(self):
+        for path, arguments in samples():
+            for part in parts(called(path)(*arguments)):
+                if isinstance(part, dict) and path != "ways.stand_ins":
+                    self.assertEqual(list(part), sorted(part), path)
+
+    def test_kinds_of_results(self):
+        for kind, paths in (
+            (list, "trees.statements trees.calls_in texts.words_of names.faults kinds.ties kinds.wants ways.way_without"),
+            (dict, "texts.places_of kinds.kinds_of faces.all_faces ways.kinds_at ways.stand_ins lowering.named_codes"),
+            (tuple, "texts.can_follow names.in_sight names.order_of names.users_of plain.told_run plain.narrowed ways.tidy "
+                    "texts.point_at texts.read_unit texts.read_block faces.face_of lowering.named_code"),
+            (bool, "words.is_name trees.is_unit alike.is_like names.does_end kinds.is_clash kinds.as_told kinds.is_sound "
+                   "faces.is_face plain.fits forms.is_named forms.is_placed ways.are_alike"),
+        ):
+            for path, arguments in samples():
+                if path in paths.split():
+                    self.assertIs(called(path)(*arguments).__class__, kind, path)
+
+    def test_what_judges_any_value_answers_true_or_false(self):
+        judges = [
+            called(path) for path in (
+                "words.is_name", "trees.is_kind", "trees.is_expression", "trees.is_block", "trees.is_function",
+                "trees.is_declaration", "trees.is_unit", "faces.is_face",
+            )
+        ] + [
+            lambda thing: is_named(thing, SCOPE), lambda thing: is_placed(thing, SCOPE, 9),
+            lambda thing: is_clash(CLASHING, {}, thing), lambda thing: as_told(A, {}, thing),
+        ]
+        told = [MOMENT, CODE, PLACED, A, A[4][0], A[4][0][3], A[3][0], FACES["a"], clash(CLASHING, {}), kinds_of(A, {})]
+        for judge in judges:
+            for thing in odd_values() + [other for turn in (as_list, as_bool) for one in told for other in changed(one, turn)]:
+                self.assertIn(repr(judge(thing)), ("True", "False"))
+        for block in ((), A[4][0][3], A[4][0][3][:1]):
+            self.assertIs(does_end(block).__class__, bool)
+
+    def test_objects(self):
+        plain = Plain(PROGRAM, "f", [2, True])
+        found = [plain.step(), plain.moment(), plain.go(), plain.outputs()]
+        self.assertEqual([thing.__class__ for thing in found], [str, tuple, bool, list])
+        self.assertIsNot(plain.outputs(), plain.outputs())
+        for found in (SCOPE, scope_of_codes(list(A[3]), [CODE])):
+            self.assertEqual(set(vars(found)) & {"kinds", "functions"}, {"kinds", "functions"})
+        self.assertEqual(set(vars(PROGRAM)) & {"units", "order", "faces"}, {"units", "order", "faces"})
+
+
+if __name__ == "__main__":
+    unittest.main()
