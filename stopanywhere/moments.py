@@ -96,43 +96,31 @@ def _is_picture(thing, many):
     return is_name(thing[0]) and _are_pictures(thing[1], many)
 
 
-class Narrowing:
-    """What tells pictures of a moment anew, with the rows numbered by their first meeting."""
+def _boxes_of(rows):
+    """Boxes for the rows of a moment, that hold what these tell."""
+    boxes = [RowBox(kind, []) for kind, _ in rows]
+    for box, (_, pictures) in zip(boxes, rows):
+        box.held = [_worth_of(picture, boxes) for picture in pictures]
+    return boxes
 
-    def __init__(self, rows):
-        self._rows = rows
-        self._numbers = {}
-        self._met = []
 
-    def picture(self, picture):
-        if isinstance(picture, int):
-            return picture
-        word, told = picture
-        if word == "row":
-            return "row", self._number_of(told)
-        return word, tuple([self.picture(part) for part in told])
-
-    def _number_of(self, row):
-        if row not in self._numbers:
-            self._numbers[row] = len(self._met)
-            self._met.append(row)
-        return self._numbers[row]
-
-    def rows_met(self):
-        """The tuple of the rows that are met, also those that are met in going through it."""
-        found = []
-        while len(found) < len(self._met):
-            kind, held = self._rows[self._met[len(found)]]
-            found.append((kind, tuple([self.picture(picture) for picture in held])))
-        return tuple(found)
+def _worth_of(picture, boxes):
+    """What has this picture, if its rows are those boxes."""
+    if isinstance(picture, int):
+        return picture
+    word, told = picture
+    if word == "row":
+        return boxes[told]
+    return word, tuple([_worth_of(part, boxes) for part in told])
 
 
 def narrowed_to(moment, chosen):
     """A moment with just the chosen variables told, a list of names for each frame."""
     frames, rows, shown = moment
-    narrowing = Narrowing(rows)
+    boxes = _boxes_of(rows)
+    meeting = Meeting()
     told = []
     for (function, point, variables), names in zip(frames, chosen):
-        kept = [(name, narrowing.picture(picture)) for name, picture in variables if name in names]
+        kept = [(name, meeting.picture(_worth_of(picture, boxes))) for name, picture in variables if name in names]
         told.append((function, point, tuple(kept)))
-    return tuple(told), narrowing.rows_met(), shown
+    return tuple(told), meeting.rows_met(), shown

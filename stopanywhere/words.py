@@ -9,7 +9,6 @@ KEPT = (
 )
 SIGNS = ("(", ")", "{", "}", ",", ":", "=", "|", "+", "-", "*", "<", "<=", "==")
 LETTERS = "abcdefghijklmnopqrstuvwxyz"
-FIGURES = "0123456789"
 INNER = "abcdefghijklmnopqrstuvwxyzABCDEFGHIJKLMNOPQRSTUVWXYZ0123456789_"
 PERCENT = 37
 

@@ -247,6 +247,22 @@ class Rules(unittest.TestCase):
             found |= {node.targets[0].id for node in tree.body if isinstance(node, ast.Assign)}
             self.assertEqual(set(words.split()) - found, set(), name)
 
+    def test_each_name_is_used_or_promised(self):
+        promised = {word for words in INTERFACE.values() for word in words.split()}
+        used = set()
+        for _, tree in self.each():
+            for node in ast.walk(tree):
+                if isinstance(node, ast.Name) and isinstance(node.ctx, ast.Load):
+                    used.add(node.id)
+                elif isinstance(node, ast.Attribute):
+                    used.add(node.attr)
+        for name, tree in self.each():
+            for node in tree.body:
+                told = [node.name] if isinstance(node, (ast.FunctionDef, ast.ClassDef)) else []
+                if isinstance(node, ast.Assign):
+                    told = [node.targets[0].id]
+                self.assertEqual(set(told) - used - promised, set() if name != "errors" else set(told) - used - promised, name)
+
     def test_methods_and_attributes_are_apart(self):
         for name, tree in self.each():
             for node in ast.walk(tree):
