@@ -291,6 +291,32 @@ class StandIns(Case):
         self.assertEqual(stand_ins(code, scope_for(2)), {})
         self.assertEqual(without_stand_ins(code, scope_for(2)), code)
 
+    def test_formulas_tell_of_other_places(self):
+        scope = Scope([("choice", "c", (("v", ()), ("w", ("number", "c"))))], {"f": (("number", "c"), "number")})
+
+        def told(first, second):
+            inner = ("make", "w", (("of", first, -1, 3), ("of", second, 1, 0)))
+            row = (None, "back", (("f", 1, (
+                ("a", "c", ("make", "w", (("of", first, 1, 2), inner))), ("b", "number", ("of", first, -1, 7)),
+                ("d", "c", ("of", second, 1, 0)), ("e", "c", ("make", "w", (("is", 4), ("lost",)))),
+            )), ("g", 2, (("a", "c", inner),))))
+            return (row,)
+
+        code = ("f", "number", {
+            0: ((("v3", "number"), ("v1", "c")), (MARK,), ("jump", 6, ("v3", "v1"))),
+            6: ((("v7", "number"), ("v5", "c")), told("v7", "v5"), ("return", "v7")),
+        })
+        self.assertTrue(is_named(code, scope))
+        self.assertEqual(tidy(code, scope), ("f", "number", {
+            0: ((("v0", "number"), ("v1", "c")), (MARK,), ("jump", 1, ("v0", "v1"))),
+            1: ((("v2", "number"), ("v3", "c")), told("v2", "v3"), ("return", "v2")),
+        }))
+        self.assertEqual(stand_ins(code, scope), {"v5": "v1", "v7": "v3"})
+        self.assertEqual(without_stand_ins(code, scope), ("f", "number", {
+            0: ((("v3", "number"), ("v1", "c")), (MARK,), ("jump", 6, ())),
+            6: ((), told("v3", "v1"), ("return", "v3")),
+        }))
+
     def test_parameters_of_tries_and_of_the_function_stay(self):
         code = code_of({
             0: (["v0"], [], ("try", "f", ("v0",), 1, 2)), 1: (["v1"], [], ("jump", 3, ("v1",))),
