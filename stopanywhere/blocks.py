@@ -1,10 +1,15 @@
 """What rows and ends of codes read, give and lead to, and the same with other places."""
 
-from stopanywhere.shapes import CONTEXT_WORDS, ENDS, ROWS
+from stopanywhere.shapes import CONTEXT_WORDS, ENDS, PURE_WORDS, ROWS
+from stopanywhere.values import ascending
 
 
 def is_context(row):
     return row[1] in CONTEXT_WORDS
+
+
+def is_pure(row):
+    return row[1] in PURE_WORDS
 
 
 def frames_of(row):
@@ -36,6 +41,22 @@ def _places_at(parts, letters):
 def leads_to(end):
     """The blocks to which an end leads, from left to right."""
     return [part for part, letter in zip(end[1:], ENDS[end[0]]) if letter == "b"]
+
+
+def copy_of(code):
+    """A code in a new dict, its blocks ascending."""
+    name, result, blocks = code
+    return name, result, ascending(blocks)
+
+
+def calls_in_code(code):
+    """The functions that the rows and ends of a code call, block by block, each as often as it is called."""
+    found = []
+    for _, rows, end in list(code[2].values()):
+        found.extend([row[2] for row in rows if row[1] == "call"])
+        if end[0] == "try":
+            found.append(end[1])
+    return found
 
 
 def given_in(block):

@@ -109,7 +109,7 @@ def _is_told(thing):
 def scope_of_codes(kinds, codes):
     """The scope of declared kinds and of the functions of codes; None for what is no list of such codes."""
     scope = Scope(kinds, {})
-    if not is_list(codes) or not all([_is_startable(code) for code in codes]):
+    if not is_list(codes) or not all([is_startable(code) for code in codes]):
         return None
     if first_again([name for name, _, _ in codes]) is not None:
         return None
@@ -119,7 +119,7 @@ def scope_of_codes(kinds, codes):
     return Scope(scope.kinds, functions)
 
 
-def _is_startable(thing):
+def is_startable(thing):
     """Whether any value has the form of a code with a block 0 of at most 3 parameters."""
     return is_code(thing) and 0 in thing[2] and len(thing[2][0][0]) <= 3
 
@@ -128,7 +128,7 @@ def is_named(thing, scope):
     """Whether any value is named code in a scope."""
     if not isinstance(scope, Scope):
         raise BadScope("no scope")
-    if not _is_startable(thing):
+    if not is_startable(thing):
         return False
     # What is read or told must be held, and so given: no other places need be looked at.
     given = [place for block in list(thing[2].values()) for place in given_in(block)]
@@ -143,7 +143,7 @@ def is_placed(thing, scope, registers):
         raise BadScope("no scope")
     if not is_number_between(registers, 6, 9):
         raise BadRegisters("no number from 6 to 9")
-    if not _is_startable(thing):
+    if not is_startable(thing):
         return False
     _, _, blocks = thing
     for block in list(blocks.values()):

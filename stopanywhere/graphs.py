@@ -51,6 +51,38 @@ def _on_both_ways(nearest, places, one, other):
     return one
 
 
+class Nest:
+    """What stands ahead of what: which things are on all ways to one, by nearest_ahead of all that are come to."""
+
+    def __init__(self, leads, first):
+        self._first = first
+        self._nearest = nearest_ahead(leads, first)
+        order = order_from(leads, first)
+        sizes = {thing: 1 for thing in order}
+        for thing in list(reversed(order[1:])):
+            sizes[self._nearest[thing]] += sizes[thing]
+        # All things that one stands ahead of are numbered in a row, from its own number on.
+        self._sizes = sizes
+        self._numbers = {first: 0}
+        free = {first: 1}
+        for thing in order[1:]:
+            ahead = self._nearest[thing]
+            self._numbers[thing] = free[ahead]
+            free[ahead] += sizes[thing]
+            free[thing] = self._numbers[thing] + 1
+
+    def stands_ahead(self, one, other):
+        """Whether one thing is on all ways to another one; each is on all ways to itself."""
+        return 0 <= self._numbers[other] - self._numbers[one] < self._sizes[one]
+
+    def ahead_of(self, thing):
+        """The things on all ways to one, itself last, in the order in which they stand on each way."""
+        found = [thing]
+        while found[-1] != self._first:
+            found.append(self._nearest[found[-1]])
+        return list(reversed(found))
+
+
 def shortest_way(leads, first, last, shunned):
     """A shortest list of things that lead from the first one to the last one and not over a shunned one, or None.
 
@@ -80,3 +112,12 @@ def _way_behind(ahead, first, last):
     while way[-1] != first:
         way.append(ahead[way[-1]])
     return list(reversed(way))
+
+
+def least_way_past(leads, first, last, shunned):
+    """The least of the shortest ways that do not lead over a shunned thing, a tuple; None if there is none."""
+    if last == shunned:
+        return None
+    # Where all leads are ascending, ways of one length are gone in their order.
+    way = shortest_way({thing: sorted(leads[thing]) for thing in leads}, first, last, shunned)
+    return None if way is None else tuple(way)

@@ -23,14 +23,14 @@ def shortest_ring(uses):
     """
     rings = []
     for name in sorted(uses):
-        ring = _shortest_ring_from(uses, name)
+        ring = shortest_ring_from(uses, name)
         if ring is not None:
             rings.append((len(ring), ring))
     _, ring = min(rings)
     return ring
 
 
-def _shortest_ring_from(uses, first):
+def shortest_ring_from(uses, first):
     """The shortest ring through a name, of several the first by their names; None if there is none."""
     # Ways of one length come in the order of their names, so the first way to a name is the first one by names.
     ways = [(first,)]
@@ -46,6 +46,16 @@ def _shortest_ring_from(uses, first):
                     longer.append((*way, name))
         ways = longer
     return None
+
+
+def ring_of_calls(calls, name):
+    """The least of the shortest rings of calls from a name to itself, told at both ends; None if there is none.
+
+    calls tells by names what these call, perhaps also what is no name of the dict.
+    """
+    known = {key: [other for other in calls[key] if other in calls] for key in calls}
+    ring = shortest_ring_from(known, name)
+    return None if ring is None else (*ring, name)
 
 
 def users_by_uses(uses, name):

@@ -139,11 +139,12 @@ def _turn(run, frame, step):
 
 def _reckon(run, frame, step):
     one, other = frame.take(2)
-    frame.stack.append(_reckoned(step[0], one, other))
+    frame.stack.append(reckoned(step[0], one, other))
     return None
 
 
-def _reckoned(word, one, other):
+def reckoned(word, one, other):
+    """What plus, minus and times, or less, atmost and same, make of two numbers."""
     if word == "plus":
         return one + other
     if word == "minus":

@@ -16,6 +16,9 @@ ROWS = {
     "mark": (False, "F"), "back": (False, "F"), "still": (False, "F"),
 }
 CONTEXT_WORDS = ("mark", "back", "still")
+PURE_WORDS = (
+    "const", "copy", "plus", "minus", "times", "less", "atmost", "same", "not", "make", "tag", "part", "long",
+)
 # The same of ends; b is the number of a block.
 ENDS = {"jump": "bA", "branch": "abb", "return": "a", "fail": "a", "try": "xAbb"}
 

@@ -79,16 +79,22 @@ def _behind_root(nearest, place):
 def without_standing_in(code, others):
     """The code without the parameters that are keys, with their places wherever one was read or told."""
     name, result, blocks = code
+    return name, result, replaced(blocks, others)
+
+
+def replaced(blocks, others):
+    """Blocks in which the places of a dict stand for its keys; what gave a key goes, its arguments too."""
     found = {}
     for number in sorted(blocks):
         parameters, rows, end = blocks[number]
         kept = tuple([(place, kind) for place, kind in parameters if place not in others])
-        other_rows = tuple([row_with(row, others) for row in rows])
-        found[number] = (kept, other_rows, end_with(_end_without(end, blocks, others), others))
-    return name, result, found
+        other_rows = tuple([row_with(row, others) for row in rows if row[0] not in others])
+        found[number] = (kept, other_rows, end_with(end_without(end, blocks, others), others))
+    return found
 
 
-def _end_without(end, blocks, others):
+def end_without(end, blocks, others):
+    """An end without the arguments for parameters that are keys of a dict."""
     if end[0] != "jump":
         return end
     _, block, arguments = end

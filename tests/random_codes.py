@@ -105,7 +105,7 @@ class CodeMaker:
     def context(self, word, number, held):
         some = [place for place in held if self.rng.random() < 0.4]
         variables = tuple((f"a{'abcdefghijklmnopqrstuvwxyz'[at]}", "number", ("of", place, 1, 0))
-                          for at, place in enumerate(some[:20]))
+                          for at, place in enumerate(some[:19]))
         return None, word, (("f", number, variables),)
 
 

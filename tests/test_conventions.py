@@ -6,12 +6,15 @@ import inspect
 import unittest
 
 from odd_values import as_bool, as_list, changed, odd_values
+from stopanywhere.colours import colours, is_colouring
 from stopanywhere.faces import all_faces
 from stopanywhere.forms import Scope, is_named, is_placed, scope_of_codes
 from stopanywhere.kinds import as_told, clash, is_clash, kinds_of
-from stopanywhere.lowering import named_code, scope_of
+from stopanywhere.lowering import named_code, named_codes, scope_of
 from stopanywhere.names import does_end
 from stopanywhere.plain import Plain, Program, told_run
+from stopanywhere.runner import Codes
+from stopanywhere.steps import is_step
 from stopanywhere.texts import read_unit
 from stopanywhere.ways import tidy
 from test_forms import PLACED, SCOPE
@@ -54,6 +57,33 @@ PARAMETERS = {
         "are_alike": "code other scope", "stand_ins": "code scope", "without_stand_ins": "code scope",
     },
     "lowering": {"scope_of": "unit faces", "named_code": "unit faces name", "named_codes": "unit faces"},
+    "heaps": {
+        "made": "heap shape words", "pictures": "scope heap words", "reached": "scope heap words", "moved": "scope heap words addresses",
+    },
+    "runner": {
+        "Codes": "kinds codes", "Codes.begin": "function arguments", "Codes.step": "state", "Codes.run": "state most",
+        "Codes.is_state": "thing",
+    },
+    "walks": {"walk": "codes function arguments most"},
+    "terms": {"told_number": "scope code place", "told_same": "scope code place other"},
+    "roads": {
+        "ahead_of": "scope code block", "way_past": "scope code block other", "readers": "scope code place",
+        "ring_of": "scope codes name",
+    },
+    "stories": {"story": "scope code spot"},
+    "steps": {
+        "stepped": "scope codes name step", "is_step": "scope codes name thing", "steps_of": "scope codes name word",
+        "refusal": "scope codes name step",
+    },
+    "passes": {
+        "rewritten": "scope codes rows", "settled": "scope codes name words", "lost_in": "scope code", "lean": "scope codes",
+    },
+    "wanted": {"wanted": "code", "way_to": "code spot place", "alive": "code", "carried": "code"},
+    "colours": {"most": "code slots", "colours": "code slots", "is_colouring": "code slots colouring"},
+    "spills": {
+        "least": "spans room", "worth": "spans room prices", "slots": "code room", "spans_of": "code", "prices_of": "code room",
+    },
+    "moves": {"moves": "pairs helpers", "openings": "pairs"},
 }
 A = read_unit(
     "unit a choice c = v | w(number, c) row r of c "
@@ -97,6 +127,33 @@ def samples():
         ("ways.stand_ins", [STANDING, IN_F]), ("ways.without_stand_ins", [STANDING, IN_F]), ("ways.tidy", [STANDING, IN_F]),
         ("lowering.scope_of", [B, FACES]), ("lowering.named_code", [B, FACES, "h"]), ("lowering.named_codes", [B, FACES]),
         ("lowering.named_codes", [A, {}]),
+    ] + samples_of_codes()
+
+
+def samples_of_codes():
+    """The same of functions over heaps and codes."""
+    boxes = {9: ("r", (3, 0)), 3: ("w", (1, 5)), 5: ("v", ())}
+    words = [("r", 9), ("number", 4), ("c", 0)]
+    plain = {"h": NUMBERS, "f": JOINED}
+    spans = [(0, 4, 2), (1, 2, 5), (2, 6, 1)]
+    pairs = [("r1", "r0"), ("r0", "r1"), ("s1", "s0")]
+    return [
+        ("heaps.made", [boxes, "v", ()]), ("heaps.pictures", [IN_A, boxes, words]), ("heaps.reached", [IN_A, boxes, words]),
+        ("heaps.moved", [IN_A, boxes, words, [4, 1, 900]]), ("walks.walk", [CODES, "f", [2, True], 60]),
+        ("terms.told_number", [IN_F, JOINED, "v2"]), ("terms.told_same", [IN_F, JOINED, "v2", "v3"]),
+        ("roads.ahead_of", [IN_F, JOINED, 9]), ("roads.way_past", [IN_F, JOINED, 9, 4]), ("roads.readers", [IN_F, JOINED, "v0"]),
+        ("roads.ring_of", [IN_F, plain, "h"]), ("roads.ring_of", [IN_F, plain, "f"]), ("stories.story", [IN_F, JOINED, (0, 2)]),
+        ("steps.stepped", [IN_F, plain, "f", ("dead", 0, 2)]), ("steps.stepped", [IN_F, plain, "f", ("inline", 0, 4)]),
+        ("steps.stepped", [IN_F, plain, "f", ("alike", 9, 0)]), ("steps.is_step", [IN_F, plain, "f", ("merge", 9)]),
+        ("steps.steps_of", [IN_F, plain, "f", "same"]), ("steps.refusal", [IN_F, plain, "f", ("merge", 9)]),
+        ("passes.rewritten", [IN_F, plain, [("f", ("dead", 0, 2)), ("h", ("fold", 0, 3))]]),
+        ("passes.settled", [IN_F, plain, "f", ["same", "dead"]]), ("passes.lost_in", [IN_F, JOINED]), ("passes.lean", [IN_F, plain]),
+        ("wanted.wanted", [JOINED]), ("wanted.wanted", [PLACED]), ("wanted.way_to", [JOINED, (0, 0), "v0"]), ("wanted.alive", [JOINED]),
+        ("wanted.carried", [JOINED]), ("colours.most", [JOINED, ["v3"]]), ("colours.colours", [JOINED, ["v3"]]),
+        ("colours.is_colouring", [NUMBERS, ["v2"], {"v3": 0, "v0": 0, "v1": 1}]), ("spills.least", [spans, 1]),
+        ("spills.worth", [spans, 1, [0, 0, 2]]), ("spills.slots", [JOINED, 1]), ("spills.slots", [NUMBERS, 1]),
+        ("spills.spans_of", [NUMBERS]), ("spills.prices_of", [NUMBERS, 1]), ("moves.moves", [pairs, ("r6", "r7")]),
+        ("moves.openings", [pairs]),
     ]
 
 
@@ -105,7 +162,18 @@ STANDING = ("f", "number", {
     9: ((("v11", "number"), ("v12", "number")), (MARK,), ("return", "v11")),
     0: ((("v0", "number"),), (MARK,), ("jump", 9, ("v0", "v0"))),
 })
-IN_F = Scope([], {"f": (("number",), "number")})
+IN_F = Scope([], {"f": (("number",), "number"), "h": (("number",), "number")})
+CODES = Codes(list(A[3]), list(named_codes(A, {}).values()))
+# h has one block, f a call of it, places that are the same, and a join.
+NUMBERS = ("h", "number", {0: ((("v0", "number"),), (
+    (None, "mark", (("h", 0, (("n", "number", ("of", "v0", 1, 0)),)),)), ("v1", "const", 2), ("v2", "plus", "v0", "v1"), ("v3", "less", "v1", "v1"),
+), ("return", "v2"))})
+JOINED = ("f", "number", {
+    9: ((("v8", "number"),), (MARK, (None, "show", "v8")), ("return", "v4")), 5: ((), (MARK,), ("jump", 9, ("v0",))),
+    0: ((("v0", "number"),), (MARK, ("v1", "const", 3), ("v2", "plus", "v1", "v0"), ("v3", "plus", "v0", "v1"), ("v4", "call", "h", ("v3",)),
+                             (None, "still", (("f", 0, (("x", "number", ("of", "v2", -1, 0)),)),))), ("branch", "v3", 5, 4)),
+    4: ((), (MARK,), ("jump", 9, ("v0",))),
+})
 
 
 def called(path):
@@ -176,12 +244,13 @@ class Parameters(unittest.TestCase):
                     self.assertIn(method, vars(getattr(importlib.import_module("stopanywhere." + module), owner)))
         self.assertIn("__eq__", vars(Program))
         self.assertIn("__eq__", vars(Scope))
+        self.assertIn("__eq__", vars(Codes))
 
 
 class WhatIsPassed(unittest.TestCase):
     def test_nothing_is_changed(self):
         for path, arguments in samples():
-            plain = [None if isinstance(argument, (Program, Scope)) else argument for argument in arguments]
+            plain = [None if isinstance(argument, (Program, Scope, Codes)) else argument for argument in arguments]
             before = copy.deepcopy(plain)
             orders = [list(part) for part in parts(plain) if isinstance(part, dict)]
             called(path)(*arguments)
@@ -216,17 +285,26 @@ class WhatIsReturned(unittest.TestCase):
     def test_keys_are_ascending(self):
         for path, arguments in samples():
             for part in parts(called(path)(*arguments)):
-                if isinstance(part, dict) and path != "ways.stand_ins":
+                # These stand in place order.
+                is_placed_dict = path in ("ways.stand_ins", "wanted.carried", "colours.colours", "spills.slots")
+                if isinstance(part, dict) and not is_placed_dict:
                     self.assertEqual(list(part), sorted(part), path)
 
     def test_kinds_of_results(self):
         for kind, paths in (
-            (list, "trees.statements trees.calls_in texts.words_of names.faults kinds.ties kinds.wants ways.way_without"),
-            (dict, "texts.places_of kinds.kinds_of faces.all_faces ways.kinds_at ways.stand_ins lowering.named_codes"),
+            (list, "trees.statements trees.calls_in texts.words_of names.faults kinds.ties kinds.wants ways.way_without "
+                   "heaps.reached steps.steps_of passes.settled wanted.way_to spills.spans_of spills.prices_of moves.moves "
+                   "moves.openings"),
+            (dict, "texts.places_of kinds.kinds_of faces.all_faces ways.kinds_at ways.stand_ins lowering.named_codes "
+                   "wanted.wanted wanted.alive wanted.carried colours.colours spills.slots"),
             (tuple, "texts.can_follow names.in_sight names.order_of names.users_of plain.told_run plain.narrowed ways.tidy "
-                    "texts.point_at texts.read_unit texts.read_block faces.face_of lowering.named_code"),
+                    "texts.point_at texts.read_unit texts.read_block faces.face_of lowering.named_code heaps.made heaps.pictures "
+                    "heaps.moved walks.walk roads.ahead_of roads.way_past roads.readers stories.story steps.stepped "
+                    "passes.rewritten passes.lean colours.most spills.least"),
+            (int, "passes.lost_in spills.worth"),
             (bool, "words.is_name trees.is_unit alike.is_like names.does_end kinds.is_clash kinds.as_told kinds.is_sound "
-                   "faces.is_face plain.fits forms.is_named forms.is_placed ways.are_alike"),
+                   "faces.is_face plain.fits forms.is_named forms.is_placed ways.are_alike terms.told_same steps.is_step "
+                   "colours.is_colouring"),
         ):
             for path, arguments in samples():
                 if path in paths.split():
@@ -240,9 +318,11 @@ class WhatIsReturned(unittest.TestCase):
             )
         ] + [
             lambda thing: is_named(thing, SCOPE), lambda thing: is_placed(thing, SCOPE, 9),
-            lambda thing: is_clash(CLASHING, {}, thing), lambda thing: as_told(A, {}, thing),
+            lambda thing: is_clash(CLASHING, {}, thing), lambda thing: as_told(A, {}, thing), CODES.is_state,
+            lambda thing: is_step(IN_F, {"f": JOINED, "h": NUMBERS}, "f", thing), lambda thing: is_colouring(JOINED, [], thing),
         ]
         told = [MOMENT, CODE, PLACED, A, A[4][0], A[4][0][3], A[3][0], FACES["a"], clash(CLASHING, {}), kinds_of(A, {})]
+        told += [CODES.run(CODES.begin("f", [2, True]), 12), ("same", 0, 3, "v2"), colours(JOINED, [])]
         for judge in judges:
             for thing in odd_values() + [other for turn in (as_list, as_bool) for one in told for other in changed(one, turn)]:
                 self.assertIn(repr(judge(thing)), ("True", "False"))
@@ -257,6 +337,13 @@ class WhatIsReturned(unittest.TestCase):
         for found in (SCOPE, scope_of_codes(list(A[3]), [CODE])):
             self.assertEqual(set(vars(found)) & {"kinds", "functions"}, {"kinds", "functions"})
         self.assertEqual(set(vars(PROGRAM)) & {"units", "order", "faces"}, {"units", "order", "faces"})
+        self.assertEqual(set(vars(CODES)) & {"kinds", "codes", "scope"}, {"kinds", "codes", "scope"})
+        state = CODES.begin("f", [2, True])
+        for found in (state, CODES.step(state), CODES.run(state, 90)):
+            self.assertEqual([part.__class__ for part in found[:3]], [tuple, dict, tuple])
+            for part in parts(found):
+                if isinstance(part, dict):
+                    self.assertEqual(list(part), sorted(part))
 
 
 if __name__ == "__main__":

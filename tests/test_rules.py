@@ -23,6 +23,18 @@ INTERFACE = {
     "forms": "Scope scope_of_codes is_named is_placed",
     "ways": "kinds_at way_without tidy are_alike stand_ins without_stand_ins",
     "lowering": "scope_of named_code named_codes",
+    "heaps": "made pictures reached moved",
+    "runner": "Codes",
+    "walks": "walk",
+    "terms": "told_number told_same",
+    "roads": "ahead_of way_past readers ring_of",
+    "stories": "story",
+    "steps": "stepped is_step steps_of refusal",
+    "passes": "rewritten settled lost_in lean",
+    "wanted": "wanted way_to alive carried",
+    "colours": "most colours is_colouring",
+    "spills": "least worth slots spans_of prices_of",
+    "moves": "moves openings",
 }
 BUILTINS = set(
     "len range enumerate zip min max sum abs sorted reversed int str bool list tuple dict set isinstance ord repr any "
