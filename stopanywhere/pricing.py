@@ -16,7 +16,7 @@ class Keeping:
         self._last = max([last for _, last, _ in spans]) + 1
         self._empty = [0 for _ in range(self._last)]
         self.is_kept = [False for _ in spans]
-        self._beginning = [[] for _ in range(self._last + 1)]
+        self._beginning = [[] for _ in range(self._last)]
         self._ending = [[] for _ in range(self._last + 1)]
         for at, (first, last, _) in enumerate(spans):
             self._beginning[first].append(at)
@@ -52,15 +52,14 @@ class Keeping:
         is_changed = True
         while is_changed:
             # All steps on, taken in the order of the nodes, are done at once; only steps back give rise to others.
-            for node in range(self._last + 1):
+            for node in range(self._last):
                 self._go_on(node, far, steps)
             is_changed = any([self._goes_back(node, far, steps) for node in range(self._last, 0, -1)])
         return far, steps
 
     def _go_on(self, node, far, steps):
         """Tells the steps from a node to later ones."""
-        if node < self._last:
-            _step(node, node + 1, None, 0, far, steps)
+        _step(node, node + 1, None, 0, far, steps)
         for span in self._beginning[node]:
             _, last, cost = self._spans[span]
             if not self.is_kept[span]:

@@ -97,6 +97,62 @@ def fact_holds(row, places, scope, heap):
     }[word]
 
 
+PURE = "const copy plus minus times less atmost same not make tag part long".split()
+
+
+def places_in(thing):
+    """The places in a formula, or in a row behind its word."""
+    if isinstance(thing, tuple):
+        return [place for part in thing for place in places_in(part)]
+    return [thing] if isinstance(thing, str) and thing[:1] == "v" and thing[1:].isdigit() else []
+
+
+def check_form(test, scope, codes, name, code, paper, kinds_at):
+    """Whether a paper has the form of point 91, for a step's new code; of many blocks the first and the last ones."""
+    numbers = list(paper)
+    test.assertEqual(numbers, sorted(code[2]))
+    for number in sorted(set(numbers[:2] + numbers[-3:])):
+        anchor, facts, late = paper[number]
+        held = kinds_at(code, (number, 0))
+        test.assertTrue(1 <= len(anchor) <= 12)
+        test.assertEqual(anchor[-1][0], name)
+        called = None
+        for function, block, index, equations in anchor:
+            _, rows, _ = codes[function][2][block]
+            if called is not None:
+                test.assertEqual(rows[index][1:3], ("call", called))
+            called = function
+            there = kinds_at(codes[function], (block, index))
+            test.assertEqual(list(equations), sorted(equations))
+            for place, formula in equations.items():
+                check_formula(test, scope, formula, there[place], held)
+        for at, row in enumerate(facts):
+            test.assertIn(row[1], PURE)
+            test.assertIn(row[0], held)
+            reads = places_in(row[2:])
+            test.assertTrue(all(place in held for place in reads))
+            test.assertFalse(set(reads) & {other[0] for other in facts[at:]})
+        test.assertEqual(len({row[0] for row in facts}), len(facts))
+        test.assertTrue(late is False or (late is True and code[2][number][1][0][1] == "back"))
+    parameters = zip(codes[name][2][0][0], code[2][0][0])
+    test.assertEqual(paper[0], (((name, 0, 0, {old: ("of", new, 1, 0) for (old, _), (new, _) in parameters}),), (), False))
+
+
+def check_formula(test, scope, formula, kind, held):
+    if formula[0] == "is":
+        test.assertEqual(kind, "number")
+    elif formula[0] == "of":
+        test.assertEqual(held[formula[1]], kind)
+        test.assertIn(formula[2], (1, -1))
+        test.assertTrue(kind == "number" or formula[2:] == (1, 0))
+    else:
+        _, variant, parts = formula
+        test.assertEqual((formula[0], scope.choice(variant)), ("make", kind))
+        test.assertEqual(len(parts), len(scope.fields(variant)))
+        for part, field in zip(parts, scope.fields(variant)):
+            check_formula(test, scope, part, field, held)
+
+
 def check_paper(test, kinds, codes, name, code, paper, function, arguments, most, kinds_at):
     """Whether all that a paper tells holds in a run, wherever the new code comes to a block."""
     old = Visits(kinds, codes, name, function, arguments, most)

@@ -5,7 +5,7 @@ import unittest
 
 from code_tools import context, kinds_and_codes, numbers_code, sound_programs, starts_of
 from odd_values import as_bool, as_list, changed, odd_values
-from paper_runs import check_paper
+from paper_runs import check_form, check_paper
 from random_codes import random_code
 from stopanywhere.errors import BadCode, BadCodes, BadRows, BadScope, BadWord, NoFunction
 from stopanywhere.forms import Scope, is_named, scope_of_codes
@@ -59,6 +59,7 @@ class Rewritten(Case):
                     code, paper = stepped(scope, codes, name, step)
                     self.assertTrue(is_named(code, scope))
                     told.append((code, paper))
+                    check_form(self, scope, codes, name, code, paper, self.at_kinds(scope))
                     starts = starts_of(program, rng)
                     for function, arguments in rng.sample(starts, 1):
                         asked += check_paper(self, kinds, codes, name, code, paper, function, arguments, 40, self.at_kinds(scope))
@@ -84,6 +85,7 @@ class Rewritten(Case):
                     rows.append(("f", step))
                     seen[step[0]] = seen.get(step[0], 0) + 1
                     found, paper = stepped(scope, codes, "f", step)
+                    check_form(self, scope, codes, "f", found, paper, self.at_kinds(scope))
                     arguments = [1, rng.randint(-2, 2), 0][:taken]
                     asked += check_paper(self, [], codes, "f", found, paper, "f", arguments, 40, self.at_kinds(scope))
                     codes = {"f": found}
@@ -285,6 +287,25 @@ class Lean(Case):
         for number in (-3, 0, 7):
             self.same_runs(kinds, found, program, "f", [number])
         self.assertEqual(lean(scope, {}), ({}, []))
+
+    def test_a_ring_that_goes(self):
+        """c calls b where nothing leads once its branch is folded: then there is no ring of b any more."""
+        scope = Scope([], {name: (("number",), "number") for name in "bcd"})
+        codes = {
+            "b": numbers_code("b", {0: (["v0"], [("v1", "call", "c", ("v0",))], ("return", "v1"))}),
+            "c": numbers_code("c", {0: (["v0"], [("v1", "const", 0)], ("branch", "v1", 3, 4)),
+                                    3: ([], [("v2", "call", "b", ("v0",))], ("return", "v2")), 4: ([], [], ("return", "v0"))}),
+            "d": numbers_code("d", {0: (["v0"], [("v1", "call", "b", ("v0",))], ("return", "v1"))}),
+        }
+        self.assertEqual(refusal(scope, codes, "d", ("inline", 0, 1)), ("ring", ("b", "c", "b")))
+        found, changes = lean(scope, codes)
+        calls = {name: [row for _, rows, _ in code[2].values() for row in rows if row[1] == "call"] for name, code in found.items()}
+        # When b's turn came, there was a ring; behind it d takes in b, and c with it.
+        self.assertEqual({name: len(rows) for name, rows in calls.items()}, {"b": 1, "c": 0, "d": 0})
+        after, _ = rewritten(scope, codes, [("c", ("fold", 0, 2)), ("d", ("inline", 0, 1))])
+        self.assertIsNone(refusal(scope, after, "d", ("inline", 1, 1)))
+        steps = settled(scope, {**codes, "c": found["c"]}, "d", ["inline"])
+        self.assertEqual([step[0] for step in steps], ["inline", "inline"])
 
     def test_more_than_sixty_changes(self):
         rows = [(f"v{at}", "const", at) for at in range(1, 90)]
