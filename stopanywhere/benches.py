@@ -30,7 +30,7 @@ class Bench:
             self._charts[name] = Chart(self._codes[name], self.scope)
         return self._charts[name]
 
-    def ring(self, name):
+    def ring_through(self, name):
         """The shortest ring of calls from a name to itself, None if there is none."""
         if name not in self._rings:
             self._rings[name] = ring_of_calls(self._calls, name)

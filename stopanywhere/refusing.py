@@ -188,7 +188,7 @@ def _inline(bench, chart, step):
     rows = chart.blocks[number][1]
     if at == len(rows) or rows[at][1] != "call" or not bench.has(rows[at][2]):
         return ("row",)
-    ring = bench.ring(rows[at][2])
+    ring = bench.ring_through(rows[at][2])
     if ring is not None:
         return "ring", ring
     return ("large",) if is_inlined_too_large(chart, bench.chart(rows[at][2]), number, at) else None

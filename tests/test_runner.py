@@ -4,9 +4,10 @@ import random
 import unittest
 
 from code_tools import context, kinds_and_codes, numbers_code, sound_programs, starts_of
+from naive_placing import placed_of
 from odd_values import as_bool, as_list, changed, odd_values
 from stopanywhere.errors import BadArguments, BadCodes, BadKinds, BadMost, BadState, NoFunction
-from stopanywhere.forms import Scope
+from stopanywhere.forms import Scope, scope_of_codes
 from stopanywhere.lowering import scope_of
 from stopanywhere.runner import Codes
 from stopanywhere.ways import kinds_at
@@ -346,10 +347,12 @@ class Programs(unittest.TestCase):
         self.assertGreater(min(seen.values()), 0)
 
     def held(self, runner, state):
-        """Words for just the places that are held, in ascending dicts."""
+        """Words for just the places that are held, in ascending dicts; frames that wait hold no registers."""
         frames, heap = state[:2]
-        for function, block, index, places in frames:
-            self.assertEqual(list(places), list(kinds_at(runner.codes[function], runner.scope, (block, index))))
+        for at, (function, block, index, places) in enumerate(frames):
+            held = kinds_at(runner.codes[function], runner.scope, (block, index))
+            is_waiting = at < len(frames) - 1
+            self.assertEqual(list(places), [place for place in held if not is_waiting or place[0] != "r"])
             self.assertEqual(list(places), sorted(places))
         self.assertEqual(list(heap), sorted(heap))
 
@@ -357,7 +360,32 @@ class Programs(unittest.TestCase):
         rng = random.Random(52)
         for program in sound_programs(rng, 8, 1):
             kinds, codes = kinds_and_codes(program)
-            self.assertTrue(Codes(kinds, list(codes.values())).scope == scope_of(program.units[0], {}))
+            found = Codes(kinds, list(codes.values())).scope
+            self.assertTrue(found == scope_of(program.units[0], {}))
+            self.assertTrue(found == scope_of_codes(kinds, list(codes.values())))
+
+    def test_placed_code_does_what_named_code_does(self):
+        """What levels show, their ends and how many events there are do not differ; all states are states."""
+        rng = random.Random(53)
+        ends = {}
+        for program in sound_programs(rng, 10):
+            kinds, codes = kinds_and_codes(program)
+            named = Codes(kinds, list(codes.values()))
+            placed = Codes(kinds, [placed_of(code) for code in codes.values()])
+            for function, arguments in starts_of(program, rng):
+                one = named.run(named.begin(function, arguments), 600)
+                other = placed.begin(function, arguments)
+                for _ in range(25):
+                    other = placed.step(other)
+                    self.assertTrue(placed.is_state(other))
+                    self.held(placed, other)
+                other = placed.run(other, 4000)
+                if one[3] is not None:
+                    self.assertEqual((one[2], one[4], one[3][0]), (other[2], other[4], other[3][0]))
+                    if one[3][0] == "failed":
+                        self.assertEqual(one[3], other[3])
+                    ends[one[3][0]] = ends.get(one[3][0], 0) + 1
+        self.assertEqual(set(ends), {"returned", "failed"})
 
 
 class Attributes(unittest.TestCase):
