@@ -169,3 +169,27 @@ def formula_finds(formula, kind, scope, held):
             if not formula_finds(part, field, scope, held):
                 return False
     return True
+
+
+class Holdings:
+    """What the codes of functions, a dict that is not changed, hold at their spots; each spot is worked out once."""
+
+    def __init__(self, codes, scope):
+        self._codes = codes
+        self._scope = scope
+        self._starts = {}
+        self._held = {}
+
+    def starts(self, name):
+        """The dict from the blocks of a function to the kinds of what is held at their first spots."""
+        if name not in self._starts:
+            self._starts[name] = held_at_starts(self._codes[name], self._scope)
+        return self._starts[name]
+
+    def held_at(self, name, number, at):
+        """The dict from the places that are held ahead of a spot to their kinds."""
+        spot = (name, number, at)
+        if spot not in self._held:
+            rows = self._codes[name][2][number][1]
+            self._held[spot] = held_behind(rows[:at], self._scope, self.starts(name)[number])
+        return self._held[spot]

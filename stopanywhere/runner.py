@@ -3,7 +3,7 @@
 from stopanywhere.blocks import copy_of, given_in
 from stopanywhere.errors import BadArguments, BadCodes, BadKinds, BadMost, BadState, NoFunction
 from stopanywhere.forms import Scope, is_named, is_placed, is_startable, scope_of_codes
-from stopanywhere.holding import held_at_starts, held_behind
+from stopanywhere.holding import Holdings
 from stopanywhere.machine import Machine, Stand
 from stopanywhere.parts import kinds_within
 from stopanywhere.states import is_state_by
@@ -27,10 +27,10 @@ class Codes:
         self.kinds = declared
         self.scope = scope
         self.codes = ascending({code[0]: copy_of(code) for code in codes})
+        self._holdings = Holdings(self.codes, scope)
         self._tables = {}
         for name, code in self.codes.items():
-            self._tables[name] = (dict(code[2]), held_at_starts(code, scope))
-        self._held = {}
+            self._tables[name] = (dict(code[2]), self._holdings.starts(name))
 
     def __eq__(self, other):
         return isinstance(other, Codes) and self.kinds == other.kinds and self.codes == other.codes
@@ -68,7 +68,7 @@ class Codes:
 
     def is_state(self, thing):
         """Whether any value has the form of a state of these codes."""
-        return is_state_by(thing, self.codes, self.scope, self._held_at)
+        return is_state_by(thing, self.codes, self.scope, self._holdings)
 
     def _check_state(self, state):
         if not self.is_state(state):
@@ -84,14 +84,6 @@ class Codes:
             if machine.end_told is None:
                 events += int(machine.advance()) + int(machine.frames_to_tell() != ())
         return _state_of(machine, events)
-
-    def _held_at(self, function, number, at, is_waiting):
-        """The places that a frame holds at a spot; one that waits there holds no registers."""
-        spot = (function, number, at)
-        if spot not in self._held:
-            blocks, starts = self._tables[function]
-            self._held[spot] = list(held_behind(blocks[number][1][:at], self.scope, starts[number]))
-        return [place for place in self._held[spot] if not is_waiting or place[0] != "r"]
 
 
 def _state_of(machine, events):

@@ -5,10 +5,10 @@ from stopanywhere.values import is_number, is_number_between, is_tuple_of
 from stopanywhere.words import is_name
 
 
-def is_state_by(thing, codes, scope, held_at):
+def is_state_by(thing, codes, scope, holdings):
     """Whether any value has the form of a state of codes, a dict from functions to their codes.
 
-    held_at tells for a function, a block, an index, and whether a frame waits there, the places that it holds.
+    holdings tells which places they hold where.
     """
     if not is_tuple_of(thing, 5):
         return False
@@ -17,7 +17,7 @@ def is_state_by(thing, codes, scope, held_at):
         return False
     called = [frame[0] for frame in frames[1:]] + [None]
     for frame, function in zip(frames, called):
-        if not _holds_right(frame, function, codes, held_at):
+        if not _holds_right(frame, function, codes, holdings):
             return False
     if not is_heap(heap, scope) or not isinstance(shown, tuple) or not all([is_number(number) for number in shown]):
         return False
@@ -37,12 +37,15 @@ def _is_frame(thing, codes):
     return all([is_number(word) for word in list(places.values())])
 
 
-def _holds_right(frame, called, codes, held_at):
+def _holds_right(frame, called, codes, holdings):
     """Whether a frame holds just what it must, and stands at a call or try of what it waits for, if it does."""
     function, number, at, places = frame
     if called is not None and _called_at(codes[function][2][number], at) != called:
         return False
-    wanted = held_at(function, number, at, called is not None)
+    wanted = list(holdings.held_at(function, number, at))
+    if called is not None:
+        # Behind its taking the arguments a frame that waits holds no registers.
+        wanted = [place for place in wanted if place[0] != "r"]
     return len(places) == len(wanted) and all([place in places for place in wanted])
 
 

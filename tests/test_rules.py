@@ -275,6 +275,20 @@ class Rules(unittest.TestCase):
                     told = [node.targets[0].id]
                 self.assertEqual(set(told) - used - promised, set() if name != "errors" else set(told) - used - promised, name)
 
+    def test_methods_are_called_where_they_stand(self):
+        methods, stored = set(), set()
+        for _, tree in self.each():
+            for node in ast.walk(tree):
+                if isinstance(node, ast.ClassDef):
+                    methods |= {inner.name for inner in node.body if isinstance(inner, ast.FunctionDef)}
+                elif isinstance(node, ast.Attribute) and isinstance(node.ctx, ast.Store):
+                    stored.add(node.attr)
+        for name, tree in self.each():
+            called = {node.func for node in ast.walk(tree) if isinstance(node, ast.Call)}
+            for node in ast.walk(tree):
+                if isinstance(node, ast.Attribute) and isinstance(node.ctx, ast.Load) and node not in called:
+                    self.assertNotIn(node.attr, METHODS | (methods - stored), (name, node.lineno))
+
     def test_methods_and_attributes_are_apart(self):
         for name, tree in self.each():
             for node in ast.walk(tree):
