@@ -45,6 +45,10 @@ class Machine:
         action = ROW_ACTIONS[row[1]]
         return action(self, stand, row)
 
+    def pass_one(self):
+        """Does one row or end; how many events that brings, with what the run then stands at."""
+        return int(self.advance()) + int(self.frames_to_tell() != ())
+
     def frames_to_tell(self):
         """The frames of the mark or back at which the run stands, () where it stands at none."""
         if not self.stands:

@@ -1,4 +1,4 @@
-"""Pictures of words by a heap."""
+"""Words that formulas tell, and pictures of words by a heap."""
 
 
 class WordMeeting:
@@ -43,3 +43,29 @@ class WordMeeting:
             item = self._scope.item(kind)
             found.append((kind, self._pictures([item for _ in words], words)))
         return tuple(found)
+
+
+def word_of(formula, places):
+    """The word that a formula tells by the words of places, None if it or a part of it is lost."""
+    word = formula[0]
+    if word == "is":
+        return formula[1]
+    if word == "of":
+        _, place, sign, number = formula
+        return sign * places[place] + number
+    if word == "lost":
+        return None
+    _, variant, parts = formula
+    told = [word_of(part, places) for part in parts]
+    return None if None in told else ("make", variant, tuple(told))
+
+
+def pictured_end(told, kind, scope, heap):
+    """An end, None ahead of it, as moments tell worths; kind is that of what is returned."""
+    if told is None:
+        return ("cut",)
+    if told[0] == "failed":
+        return told
+    meeting = WordMeeting(scope, heap)
+    picture = meeting.picture(kind, told[1])
+    return "returned", picture, meeting.rows_met()

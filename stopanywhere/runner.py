@@ -7,6 +7,7 @@ from stopanywhere.holding import Holdings
 from stopanywhere.machine import Machine, Stand
 from stopanywhere.parts import kinds_within
 from stopanywhere.states import is_state_by
+from stopanywhere.telling import Teller
 from stopanywhere.values import ascending, is_list, is_number, is_number_between
 
 
@@ -28,6 +29,7 @@ class Codes:
         self.scope = scope
         self.codes = ascending({code[0]: copy_of(code) for code in codes})
         self._holdings = Holdings(self.codes, scope)
+        self._tellers = {}
         self._tables = {}
         for name, code in self.codes.items():
             self._tables[name] = (dict(code[2]), self._holdings.starts(name))
@@ -38,7 +40,7 @@ class Codes:
     def begin(self, function, arguments):
         """The state at the first spot of a function's code."""
         machine = self.begun(function, arguments)
-        return _state_of(machine, int(machine.frames_to_tell() != ()))
+        return state_of(machine, int(machine.frames_to_tell() != ()))
 
     def begun(self, function, arguments):
         """The machine at the first spot of a function's code."""
@@ -76,17 +78,29 @@ class Codes:
 
     def _led(self, state, most):
         self._check_state(state)
-        frames, heap, shown, end, events = state
-        stands = [Stand(function, block, at, dict(places)) for function, block, at, places in frames]
-        boxes = {address: heap[address] for address in heap}
-        machine = Machine(self._tables, self.scope, stands, boxes, list(shown), end)
+        machine = self.machine_at(state)
+        events = state[4]
         for _ in range(most):
             if machine.end_told is None:
-                events += int(machine.advance()) + int(machine.frames_to_tell() != ())
-        return _state_of(machine, events)
+                events += machine.pass_one()
+        return state_of(machine, events)
+
+    def machine_at(self, state):
+        """The machine of a run that is in a state of these codes."""
+        frames, heap, shown, end, _ = state
+        stands = [Stand(function, block, at, dict(places)) for function, block, at, places in frames]
+        boxes = {address: heap[address] for address in heap}
+        return Machine(self._tables, self.scope, stands, boxes, list(shown), end)
+
+    def teller(self, function):
+        """What tells of the spots of a function's code."""
+        if function not in self._tellers:
+            self._tellers[function] = Teller(self.codes[function], self.scope)
+        return self._tellers[function]
 
 
-def _state_of(machine, events):
+def state_of(machine, events):
+    """The state of a machine behind so many events."""
     frames = [(stand.function, stand.block, stand.at, ascending(stand.places)) for stand in machine.stands]
     return tuple(frames), ascending(machine.heap), tuple(machine.shown), machine.end_told, events
 

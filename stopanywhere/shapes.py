@@ -59,7 +59,7 @@ def is_block_number(thing):
 def _is_code_block(thing):
     if not is_tuple_of(thing, 3) or not isinstance(thing[0], tuple) or not isinstance(thing[1], tuple):
         return False
-    if not all([_is_parameter(parameter) for parameter in thing[0]]) or not all([_is_row(row) for row in thing[1]]):
+    if not all([_is_parameter(parameter) for parameter in thing[0]]) or not all([is_row(row) for row in thing[1]]):
         return False
     return _is_end(thing[2])
 
@@ -68,7 +68,7 @@ def _is_parameter(thing):
     return is_tuple_of(thing, 2) and is_place(thing[0]) and is_code_kind(thing[1])
 
 
-def _is_row(thing):
+def is_row(thing):
     if not isinstance(thing, tuple) or len(thing) < 2 or not isinstance(thing[1], str) or thing[1] not in ROWS:
         return False
     gives, letters = ROWS[thing[1]]

@@ -63,6 +63,22 @@ def multiplied(one, other):
     return _sum_of(numbers)
 
 
+def with_value(told, atom, value):
+    """A sum with a number in the place of an atom."""
+    numbers = {}
+    for product, number in told:
+        rest = tuple([other for other in product if other != atom])
+        for _ in range(len(product) - len(rest)):
+            number = number * value
+        numbers[rest] = numbers.get(rest, 0) + number
+    return _sum_of(numbers)
+
+
+def atoms_in(told):
+    """The ascending list of the atoms in a sum."""
+    return sorted(set([atom for product, _ in told for atom in product]))
+
+
 def is_large(told):
     """Whether a sum has too many products with atoms, too many atoms in one, or too long a number before atoms."""
     with_atoms = [(product, number) for product, number in told if product != ()]

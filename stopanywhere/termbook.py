@@ -28,6 +28,10 @@ class TermBook:
         atom = atom_of(term)
         return () if atom is None else self._atoms[atom]
 
+    def told_atom(self, atom):
+        """The word and the parts of an atom, by its number in sums."""
+        return self._atoms[atom]
+
     def reckoned(self, word, terms):
         """The term of a row of a word over numbers."""
         if word == "not":
@@ -78,11 +82,11 @@ class TermBook:
         if number is not None:
             return sum_of_number(int(number == 0))
         for told in (term, turned(term)):
-            if self._is_truth(told):
+            if self.is_truth(told):
                 return one_less(told)
         return self.atom("zero", min(term, turned(term)))
 
-    def _is_truth(self, term):
+    def is_truth(self, term):
         """Whether a term is an atom above(..) or zero(..), or 1 less such a one."""
         told = self.told_of(term) + self.told_of(one_less(term))
         return told != () and told[0] in TRUTHS

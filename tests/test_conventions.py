@@ -12,9 +12,13 @@ from stopanywhere.forms import Scope, is_named, is_placed, scope_of_codes
 from stopanywhere.kinds import as_told, clash, is_clash, kinds_of
 from stopanywhere.lowering import named_code, named_codes, scope_of
 from stopanywhere.names import does_end
+from stopanywhere.collecting import reached_of
+from stopanywhere.papers import is_paper
+from stopanywhere.placing import is_placing, placing
 from stopanywhere.plain import Plain, Program, told_run
 from stopanywhere.runner import Codes
-from stopanywhere.steps import is_step
+from stopanywhere.sessions import Session
+from stopanywhere.steps import is_step, stepped
 from stopanywhere.texts import read_unit
 from stopanywhere.ways import tidy
 from test_forms import PLACED, SCOPE
@@ -84,6 +88,23 @@ PARAMETERS = {
         "least": "spans room", "worth": "spans room prices", "slots": "code room", "spans_of": "code", "prices_of": "code room",
     },
     "moves": {"moves": "pairs helpers", "openings": "pairs"},
+    "placing": {
+        "placing": "code registers", "is_placing": "code registers places", "found": "code registers places",
+        "lost_way": "code registers places spot place", "placed": "code registers places", "placed_code": "code registers",
+    },
+    "papers": {"is_paper": "scope codes code thing"},
+    "judge": {"judge": "scope codes code paper", "judge_all": "scope codes changes", "parted": "scope codes code paper"},
+    "tables": {"roots_at": "code scope spot waiting", "told_at": "code scope spot waiting", "table": "code scope"},
+    "collecting": {
+        "roots_of": "codes state", "reached_of": "codes state", "collected": "codes state addresses",
+        "alike_states": "codes state other",
+    },
+    "sessions": {
+        "Session": "codes function arguments", "Session.at": "", "Session.state": "", "Session.events": "", "Session.outputs": "",
+        "Session.end": "", "Session.forth": "many", "Session.back": "many", "Session.to_events": "many", "Session.moment": "",
+        "Session.told": "", "Session.reached": "", "Session.move": "addresses", "Session.last_other": "depth name",
+        "led": "codes function arguments most",
+    },
 }
 A = read_unit(
     "unit a choice c = v | w(number, c) row r of c "
@@ -101,6 +122,9 @@ MOMENT = told_run(PROGRAM, "h", [1], 20)[2][-1]
 NAMES = [[name for name, _ in frame[2]] for frame in MOMENT[0]]
 LAST = max(CODE[2])
 TEXT = "unit a\nfunction g() { show 1 } function f() { while true { show 2 } }"
+
+
+PLACE_ORDERED = ("ways.stand_ins", "wanted.carried", "colours.colours", "spills.slots", "placing.placing")
 
 
 def samples():
@@ -154,6 +178,27 @@ def samples_of_codes():
         ("spills.worth", [spans, 1, [0, 0, 2]]), ("spills.slots", [JOINED, 1]), ("spills.slots", [NUMBERS, 1]),
         ("spills.spans_of", [NUMBERS]), ("spills.prices_of", [NUMBERS, 1]), ("moves.moves", [pairs, ("r6", "r7")]),
         ("moves.openings", [pairs]),
+    ] + samples_of_levels()
+
+
+def samples_of_levels():
+    """The same of placings, papers, tables, states and sessions."""
+    plain = {"h": NUMBERS, "f": JOINED}
+    lies = placing(JOINED, 6)
+    dead, dead_paper = stepped(IN_F, plain, "f", ("dead", 0, 2))
+    wrong = {**dead_paper, 9: ((("f", 9, 0, {"v8": ("is", 3), "v4": ("of", "v4", 1, 0)}),), (), False)}
+    state = CODES.run(CODES.begin("f", [2, True]), 4)
+    addresses = [at + 20 for at in range(len(reached_of(CODES, state)))]
+    return [
+        ("placing.placing", [JOINED, 6]), ("placing.is_placing", [JOINED, 6, lies]), ("placing.found", [JOINED, 6, lies]),
+        ("placing.lost_way", [JOINED, 6, lies, (9, 0), "v1"]), ("placing.placed", [JOINED, 6, lies]), ("placing.placed_code", [JOINED, 7]),
+        ("papers.is_paper", [IN_F, plain, dead, dead_paper]), ("judge.judge", [IN_F, plain, dead, dead_paper]),
+        ("judge.judge", [IN_F, plain, dead, wrong]), ("judge.judge_all", [IN_F, plain, [(dead, dead_paper)]]),
+        ("judge.judge_all", [IN_F, plain, [(dead, wrong)]]), ("judge.parted", [IN_F, plain, dead, wrong]),
+        ("tables.roots_at", [CODE, IN_A, (0, 4), False]), ("tables.told_at", [CODE, IN_A, (0, 4), False]), ("tables.table", [CODE, IN_A]),
+        ("tables.table", [JOINED, IN_F]), ("collecting.roots_of", [CODES, state]), ("collecting.reached_of", [CODES, state]),
+        ("collecting.collected", [CODES, state, addresses]), ("collecting.alike_states", [CODES, state, state]),
+        ("sessions.led", [CODES, "f", [2, True], 40]),
     ]
 
 
@@ -286,7 +331,7 @@ class WhatIsReturned(unittest.TestCase):
         for path, arguments in samples():
             for part in parts(called(path)(*arguments)):
                 # These stand in place order.
-                is_placed_dict = path in ("ways.stand_ins", "wanted.carried", "colours.colours", "spills.slots")
+                is_placed_dict = path in PLACE_ORDERED
                 if isinstance(part, dict) and not is_placed_dict:
                     self.assertEqual(list(part), sorted(part), path)
 
@@ -294,17 +339,19 @@ class WhatIsReturned(unittest.TestCase):
         for kind, paths in (
             (list, "trees.statements trees.calls_in texts.words_of names.faults kinds.ties kinds.wants ways.way_without "
                    "heaps.reached steps.steps_of passes.settled wanted.way_to spills.spans_of spills.prices_of moves.moves "
-                   "moves.openings"),
+                   "moves.openings placing.lost_way tables.roots_at collecting.roots_of collecting.reached_of"),
             (dict, "texts.places_of kinds.kinds_of faces.all_faces ways.kinds_at ways.stand_ins lowering.named_codes "
-                   "wanted.wanted wanted.alive wanted.carried colours.colours spills.slots"),
+                   "wanted.wanted wanted.alive wanted.carried colours.colours spills.slots placing.placing placing.found judge.parted "
+                   "tables.table"),
             (tuple, "texts.can_follow names.in_sight names.order_of names.users_of plain.told_run plain.narrowed ways.tidy "
                     "texts.point_at texts.read_unit texts.read_block faces.face_of lowering.named_code heaps.made heaps.pictures "
                     "heaps.moved walks.walk roads.ahead_of roads.way_past roads.readers stories.story steps.stepped "
-                    "passes.rewritten passes.lean colours.most spills.least"),
+                    "passes.rewritten passes.lean colours.most spills.least placing.placed placing.placed_code tables.told_at "
+                    "collecting.collected sessions.led"),
             (int, "passes.lost_in spills.worth"),
             (bool, "words.is_name trees.is_unit alike.is_like names.does_end kinds.is_clash kinds.as_told kinds.is_sound "
                    "faces.is_face plain.fits forms.is_named forms.is_placed ways.are_alike terms.told_same steps.is_step "
-                   "colours.is_colouring"),
+                   "colours.is_colouring placing.is_placing papers.is_paper collecting.alike_states"),
         ):
             for path, arguments in samples():
                 if path in paths.split():
@@ -320,9 +367,11 @@ class WhatIsReturned(unittest.TestCase):
             lambda thing: is_named(thing, SCOPE), lambda thing: is_placed(thing, SCOPE, 9),
             lambda thing: is_clash(CLASHING, {}, thing), lambda thing: as_told(A, {}, thing), CODES.is_state,
             lambda thing: is_step(IN_F, {"f": JOINED, "h": NUMBERS}, "f", thing), lambda thing: is_colouring(JOINED, [], thing),
+            lambda thing: is_placing(JOINED, 6, thing), lambda thing: is_paper(IN_F, {"f": JOINED}, JOINED, thing),
         ]
         told = [MOMENT, CODE, PLACED, A, A[4][0], A[4][0][3], A[3][0], FACES["a"], clash(CLASHING, {}), kinds_of(A, {})]
         told += [CODES.run(CODES.begin("f", [2, True]), 12), ("same", 0, 3, "v2"), colours(JOINED, [])]
+        told += [placing(JOINED, 6), stepped(IN_F, {"f": JOINED, "h": NUMBERS}, "f", ("dead", 0, 2))[1]]
         for judge in judges:
             for thing in odd_values() + [other for turn in (as_list, as_bool) for one in told for other in changed(one, turn)]:
                 self.assertIn(repr(judge(thing)), ("True", "False"))
@@ -344,6 +393,25 @@ class WhatIsReturned(unittest.TestCase):
             for part in parts(found):
                 if isinstance(part, dict):
                     self.assertEqual(list(part), sorted(part))
+
+    def test_sessions(self):
+        session = Session(CODES, "f", [2, True])
+        found = [session.at(), session.state(), session.events(), session.outputs(), session.end(), session.forth(9), session.back(2)]
+        self.assertEqual([thing.__class__ for thing in found], [int, tuple, int, list, tuple, int, int])
+        found = [session.to_events(2), session.moment(), session.told(), session.reached()]
+        self.assertEqual([thing.__class__ for thing in found], [bool, tuple, list, list])
+        for ask in (session.state, session.outputs, session.moment, session.told, session.reached):
+            one, other = ask(), ask()
+            self.assertEqual(one, other)
+            self.assertEqual(set(kept(one)) & set(kept(other)), set())
+            for part in parts(one):
+                if isinstance(part, dict):
+                    self.assertEqual(list(part), sorted(part))
+        addresses = [at + 30 for at in range(len(session.reached()))]
+        before = list(addresses)
+        self.assertIsNone(session.move(addresses))
+        self.assertEqual(addresses, before)
+        self.assertEqual(session.reached(), addresses)
 
 
 if __name__ == "__main__":

@@ -35,6 +35,12 @@ INTERFACE = {
     "colours": "most colours is_colouring",
     "spills": "least worth slots spans_of prices_of",
     "moves": "moves openings",
+    "placing": "placing is_placing found lost_way placed placed_code",
+    "papers": "is_paper",
+    "judge": "judge judge_all parted",
+    "tables": "roots_at told_at table",
+    "collecting": "roots_of reached_of collected alike_states",
+    "sessions": "Session led",
 }
 BUILTINS = set(
     "len range enumerate zip min max sum abs sorted reversed int str bool list tuple dict set isinstance ord repr any "
