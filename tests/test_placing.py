@@ -158,7 +158,8 @@ class Placings(unittest.TestCase):
         self.assertFalse(is_placing(code, 8, {**told, "v1": "r5"}))
         for wrong in ({"v0": "r0"}, {**told, "v2": "r1"}, {**told, 0: "r1"}, {"v0": "r0", "v2": "r2"}, [("v0", "r0")]):
             self.assertFalse(is_placing(code, 6, wrong))
-        for thing in odd_values() + list(changed(told, lambda part: odd_values() if isinstance(part, str) else [])):
+        others = [thing for thing in odd_values() if thing != "r0"]
+        for thing in odd_values() + list(changed(told, lambda part: others if isinstance(part, str) else [])):
             self.assertIs(is_placing(code, 6, thing), False, thing)
         # Two places that are not alive at one spot may lie in one.
         self.assertTrue(is_placing(code, 6, {"v0": "r1", "v1": "r1"}))
