@@ -86,6 +86,10 @@ class Session:
     def to_events(self, many):
         """Goes to the first state with so many events; whether there is one, it stays if not."""
         _check_most(many)
+        return self.lead_to(many)
+
+    def lead_to(self, many):
+        """The same for any number of events."""
         if many <= self._passed:
             # States of the way here that are kept have ascending numbers of events.
             ahead = [pair for pair in self._kept if pair[1][4] < many]

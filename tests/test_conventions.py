@@ -6,20 +6,26 @@ import inspect
 import unittest
 
 from odd_values import as_bool, as_list, changed, odd_values
+from stopanywhere.chips import chip_begin, chip_step
+from stopanywhere.collecting import reached_of
 from stopanywhere.colours import colours, is_colouring
+from stopanywhere.desk import Desk
 from stopanywhere.faces import all_faces
 from stopanywhere.forms import Scope, is_named, is_placed, scope_of_codes
+from stopanywhere.images import image_of, is_image
 from stopanywhere.kinds import as_told, clash, is_clash, kinds_of
+from stopanywhere.layouts import is_layout, is_reasons, least_layout, leaps, plain_orders
 from stopanywhere.lowering import named_code, named_codes, scope_of
+from stopanywhere.bits import is_instruction
 from stopanywhere.names import does_end
-from stopanywhere.collecting import reached_of
+from stopanywhere.objects import is_bundle, is_object, linked, object_of
 from stopanywhere.papers import is_paper
 from stopanywhere.placing import is_placing, placing
 from stopanywhere.plain import Plain, Program, told_run
 from stopanywhere.runner import Codes
 from stopanywhere.sessions import Session
 from stopanywhere.steps import is_step, stepped
-from stopanywhere.texts import read_unit
+from stopanywhere.texts import read_unit, unit_text
 from stopanywhere.ways import tidy
 from test_forms import PLACED, SCOPE
 
@@ -105,6 +111,30 @@ PARAMETERS = {
         "Session.told": "", "Session.reached": "", "Session.move": "addresses", "Session.last_other": "depth name",
         "led": "codes function arguments most",
     },
+    "objects": {
+        "object_of": "unit faces registers", "is_object": "thing", "linked": "objects order", "is_bundle": "thing",
+        "calls_of": "bundle", "kept": "bundle functions",
+    },
+    "again": {"build": "units objects registers", "stale": "units objects registers"},
+    "bits": {
+        "count_bits": "number", "number_bits": "number", "read_count": "bits at", "read_number": "bits at",
+        "is_instruction": "registers thing", "bits_of": "registers instructions", "read_bits": "registers bits",
+        "instruction_at": "registers bits address",
+    },
+    "layouts": {
+        "plain_orders": "bundle", "leaps": "bundle orders", "distance": "bundle orders long leap", "size": "bundle orders long",
+        "is_layout": "bundle orders thing", "meet": "bundle orders one other", "least_layout": "bundle orders",
+        "reasons": "bundle orders", "is_reasons": "bundle orders thing",
+    },
+    "images": {
+        "image_of": "bundle orders long", "image": "bundle", "is_image": "thing", "read_image": "image", "spot_at": "image address",
+        "spot_behind": "image address", "address_of": "image spot",
+    },
+    "chips": {
+        "chip_begin": "image function arguments", "chip_step": "image state", "chip_run": "image function arguments most",
+        "runner_state": "image state",
+    },
+    "desk": {"Desk": "texts function arguments count", "Desk.say": "line"},
 }
 A = read_unit(
     "unit a choice c = v | w(number, c) row r of c "
@@ -199,6 +229,32 @@ def samples_of_levels():
         ("tables.table", [JOINED, IN_F]), ("collecting.roots_of", [CODES, state]), ("collecting.reached_of", [CODES, state]),
         ("collecting.collected", [CODES, state, addresses]), ("collecting.alike_states", [CODES, state, state]),
         ("sessions.led", [CODES, "f", [2, True], 40]),
+    ] + samples_of_making()
+
+
+def samples_of_making():
+    """The same of objects, bundles, bits, images and the chip."""
+    objects = {"a": object_of(A, {}, 6), "b": object_of(B, FACES, 6)}
+    bundle = linked(list(objects.values()), ["b", "a"])
+    orders = plain_orders(bundle)
+    least = least_layout(bundle, orders)
+    told = image_of(bundle, orders, least)
+    state = chip_begin(told, "f", [2, True])
+    for _ in range(9):
+        state = chip_step(told, state)
+    some = [("const", "r0", 5), ("make", "v", "r1", ()), ("jump", ("long", -7)), ("return",)]
+    return [
+        ("objects.object_of", [B, FACES, 6]), ("objects.is_object", [objects["b"]]), ("objects.linked", [list(objects.values()), ["a", "b"]]),
+        ("objects.is_bundle", [bundle]), ("objects.calls_of", [bundle]), ("objects.kept", [bundle, ["h"]]), ("again.build", [[B, A], {"a": objects["a"]}, 6]),
+        ("again.stale", [[B, A], objects, 7]), ("bits.count_bits", [3]), ("bits.number_bits", [-3]), ("bits.read_count", ["00100", 0]),
+        ("bits.read_number", ["00100", 0]), ("bits.is_instruction", [6, some[0]]), ("bits.bits_of", [6, some]), ("bits.read_bits", [6, told[3]]),
+        ("bits.instruction_at", [6, told[3], 0]), ("layouts.plain_orders", [bundle]), ("layouts.leaps", [bundle, orders]),
+        ("layouts.distance", [bundle, orders, least, leaps(bundle, orders)[0]]), ("layouts.size", [bundle, orders, least]),
+        ("layouts.is_layout", [bundle, orders, least]), ("layouts.meet", [bundle, orders, least, least]), ("layouts.least_layout", [bundle, orders]),
+        ("layouts.reasons", [bundle, orders]), ("layouts.is_reasons", [bundle, orders, least]), ("images.image_of", [bundle, orders, least]),
+        ("images.image", [bundle]), ("images.is_image", [told]), ("images.read_image", [told]), ("images.spot_at", [told, 0]),
+        ("images.spot_behind", [told, len(told[3])]), ("images.address_of", [told, ("f", 0, 1)]), ("chips.chip_begin", [told, "f", [2, True]]),
+        ("chips.chip_step", [told, state]), ("chips.chip_run", [told, "f", [2, True], 500]), ("chips.runner_state", [told, state]),
     ]
 
 
@@ -339,38 +395,47 @@ class WhatIsReturned(unittest.TestCase):
         for kind, paths in (
             (list, "trees.statements trees.calls_in texts.words_of names.faults kinds.ties kinds.wants ways.way_without "
                    "heaps.reached steps.steps_of passes.settled wanted.way_to spills.spans_of spills.prices_of moves.moves "
-                   "moves.openings placing.lost_way tables.roots_at collecting.roots_of collecting.reached_of"),
+                   "moves.openings placing.lost_way tables.roots_at collecting.roots_of collecting.reached_of bits.read_bits layouts.leaps"),
+            (str, "bits.count_bits bits.number_bits bits.bits_of"),
             (dict, "texts.places_of kinds.kinds_of faces.all_faces ways.kinds_at ways.stand_ins lowering.named_codes "
                    "wanted.wanted wanted.alive wanted.carried colours.colours spills.slots placing.placing placing.found judge.parted "
-                   "tables.table"),
+                   "tables.table objects.calls_of layouts.plain_orders"),
             (tuple, "texts.can_follow names.in_sight names.order_of names.users_of plain.told_run plain.narrowed ways.tidy "
                     "texts.point_at texts.read_unit texts.read_block faces.face_of lowering.named_code heaps.made heaps.pictures "
                     "heaps.moved walks.walk roads.ahead_of roads.way_past roads.readers stories.story steps.stepped "
                     "passes.rewritten passes.lean colours.most spills.least placing.placed placing.placed_code tables.told_at "
-                    "collecting.collected sessions.led"),
-            (int, "passes.lost_in spills.worth"),
+                    "collecting.collected sessions.led objects.object_of objects.linked objects.kept again.build again.stale bits.read_count "
+                    "bits.read_number bits.instruction_at layouts.meet layouts.least_layout layouts.reasons images.image_of images.image "
+                    "images.read_image images.spot_at images.spot_behind chips.chip_begin chips.chip_step chips.chip_run chips.runner_state"),
+            (int, "passes.lost_in spills.worth layouts.distance layouts.size images.address_of"),
             (bool, "words.is_name trees.is_unit alike.is_like names.does_end kinds.is_clash kinds.as_told kinds.is_sound "
                    "faces.is_face plain.fits forms.is_named forms.is_placed ways.are_alike terms.told_same steps.is_step "
-                   "colours.is_colouring placing.is_placing papers.is_paper collecting.alike_states"),
+                   "colours.is_colouring placing.is_placing papers.is_paper collecting.alike_states objects.is_object objects.is_bundle "
+                   "bits.is_instruction layouts.is_layout layouts.is_reasons images.is_image"),
         ):
             for path, arguments in samples():
                 if path in paths.split():
                     self.assertIs(called(path)(*arguments).__class__, kind, path)
 
     def test_what_judges_any_value_answers_true_or_false(self):
+        told_object = object_of(read_unit("unit a function f(n) { show n return n }"), {}, 6)
+        bundle = linked([told_object], ["a"])
+        orders = plain_orders(bundle)
         judges = [
             called(path) for path in (
                 "words.is_name", "trees.is_kind", "trees.is_expression", "trees.is_block", "trees.is_function",
-                "trees.is_declaration", "trees.is_unit", "faces.is_face",
+                "trees.is_declaration", "trees.is_unit", "faces.is_face", "objects.is_object", "objects.is_bundle", "images.is_image",
             )
         ] + [
             lambda thing: is_named(thing, SCOPE), lambda thing: is_placed(thing, SCOPE, 9),
             lambda thing: is_clash(CLASHING, {}, thing), lambda thing: as_told(A, {}, thing), CODES.is_state,
             lambda thing: is_step(IN_F, {"f": JOINED, "h": NUMBERS}, "f", thing), lambda thing: is_colouring(JOINED, [], thing),
             lambda thing: is_placing(JOINED, 6, thing), lambda thing: is_paper(IN_F, {"f": JOINED}, JOINED, thing),
+            lambda thing: is_instruction(6, thing), lambda thing: is_layout(bundle, orders, thing), lambda thing: is_reasons(bundle, orders, thing),
         ]
         told = [MOMENT, CODE, PLACED, A, A[4][0], A[4][0][3], A[3][0], FACES["a"], clash(CLASHING, {}), kinds_of(A, {})]
         told += [CODES.run(CODES.begin("f", [2, True]), 12), ("same", 0, 3, "v2"), colours(JOINED, [])]
+        told += [told_object, bundle, image_of(bundle, orders, least_layout(bundle, orders)), ("make", "v", "r1", ("r0",))]
         told += [placing(JOINED, 6), stepped(IN_F, {"f": JOINED, "h": NUMBERS}, "f", ("dead", 0, 2))[1]]
         for judge in judges:
             for thing in odd_values() + [other for turn in (as_list, as_bool) for one in told for other in changed(one, turn)]:
@@ -393,6 +458,11 @@ class WhatIsReturned(unittest.TestCase):
             for part in parts(found):
                 if isinstance(part, dict):
                     self.assertEqual(list(part), sorted(part))
+
+    def test_desks(self):
+        told = Desk([unit_text(A)], "f", [2, True], 6)
+        for line in ("where", "next", 7, "shown", None, "worth a", "level image"):
+            self.assertIs(told.say(line).__class__, str)
 
     def test_sessions(self):
         session = Session(CODES, "f", [2, True])

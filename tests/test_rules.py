@@ -41,6 +41,13 @@ INTERFACE = {
     "tables": "roots_at told_at table",
     "collecting": "roots_of reached_of collected alike_states",
     "sessions": "Session led",
+    "objects": "object_of is_object linked is_bundle calls_of kept",
+    "again": "build stale",
+    "bits": "count_bits number_bits read_count read_number is_instruction bits_of read_bits instruction_at",
+    "layouts": "plain_orders leaps distance size is_layout meet least_layout reasons is_reasons",
+    "images": "image_of image is_image read_image spot_at spot_behind address_of",
+    "chips": "chip_begin chip_step chip_run runner_state",
+    "desk": "Desk",
 }
 BUILTINS = set(
     "len range enumerate zip min max sum abs sorted reversed int str bool list tuple dict set isinstance ord repr any "
@@ -207,7 +214,8 @@ class Rules(unittest.TestCase):
                         "list", "tuple", "dict", "sorted", "enumerate", "zip", "any", "all", "sum", "min", "max"
                     )
                     is_loop = isinstance(around, (ast.For, ast.comprehension)) and around.iter is node
-                    self.assertTrue(is_listed or is_loop, (name, node.lineno))
+                    is_turned = called == "range" and isinstance(around, ast.Call) and getattr(around.func, "id", "") == "reversed"
+                    self.assertTrue(is_listed or is_loop or is_turned, (name, node.lineno))
 
     def test_imports_go_up_alone(self):
         order = {}
