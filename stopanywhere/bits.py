@@ -1,7 +1,9 @@
 """Bits: counts, numbers and instructions, and how they are read."""
 
-from stopanywhere.coding import bits_of_count, bits_of_instruction, bits_of_number, count_at, has_instruction_form
-from stopanywhere.coding import is_bit_string, number_at, read_instruction
+from stopanywhere.coding import (
+    bits_of_count, bits_of_instruction, bits_of_number, count_at, has_instruction_form, is_bit_string, number_at,
+    read_instruction,
+)
 from stopanywhere.errors import BadAddress, BadBits, BadInstruction, BadNumber, BadRegisters
 from stopanywhere.values import is_list, is_number, is_number_between
 

@@ -40,7 +40,8 @@ class Desk:
         if words is None:
             return "what"
         action = ACTIONS[words[0]]
-        return action(self, *words[1:])
+        rest = words[1:]
+        return action(self, *rest)
 
     def _begun(self, level):
         """A session at the beginning of a run at a level."""

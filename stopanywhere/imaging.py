@@ -75,7 +75,7 @@ def read_plainly(image):
     instructions = instructions_in(registers, bits)
     if instructions is None:
         return None
-    reader = Reader(table, instructions, len(bits))
+    reader = BlockReader(table, instructions, len(bits))
     codes = []
     for name, result, told in table:
         blocks = {}
@@ -105,7 +105,7 @@ def instructions_in(registers, bits):
     return found
 
 
-class Reader:
+class BlockReader:
     """What reads blocks out of instructions, by the table of an image; long are the long leaps met so far."""
 
     def __init__(self, table, instructions, many):

@@ -39,19 +39,33 @@ def joined(words):
 
 
 def text_of_worth(picture, rows):
-    """A picture as a text; rows are those that are met through it, by their numbers in it."""
-    return _text(picture, rows, {})
+    """A picture as a text; rows are those that are met through it, by their numbers."""
+    found = []
+    met = {}
+    # Rows may lie in one another as deep as there are boxes, so what is still to be told is kept in a list.
+    coming = [picture]
+    while coming:
+        part = coming.pop()
+        if isinstance(part, tuple):
+            coming.extend(list(reversed(_pieces(part, rows, met))))
+        else:
+            found.append(str(part))
+    return "".join(found)
 
 
-def _text(picture, rows, met):
-    """The text of a picture; met tells the numbers of the rows that were met in it so far."""
-    if not isinstance(picture, tuple):
-        return str(picture)
+def _pieces(picture, rows, met):
+    """The texts and pictures of which a box's text consists; met tells the numbers of the rows that were met so far."""
     word, told = picture
     if word != "row":
-        return word + ("(" + ", ".join([_text(part, rows, met) for part in told]) + ")" if told else "")
+        return [word, *_listed("(", told, ")")] if told else [word]
     if told in met:
-        return f"#{met[told]}"
+        return [f"#{met[told]}"]
     met[told] = len(met)
-    items = rows[told][1]
-    return f"#{met[told]}[" + ", ".join([_text(item, rows, met) for item in items]) + "]"
+    return [f"#{met[told]}", *_listed("[", rows[told][1], "]")]
+
+
+def _listed(first, parts, last):
+    found = [first]
+    for at, part in enumerate(parts):
+        found.extend([", ", part] if at > 0 else [part])
+    return [*found, last]

@@ -385,6 +385,18 @@ class PlacedCode(unittest.TestCase):
                                 self.assertTrue(fits(moment, moments[event - 1]))
         self.assertGreater(ends, 50)
 
+    def test_helpers_of_moves(self):
+        # Two slots are exchanged over the first two helpers.
+        code = numbers_code("f", {
+            0: (["v0"], [("v1", "plus", "v0", "v0")], ("jump", 1, ("v0", "v1"))), 1: (["v2", "v3"], [(None, "show", "v2")], ("jump", 1, ("v3", "v2"))),
+        })
+        for registers in (6, 7, 8, 9):
+            new, _ = placed(code, registers, {"v0": "r0", "v1": "r1", "v2": "s0", "v3": "s1"})
+            helpers = [f"r{registers - 3}", f"r{registers - 2}"]
+            rows = new[2][1][1][-4:]
+            self.assertEqual({row[0] for row in rows}, {*helpers, "s0", "s1"})
+            self.assertEqual({row[2] for row in rows}, {*helpers, "s0", "s1"})
+
     def test_many_parameters(self):
         # More places than the moves of one point take are moved at a jump.
         places = [f"v{at}" for at in range(1, 81)]

@@ -289,6 +289,13 @@ class Rules(unittest.TestCase):
                     told = [node.targets[0].id]
                 self.assertEqual(set(told) - used - promised, set() if name != "errors" else set(told) - used - promised, name)
 
+    def test_stars_of_calls_stand_before_names(self):
+        for name, tree in self.each():
+            for node in ast.walk(tree):
+                for part in node.args if isinstance(node, ast.Call) else []:
+                    if isinstance(part, ast.Starred):
+                        self.assertIsInstance(part.value, (ast.Name, ast.Attribute), (name, node.lineno))
+
     def test_methods_are_called_where_they_stand(self):
         methods, stored = set(), set()
         for _, tree in self.each():
