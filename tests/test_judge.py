@@ -85,6 +85,7 @@ class Papers(unittest.TestCase):
         self.assertFalse(self.is_paper({number: PAPER[number] for number in (0, 1, 2)}))
         self.assertFalse(self.is_paper({**PAPER, 4: PAPER[3]}))
         self.assertFalse(self.is_paper({0: PAPER[0], True: PAPER[1], 2: PAPER[2], 3: PAPER[3]}))
+        self.assertFalse(self.is_paper({0: PAPER[0], 1: PAPER[1], 2: PAPER[2], 4: PAPER[3]}))
         self.assertFalse(self.is_paper(list(PAPER.items())))
 
     def test_levels(self):
@@ -129,7 +130,7 @@ class Papers(unittest.TestCase):
             ((("v2", "plus", "v0", "v1"), ("v2", "plus", "v1", "v0")), False), ((("v2", "plus", "v2", "v1"),), False), ((right,), False),
             (((None, "show", "v0"),), False), ((("v5", "over", "v4", "v0"),), False), ([("v1", "const", 2)], False), ((["v1", "const", 2],), False),
             ((("v1", "const", True),), False), ((("v1", "make", "v", ()),), False), ((("v1", "copy", "v8"),), False), ((("v3", "copy", "v4"),), True),
-            (((None, "mark", ()),), False), ((("v3", "tag", "v4"),), False), ((("v3", "long", "r", "v4"),), False), (((),), False),
+            (((None, "mark", ()),), False), ((("v7", "const", 1),), False), ((("v3", "tag", "v4"),), False), ((("v3", "long", "r", "v4"),), False), (((),), False),
             ((("v1", "less", "v3", "v2"), ("v3", "const", 1)), False), ((("v3", "const", 1), ("v1", "less", "v3", "v2")), True),
         ):
             self.assertIs(self.is_paper(with_part(PAPER, 3, facts=facts), code), wanted, facts)
@@ -146,7 +147,7 @@ class Papers(unittest.TestCase):
             (("v52", "copy", "v51"), True), (("v52", "copy", "v50"), False), (("v0", "tag", "v52"), True), (("v0", "tag", "v50"), False),
             (("v1", "part", "w", 0, "v52"), True), (("v1", "part", "w", 1, "v52"), False), (("v52", "part", "w", 1, "v51"), True),
             (("v1", "part", "w", 2, "v52"), False), (("v1", "part", "q", 0, "v52"), False), (("v1", "long", "r", "v50"), True),
-            (("v1", "long", "c", "v50"), False), (("v1", "long", "r", "v52"), False), (("v52", "make", "w", ("v51", "v0")), False),
+            (("v1", "long", "c", "v50"), False), (("v1", "long", "c", "v51"), False), (("v1", "long", "r", "v52"), False), (("v52", "make", "w", ("v51", "v0")), False),
         ):
             told = with_part(paper, 60, facts=(row,))
             self.assertIs(self.is_paper(told, code, {"f": code}, SORTS_SCOPE), wanted, row)
@@ -499,6 +500,130 @@ class Judge(unittest.TestCase):
         self.check(with_rows(SORTS, 0, more[:-1] + [back]), None, None, codes, SORTS_SCOPE)
 
 
+class OldSides(unittest.TestCase):
+    """What the old side does on its own, case by case."""
+
+    def judge(self, old, new, paper, codes=None, scope=F):
+        codes = codes or {old[0]: old}
+        self.assertTrue(is_paper(scope, codes, new, paper))
+        return judge(scope, codes, new, paper)
+
+    def told(self, number, at, equations=(), facts=(), late=False, name="f"):
+        return ((name, number, at, {place: ("of", other, 1, 0) for place, other in dict(equations).items()}),), facts, late
+
+    def test_returns(self):
+        const = [("v1", "const", 3)]
+        old = numbers_code("f", {0: (["v0"], const, ("return", "v1"))})
+        for rows, wanted in ((const, None), ([("v1", "const", 4)], (0, 2, "terms")), ([("v1", "copy", "v0")], (0, 2, "terms"))):
+            self.assertEqual(self.judge(old, numbers_code("f", {0: (["v0"], rows, ("return", "v1"))}), {0: PAPER[0]}), wanted)
+        fails = numbers_code("f", {0: (["v0"], const, ("fail", "v1"))})
+        self.assertEqual(self.judge(old, fails, {0: PAPER[0]}), (0, 2, "stands"))
+        self.assertEqual(self.judge(fails, old, {0: PAPER[0]}), (0, 2, "stands"))
+        # A return of an inner level is none of the whole.
+        called = numbers_code("g", {0: (["v0"], [], ("return", "v0"))})
+        calling = numbers_code("f", {0: (["v0"], [("v1", "call", "g", ("v0",))], ("return", "v1"))})
+        new = numbers_code("f", {0: (["v0"], [context("mark", ("f", 0, {}), ("g", 0, {}))], ("return", "v0"))})
+        self.assertEqual(self.judge(calling, new, {0: PAPER[0]}, {"f": calling, "g": called}), (0, 2, "stands"))
+
+    def test_at_an_end_instead_of_a_row(self):
+        old = numbers_code("f", {0: (["v0"], [], ("return", "v0"))})
+        for row in ((None, "show", "v0"), context("mark", ("f", 1, {})), context("back", ("f", 1, {})), ("v1", "over", "v0", "v0"), ("v1", "call", "f", ("v0",))):
+            new = numbers_code("f", {0: (["v0"], [row], ("return", "v0"))})
+            self.assertEqual(self.judge(old, new, {0: PAPER[0]}), (0, 1, "stands"))
+
+    def test_undecided_branches_lead_nowhere(self):
+        old = numbers_code("f", {0: (["v0"], [], ("branch", "v0", 1, 2)), 1: ([], [], ("fail", "v0")), 2: ([], [], ("return", "v0"))})
+        for number in (1, 2):
+            new = ("f", "number", {0: (old[2][0][0], old[2][0][1], ("jump", number, ())), number: old[2][number]})
+            paper = {0: PAPER[0], number: self.told(number, 0, {"v0": "v0"})}
+            self.assertEqual(self.judge(old, new, paper), (0, 1, "stands"))
+
+    def test_idle_or_not(self):
+        pure = [("v1", "plus", "v0", "v0")]
+        old = numbers_code("f", {0: (["v0"], [], ("jump", 1, ())), 1: ([], [], ("return", "v0"), "still")})
+        ring = numbers_code("f", {0: (["v0"], [], ("jump", 1, ())), 1: ([], pure, ("jump", 1, ()), "still")})
+        self.assertEqual(self.judge(old, ring, {0: PAPER[0], 1: self.told(1, 1)}), (1, 2, "idle"))
+        # Going over a try is something.
+        tries = numbers_code("f", {
+            0: (["v0"], [], ("jump", 1, ())), 1: ([], [], ("try", "g", ("v0",), 2, 3), "still"), 2: (["v2"], [], ("return", "v2")), 3: (["v3"], [], ("return", "v3")),
+        })
+        paper = {0: PAPER[0], 1: self.told(1, 1, {"v0": "v0"}), 2: self.told(2, 0, {"v2": "v2"}), 3: self.told(3, 0, {"v3": "v3"})}
+        self.assertIsNone(self.judge(tries, tries, paper))
+        # A late block that goes on from where it came back to does something by its back.
+        back = context("back", ("f", 7, {}))
+        old = ("f", "number", {0: ((("v0", "number"),), (context("mark", ("f", 0, {})), back, context("still", ("f", 7, {}))), ("return", "v0"))})
+        new = ("f", "number", {
+            0: (old[2][0][0], old[2][0][1][:1], ("jump", 1, ())), 1: ((), (back,), ("jump", 2, ())), 2: ((), (context("still", ("f", 7, {})),), ("return", "v0")),
+        })
+        paper = {0: PAPER[0], 1: self.told(0, 2, {"v0": "v0"}, late=True), 2: self.told(0, 2, {"v0": "v0"})}
+        self.assertIsNone(self.judge(old, new, paper))
+        self.assertEqual(self.judge(old, new, with_part(paper, 1, late=False)), (0, 1, "stands"))
+
+    def test_what_is_not_known(self):
+        # A parameter gets what has no term: it has none then, whatever it had.
+        still = context("still", ("f", 1, {}))
+        old = ("f", "number", {
+            0: ((("v0", "number"),), (context("mark", ("f", 0, {})), ("v9", "const", 4)), ("jump", 1, ("v0",))),
+            1: ((("v4", "number"),), (still, ("v5", "plus", "v9", "v9")), ("jump", 1, ("v5",))),
+        })
+        new = ("f", "number", {0: (old[2][0][0], old[2][0][1][:1], ("jump", 1, ("v0",))), 1: ((("v4", "number"),), (still,), ("jump", 1, ("v4",)))})
+        self.assertEqual(self.judge(old, new, {0: PAPER[0], 1: self.told(1, 0, {"v4": "v4"})}), (1, 1, "equation"))
+        self.assertIsNone(self.judge(old, new, {0: PAPER[0], 1: self.told(1, 0)}))
+        # Frames that tell of it have no term either: only what is lost fits.
+        marks = [context("mark", ("f", 1, {"x": told})) for told in ("v4", ("number", ("lost",)), ("number", ("is", 4)))]
+        old = ("f", "number", {0: ((("v0", "number"),), (context("mark", ("f", 0, {})),), ("jump", 1, ("v0",))), 1: ((("v4", "number"),), marks[:1], ("fail", "v4"))})
+        old[2][1] = ((("v4", "number"),), (marks[0],), ("jump", 1, ("v4",)))
+        for mark, known, wanted in ((marks[0], True, None), (marks[0], False, (1, 0, "told")), (marks[1], False, None), (marks[2], False, (1, 0, "told")), (marks[2], True, (1, 0, "told"))):
+            new = ("f", "number", {**old[2], 1: ((("v4", "number"),), (mark,), ("jump", 1, ("v4",)))})
+            paper = {0: PAPER[0], 1: self.told(1, 0, {"v4": "v4"} if known else {})}
+            self.assertEqual(self.judge(old, new, paper), wanted)
+
+    def test_frames_ahead_of_an_anchor(self):
+        # What a level tells by a place that was given again since has no term.
+        old = ("f", "number", {0: ((("r0", "number"),), (context("mark", ("f", 0, {"x": "r0"})), ("r1", "copy", "r0"), ("r0", "const", 5)), ("return", "r0"))})
+        for place, wanted in (("r0", (1, 0, "told")), ("r1", (1, 0, "told"))):
+            still = context("still", ("f", 0, {"x": place}))
+            new = ("f", "number", {0: (old[2][0][0], old[2][0][1], ("jump", 1, ())), 1: ((), (still,), ("return", "r0"))})
+            self.assertEqual(self.judge(old, new, {0: self.told(0, 0, {"r0": "r0"}), 1: self.told(0, 3, {"r0": "r0", "r1": "r1"})}), wanted)
+        # By another place that was not, it has one.
+        old = ("f", "number", {0: (old[2][0][0], (old[2][0][1][1], context("mark", ("f", 0, {"x": "r1"})), ("r0", "const", 5)), ("return", "r0"))})
+        old = ("f", "number", {0: (old[2][0][0], (context("still", ("f", 3, {})), *old[2][0][1]), ("return", "r0"))})
+        for place, wanted in (("r0", (1, 0, "told")), ("r1", None)):
+            still = context("still", ("f", 0, {"x": place}))
+            new = ("f", "number", {0: (old[2][0][0], old[2][0][1], ("jump", 1, ())), 1: ((), (still,), ("return", "r0"))})
+            self.assertEqual(self.judge(old, new, {0: self.told(0, 0, {"r0": "r0"}), 1: self.told(0, 4, {"r0": "r0", "r1": "r1"})}), wanted)
+
+    def test_coming_back_over_quiet_rows(self):
+        inner = numbers_code("h", {0: (["v0"], [("v1", "plus", "v0", "v0")], ("return", "v1"), "still")})
+        called = numbers_code("g", {0: (["v0"], [("v1", "plus", "v0", "v0"), ("v2", "call", "h", ("v1",)), ("v3", "plus", "v2", "v0")], ("return", "v3"))})
+        calling = numbers_code("f", {0: (["v0"], [("v1", "call", "g", ("v0",)), (None, "show", "v1")], ("return", "v0"))})
+        codes = {"f": calling, "g": called, "h": inner}
+        new, paper = stepped(F, {"f": calling, "g": called}, "f", ("inline", 0, 1))
+        self.assertIsNone(self.judge(calling, new, paper, {"f": calling, "g": called}))
+        # Here h is gone into by the old side, while the new one has its worth by itself.
+        number = sorted(new[2])[1]
+        parameters, rows, end = new[2][number]
+        call = [at for at, row in enumerate(rows) if row[1] == "call"][0]
+        place, _, _, (argument,) = rows[call]
+        other = with_block(new, number, (parameters, (*rows[:call], (place, "plus", argument, argument), *rows[call + 1:]), end))
+        # At the end of h the old side must come back, which the new side's jump into the late block asks once.
+        self.assertEqual(self.judge(calling, other, paper, codes), (number, len(rows), "stands"))
+
+    def test_quiet_rows_ahead_of_a_branch_count_on_its_ways(self):
+        for many, wanted in ((498, None), (499, (0, 1, "stands"))):
+            rows = [(f"v{at + 1}", "copy", "v0") for at in range(1500)]
+            more = [(f"v{at + 2000}", "copy", "v0") for at in range(many)]
+            old = numbers_code("f", {
+                0: (["v0"], rows, ("branch", "v0", 1, 2)), 1: ([], more, ("return", "v0"), "still"), 2: ([], [], ("return", "v0"), "still"),
+            })
+            new = numbers_code("f", {
+                0: (["v0"], [], ("branch", "v0", 1, 2)), 1: ([], [], ("return", "v0"), "still"), 2: ([], [], ("return", "v0"), "still"),
+            })
+            # On the first way the branch, the still and the rows behind it are gone over, too.
+            paper = {0: PAPER[0], 1: self.told(1, many + 1, {"v0": "v0"}), 2: self.told(2, 0, {"v0": "v0"})}
+            self.assertEqual(self.judge(old, new, paper), wanted)
+
+
 class Parted(unittest.TestCase):
     def check_run(self, scope, codes, code, paper, numbers, wanted):
         """Whether both sides, begun with these numbers at the refused block, show or end otherwise."""
@@ -549,6 +674,43 @@ class Parted(unittest.TestCase):
         self.assertIsNotNone(told([show_of("v5"), times, show], [show_of("v5"), turned, show])[1])
         self.assertIsNone(told([("v8", "less", "v5", "v6"), show], [("v8", "less", "v6", "v5"), show])[1])
         self.assertIsNone(told([("v8", "call", "g", ("v5",)), show], [("v8", "call", "g", ("v5",)), show_of("v5")])[1])
+
+    def test_ends(self):
+        old = {word: numbers_code("f", {0: (["v0"], [("v1", "const", 2), ("v2", "times", "v0", "v1")], (word, "v2"))}) for word in ("return", "fail")}
+        for word in old:
+            new = numbers_code("f", {0: (["v0"], [("v1", "const", 2), ("v2", "times", "v0", "v0")], (word, "v2"))})
+            self.assertEqual(judge(F, {"f": old[word]}, new, {0: PAPER[0]}), (0, 3, "terms"))
+            number = parted(F, {"f": old[word]}, new, {0: PAPER[0]})["v0"]
+            self.assertNotEqual(2 * number, number * number)
+        tries = [numbers_code("f", {
+            0: (["v0"], [("v1", "const", at), ("v2", "times", "v0", "v1")], ("try", "g", ("v2",), 1, 2)), 1: (["v3"], [], ("return", "v3")), 2: (["v4"], [], ("return", "v4")),
+        }) for at in (3, 4)]
+        self.assertNotEqual(parted(F, {"f": tries[0]}, tries[1], beside(*tries, F))["v0"], 0)
+
+    def test_facts_hold(self):
+        """Numbers are told for all places of the facts, by which these hold."""
+        rows = [("v1", "const", 4), ("v2", "copy", "v0"), ("v3", "minus", "v1", "v0"), ("v4", "less", "v0", "v1"), ("v5", "not", "v4"), ("v6", "same", "v2", "v0"),
+                ("v7", "times", "v3", "v3")]
+        old = numbers_code("f", {0: (["v0"], rows, ("jump", 1, ("v0",))), 1: (["v8"], [], ("jump", 1, ("v8",)))})
+        for read, other in (("v8", "v3"), ("v7", "v8"), ("v8", "v1"), ("v2", "v3")):
+            one, two = [with_rows(old, 1, [*old[2][1][1], (None, "show", place)]) for place in (read, other)]
+            paper = with_part(beside(one, two, F), 1, facts=tuple(rows))
+            self.assertEqual(judge(F, {"f": one}, two, paper), (1, 1, "terms"))
+            told = parted(F, {"f": one}, two, paper)
+            self.assertEqual(list(told), [f"v{at}" for at in range(9)])
+            self.assertNotEqual(told[read], told[other])
+            self.assertEqual((told["v1"], told["v2"], told["v3"]), (4, told["v0"], 4 - told["v0"]))
+            self.assertEqual((told["v4"], told["v5"], told["v6"]), (int(told["v0"] < 4), int(told["v0"] >= 4), 1))
+            self.assertEqual(told["v7"], told["v3"] ** 2)
+
+    def test_facts_of_boxes(self):
+        start = ((("v0", "number"), ("v1", "number")), (context("mark", ("f", 0, {})), ("v2", "make", "v", ())), ("jump", 1, ()))
+        one, two = [("f", "number", {0: start, 1: ((), (context("mark", ("f", 1, {})), (None, "show", place)), ("return", "v0"))}) for place in ("v0", "v1")]
+        paper = beside(one, two, SORTS_SCOPE)
+        self.assertEqual(judge(SORTS_SCOPE, {"f": one}, two, paper), (1, 1, "terms"))
+        told = parted(SORTS_SCOPE, {"f": one}, two, paper)
+        self.assertEqual((list(told), told["v0"] != told["v1"]), (["v0", "v1"], True))
+        self.assertIsNone(parted(SORTS_SCOPE, {"f": one}, two, with_part(paper, 1, facts=(("v2", "make", "v", ()),))))
 
     def test_no_numbers(self):
         # Nothing is refused; something else than terms is; something was assumed; a way of a try.
