@@ -109,6 +109,8 @@ class ByHand(unittest.TestCase):
 
     def test_where_frames_stand(self):
         self.assertFalse(alike_states(CODES, CODES.run(START, 2), CODES.run(START, 3)))
+        # The row between makes what nobody wants.
+        self.assertFalse(alike_states(CODES, CODES.run(START, 4), CODES.run(START, 5)))
 
 
 class Runs(unittest.TestCase):

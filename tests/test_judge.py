@@ -413,12 +413,13 @@ class Judge(unittest.TestCase):
         also_less = [("v2", "const", 4), ("v1", "atmost", "v0", "v2")]
         nothing = [("v1", "not", "v0")]
         itself = [("v1", "copy", "v0")]
+        less_one = [("v2", "const", 1), ("v1", "minus", "v2", "v0")]
         twice = [("v3", "not", "v0"), ("v1", "not", "v3")]
         for old, new, wanted in (
             (plain(less), turned(not_less), None), (plain(less), plain(not_less), "stands"), (plain(less), turned(less), "stands"),
             (plain(less), plain(less), None), (plain(nothing), turned(twice), None), (plain(twice), turned(nothing), None),
             (plain(itself), plain(itself), None), (plain(itself), turned(nothing), "stands"), (plain(itself), plain(twice), "stands"),
-            (plain(less), plain(also_less), None),
+            (plain(less), plain(also_less), None), (plain(itself), turned(less_one), "stands"), (plain(itself), plain(less_one), "stands"),
         ):
             at = len(new[2][0][1])
             paper = {number: ((("f", number, 0, {"v0": ("of", "v0", 1, 0)}),), (), False) for number in new[2]}
@@ -609,15 +610,35 @@ class OldSides(unittest.TestCase):
         # At the end of h the old side must come back, which the new side's jump into the late block asks once.
         self.assertEqual(self.judge(calling, other, paper, codes), (number, len(rows), "stands"))
 
+    def test_coming_back_from_a_quiet_call(self):
+        called = numbers_code("h", {0: (["v0"], [], ("return", "v0"), "still")})
+        calling = numbers_code("f", {0: (["v0"], [("v1", "call", "h", ("v0",))], ("return", "v1"))})
+        back = context("back", ("f", 0, {}))
+        new = ("f", "number", {0: (calling[2][0][0], calling[2][0][1][:1], ("jump", 1, ())), 1: ((), (back,), ("return", "v0"))})
+        paper = {0: PAPER[0], 1: self.told(0, 2, {"v0": "v0", "v1": "v0"}, late=True)}
+        codes = {"f": calling, "h": called}
+        self.assertIsNone(self.judge(calling, new, paper, codes))
+        # Each back behind the first one is come to by the old side once more.
+        self.assertEqual(self.judge(calling, with_rows(new, 1, [back, back]), paper, codes), (1, 1, "stands"))
+        self.assertEqual(self.judge(calling, with_rows(new, 1, [back, back]), with_part(paper, 1, late=False), codes), (0, 1, "stands"))
+
+    def test_what_moved_ahead_of_a_branch(self):
+        old = ("f", "number", {0: ((("v0", "number"),), (context("mark", ("f", 0, {})),), ("jump", 1, ())), 1: ((), (context("still", ("f", 1, {})),), ("return", "v0"))})
+        blocks = {0: old[2][0], 1: ((), old[2][1][1], ("branch", "v0", 2, 3)), 2: ((), old[2][1][1], ("return", "v0")), 3: ((), old[2][1][1], ("return", "v0"))}
+        paper = {0: PAPER[0], 1: self.told(1, 0, {"v0": "v0"}), 2: self.told(1, 1, {"v0": "v0"}), 3: self.told(1, 1, {"v0": "v0"})}
+        self.assertIsNone(self.judge(old, ("f", "number", blocks), paper))
+        self.assertEqual(self.judge(old, ("f", "number", blocks), {**paper, 1: paper[2]}), (1, 1, "idle"))
+
     def test_quiet_rows_ahead_of_a_branch_count_on_its_ways(self):
-        for many, wanted in ((498, None), (499, (0, 1, "stands"))):
-            rows = [(f"v{at + 1}", "copy", "v0") for at in range(1500)]
+        for many, wanted in ((498, None), (499, (0, 2, "stands"))):
+            mark = context("mark", ("f", 5, {}))
+            rows = [(f"v{at + 1}", "copy", "v0") for at in range(1500)] + [mark]
             more = [(f"v{at + 2000}", "copy", "v0") for at in range(many)]
             old = numbers_code("f", {
                 0: (["v0"], rows, ("branch", "v0", 1, 2)), 1: ([], more, ("return", "v0"), "still"), 2: ([], [], ("return", "v0"), "still"),
             })
             new = numbers_code("f", {
-                0: (["v0"], [], ("branch", "v0", 1, 2)), 1: ([], [], ("return", "v0"), "still"), 2: ([], [], ("return", "v0"), "still"),
+                0: (["v0"], [mark], ("branch", "v0", 1, 2)), 1: ([], [], ("return", "v0"), "still"), 2: ([], [], ("return", "v0"), "still"),
             })
             # On the first way the branch, the still and the rows behind it are gone over, too.
             paper = {0: PAPER[0], 1: self.told(1, many + 1, {"v0": "v0"}), 2: self.told(2, 0, {"v0": "v0"})}

@@ -164,6 +164,14 @@ class Told(unittest.TestCase):
         self.assertEqual(told(9, more)["d"], ("of", "v6", 1, 0))
         self.assertEqual(told(11, more)["d"], lost)
 
+    def test_nothing(self):
+        rows = [("v2", "make", "v", ()), ("v3", "part", "w", 1, "v2"), context("still", ("f", 1, {"a": ("c", "v3"), "b": ("c", ("make", "w", (("is", 1), ("of", "v3", 1, 0))))}))]
+        for more, wanted in (([], ("lost",)), ([("v4", "tag", "v3")], ("of", "v3", 1, 0))):
+            code = ("f", "number", {0: ((("v0", "number"), ("v1", "number")), (context("mark", ("f", 0, {})), *rows, *more), ("return", "v0"))})
+            told = {name: formula for name, _, formula in told_at(code, SCOPE, (0, 4), False)[0][2]}
+            self.assertEqual(told["a"], wanted)
+            self.assertEqual(told["b"], ("lost",) if more == [] else ("make", "w", (("is", 1), ("of", "v3", 1, 0))))
+
     def test_at_context_rows(self):
         still = [context("still", ("f", at, {"a": "v0"})) for at in range(4)]
         code = numbers_code("f", {0: (["v0", "v1"], [still[1], ("v2", "const", 1), still[2]], ("return", "v0"))})
