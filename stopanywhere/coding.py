@@ -17,7 +17,6 @@ WORDS = (
     "long", "new", "at", "put", "show", "call", "jump", "branch", "unless", "try", "return", "fail",
 )
 MOST_PARTS = 3
-MOST_SLOT = 999
 LETTERS = "abcdefghijklmnopqrstuvwxyz"
 LEAPS = {"short": 8, "long": 32}
 
@@ -178,7 +177,7 @@ def _copied_at(bits, at):
     if bits[at:at + 1] != "1":
         return _register_at(bits, at + 1)
     told = count_at(bits, at + 1)
-    return None if told is None or told[0] > MOST_SLOT else (f"s{told[0]}", told[1])
+    return None if told is None else (f"s{told[0]}", told[1])
 
 
 def _name_at(bits, at):

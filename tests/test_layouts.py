@@ -129,11 +129,13 @@ class Layouts(unittest.TestCase):
 
     def test_bounds(self):
         # One leap ahead over a drawn number of bits, one leap back.
-        for many, more in itertools.product(range(5, 8), range(0, 19)):
-            # So many bits lie between: fillers, and a const of a longer number.
+        met = set()
+        for many, more, shows in itertools.product(range(5, 7), range(0, 12), range(2)):
+            # So many bits lie between: fillers, a const of a longer number, and perhaps a show of nine bits.
             number = 2 ** more
-            rows = filler(many) + [("r2", "const", number)]
-            bits = many * FILL_BITS + 9 + 2 * (more + 1) + 1
+            rows = filler(many) + [("r2", "const", number)] + [(None, "show", "r2")] * shows
+            bits = many * FILL_BITS + 9 + 2 * (more + 1) + 1 + 9 * shows
+            met |= {bits + 5, -bits - 14}
             ahead = bundle_of({0: ([], ("branch", "r0", 2, 1)), 1: (rows, ("return", "r0")), 2: ([], ("return", "r0"))})
             orders = {"f": (0, 1, 2)}
             far = distance(ahead, orders, (), ("f", 0, 0))
@@ -144,7 +146,7 @@ class Layouts(unittest.TestCase):
             far = distance(back, {"f": (0, 1)}, (), ("f", 1, 0))
             self.assertEqual(far, -bits - 14)
             self.assertEqual(least_layout(back, {"f": (0, 1)}), () if far >= -128 else (("f", 1, 0),))
-        self.assertTrue(any(many * FILL_BITS + 12 + 2 * more + 5 in (127, 128) for many in range(5, 8) for more in range(19)))
+        self.assertLessEqual({127, 128, -128, -129}, met)
 
     def test_random(self):
         rng = random.Random(6)

@@ -323,6 +323,16 @@ class LastOther(unittest.TestCase):
             self.assertIsNone(session.last_other(0, "n"))
             self.assertEqual(session.at(), found)
 
+    def test_lost_between(self):
+        session = Session(PLACED, "f", [2])
+        session.to_events(20)
+        self.assertEqual(session.told()[0][2]["a"], ("lost",))
+        self.assertRaises(NotTold, session.last_other, 0, "a")
+        session.to_events(22)
+        self.assertEqual(session.told()[0][2]["a"], ("is", 2))
+        self.assertIsNotNone(session.last_other(0, "a"))
+        self.assertEqual((session.told()[0][:2], session.told()[0][2]["a"]), (("f", 6), ("is", 0)))
+
     def test_a_frame_that_is_entered_anew(self):
         for codes in BOTH:
             session = Session(codes, "f", [1])
