@@ -59,3 +59,62 @@ def as_bool(thing):
 def as_number(thing):
     """A number in the place of a bool."""
     return [int(thing)] if isinstance(thing, bool) else []
+
+
+def paths_in(thing, ahead=()):
+    """The ways to all that stands in a value: itself, items, and values of keys."""
+    yield ahead
+    if isinstance(thing, (list, tuple)):
+        for at, part in enumerate(thing):
+            yield from paths_in(part, ahead + (at,))
+    elif isinstance(thing, dict):
+        for key in thing:
+            yield from paths_in(thing[key], ahead + (key,))
+
+
+def at_path(thing, path):
+    for step in path:
+        thing = thing[step]
+    return thing
+
+
+def with_at(thing, path, part):
+    """A value with another part at the end of a way."""
+    if not path:
+        return part
+    first, *rest = path
+    if isinstance(thing, dict):
+        return {key: with_at(thing[key], rest, part) if key == first else thing[key] for key in thing}
+    return type(thing)(with_at(inner, rest, part) if at == first else inner for at, inner in enumerate(thing))
+
+
+def others_like(thing):
+    """Values that differ a little."""
+    if isinstance(thing, tuple) and thing:
+        return [thing[:-1], thing + thing[-1:], thing[::-1], list(thing)]
+    if isinstance(thing, dict) and thing:
+        first = next(iter(thing))
+        return [{key: thing[key] for key in thing if key != first}, {**thing, "zz": 0}, {**thing, 77: thing[first]}, {**thing, True: thing[first]}]
+    if isinstance(thing, str):
+        return [thing + "a", "v3", "r1", "s2", "zz", thing[:-1]]
+    return [thing + 1, -thing - 1, bool(thing)] if is_plain_number(thing) else []
+
+
+def bent(rng, thing, many):
+    """So many values with one thing otherwise, or perhaps the same, at any place."""
+    odd = odd_values()
+    paths = list(paths_in(thing))
+    for _ in range(many):
+        path = rng.choice(paths)
+        yield with_at(thing, path, rng.choice(others_like(at_path(thing, path)) + [rng.choice(odd)]))
+
+
+def has_odd_bools(thing):
+    """Whether True or False stands in a value, but for a tree's truths."""
+    if isinstance(thing, tuple) and thing[:1] == ("truth",):
+        return False
+    if isinstance(thing, (list, tuple)):
+        return any(has_odd_bools(part) for part in thing)
+    if isinstance(thing, dict):
+        return any(has_odd_bools(key) or has_odd_bools(thing[key]) for key in thing)
+    return isinstance(thing, bool)

@@ -7,6 +7,10 @@ from code_tools import sound_programs, starts_of
 from odd_values import odd_values
 from stopanywhere.desk import Desk
 from stopanywhere.errors import BadArguments, BadCount, BadText, BadTexts, Faulty, KindClash, NoFunction, NoUnit, TwoNames
+from stopanywhere.lowering import named_codes, scope_of
+from stopanywhere.making import codes_at
+from stopanywhere.passes import lean
+from stopanywhere.placing import placed_code
 from stopanywhere.plain import Plain, Program
 from stopanywhere.texts import places_of, read_unit, unit_text
 
@@ -204,6 +208,37 @@ class WhatIsSaid(unittest.TestCase):
 
 
 class Making(unittest.TestCase):
+    def test_levels(self):
+        program = Program([read_unit(text) for text in TEXTS])
+        named, better = {}, {}
+        for unit in program.units:
+            faces = {name: program.faces[name] for name in unit[2]}
+            told = named_codes(unit, faces)
+            named.update(told)
+            better.update(lean(scope_of(unit, faces), told)[0])
+        self.assertNotEqual(named, better)
+        self.assertEqual(codes_at(program, "named", 6).codes, named)
+        self.assertEqual(codes_at(program, "lean", 6).codes, better)
+        for registers in (6, 9):
+            placed = {name: placed_code(better[name], registers)[0] for name in better}
+            self.assertEqual(codes_at(program, "placed", registers).codes, placed)
+            self.assertEqual(codes_at(program, "image", registers).codes, placed)
+
+    def test_what_levels_and_collections_change(self):
+        told = desk()
+        self.assertEqual(told.session().state()[0][0][:3], ("f", 0, 0))
+        self.assertEqual({place[0] for place in told.session().state()[0][0][3]}, {"r"})
+        told.say("level named")
+        self.assertEqual({place[0] for place in told.session().state()[0][0][3]}, {"v"})
+        told.say("until one 13")
+        self.assertGreater(len(told.session().state()[1]), len(told.session().reached()))
+        told.say("collect")
+        self.assertEqual(sorted(told.session().state()[1]), sorted(told.session().reached()))
+
+    def test_six_texts(self):
+        texts = [f"unit u{letter} function f{letter}() {{ return 1 }}" for letter in "abcdef"]
+        self.assertEqual(Desk(texts, "fd", [], 6).say("next"), "ended")
+
     def test_errors(self):
         for thing in odd_values() + [[], [ONE] * 7, {0: ONE}, ONE]:
             if not isinstance(thing, (list, tuple)) or not 1 <= len(thing) <= 6:

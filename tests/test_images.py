@@ -5,7 +5,7 @@ import unittest
 
 from bundles import bundle_of, code_bundle, drawn_orders, filler, program_bundles
 from code_tools import context
-from odd_values import as_bool, as_list, as_number, changed, odd_values
+from odd_values import as_bool, as_list, as_number, bent, changed, has_odd_bools, odd_values
 from stopanywhere.bits import bits_of, read_bits
 from stopanywhere.errors import BadAddress, BadBundle, BadImage, BadLayout, BadOrders, BadSpot
 from stopanywhere.images import address_of, image, image_of, is_image, read_image, spot_at, spot_behind
@@ -154,6 +154,15 @@ class BentImages(unittest.TestCase):
                 others = list(changed(told, turn))
                 for other in rng.sample(others, min(len(others), 25)):
                     self.check(other)
+
+    def test_anything_else_at_any_place(self):
+        rng = random.Random(11)
+        let = 0
+        for other in bent(rng, image(HAND), 700):
+            if self.check(other):
+                let += 1
+                self.assertFalse(has_odd_bools(other))
+        self.assertGreater(let, 20)
 
     def test_turned_bits(self):
         rng = random.Random(6)

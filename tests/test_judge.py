@@ -4,7 +4,7 @@ import random
 import unittest
 
 from code_tools import context, kinds_and_codes, numbers_code, sound_programs, starts_of
-from odd_values import as_bool, as_list, as_number, changed, odd_values
+from odd_values import as_bool, as_list, as_number, bent, changed, has_odd_bools, odd_values
 from random_codes import random_code
 from stopanywhere.errors import BadChanges, BadCode, BadCodes, BadPaper, BadScope
 from stopanywhere.forms import Scope, is_named, scope_of_codes
@@ -213,6 +213,21 @@ class Papers(unittest.TestCase):
     def test_any_value(self):
         for thing in odd_values():
             self.assertIs(self.is_paper(thing), False)
+
+    def test_anything_else_at_any_place(self):
+        rng = random.Random(12)
+        let = 0
+        for new, paper in (stepped(F, {"f": OLD}, "f", steps_of(F, {"f": OLD}, "f", "hoist")[0]), placed_code(OLD, 6)):
+            for other in bent(rng, paper, 400):
+                if self.is_paper(other, new):
+                    let += 1
+                    judge(F, {"f": OLD}, new, other)
+                    parted(F, {"f": OLD}, new, other)
+                    self.assertFalse(has_odd_bools([(told[0], told[1]) for told in other.values()]))
+                    self.assertFalse(has_odd_bools(list(other)))
+                else:
+                    self.assertRaises(BadPaper, judge, F, {"f": OLD}, new, other)
+        self.assertGreater(let, 40)
 
 
 class Judge(unittest.TestCase):

@@ -5,7 +5,7 @@ import random
 import unittest
 
 from code_tools import sound_programs, starts_of
-from odd_values import as_bool, as_list, as_number, changed, odd_values
+from odd_values import as_bool, as_list, as_number, bent, changed, has_odd_bools, odd_values
 from stopanywhere.again import build, stale
 from stopanywhere.errors import (
     BadBundle, BadFaces, BadObject, BadObjects, BadOrder, BadRegisters, BadUnit, BadUnits, Faulty, KindClash, Missing, NoFunction, NoUnit, OtherFace,
@@ -13,6 +13,7 @@ from stopanywhere.errors import (
 )
 from stopanywhere.faces import all_faces, face_of
 from stopanywhere.forms import is_placed
+from stopanywhere.images import image, read_image
 from stopanywhere.lowering import named_codes, scope_of
 from stopanywhere.objects import calls_of, is_bundle, is_object, kept, linked, object_of
 from stopanywhere.plain import Program, told_run
@@ -92,6 +93,33 @@ class Objects(unittest.TestCase):
             self.assertIs(is_object(thing), False)
         faulty = with_item(told, 1, with_item(B, 4, (with_item(B[4][0], 3, (("return", ("name", "zz")),)), B[4][1])))
         self.assertIs(is_object(faulty), False)
+
+    def test_bent_at_any_place(self):
+        rng = random.Random(9)
+        told = OBJECTS["b"]
+        let = 0
+        for other in bent(rng, told, 250):
+            found = is_object(other)
+            self.assertIsInstance(found, bool)
+            if found:
+                self.assertEqual(object_of(other[1], dict(other[3]), other[2]), other)
+                self.assertFalse(has_odd_bools(other))
+            if found or self.is_linked(other):
+                let += 1
+                continue
+            with self.assertRaises(BadObjects):
+                stale(UNITS, {"b": other}, 6)
+        self.assertGreater(let, 5)
+
+    def is_linked(self, other):
+        """Whether it is taken for an object by its form."""
+        try:
+            linked([OBJECTS["a"], other, OBJECTS["d"]], 0)
+        except BadObject as error:
+            self.assertEqual(error.at, 1)
+            return False
+        except (BadOrder, TwoUnits):
+            return True
 
     def test_wrong(self):
         for thing in odd_values():
@@ -206,6 +234,19 @@ class Bundles(unittest.TestCase):
         self.assertIs(is_bundle((word, registers, (*codes, stranger), kinds)), False)
         for thing in odd_values():
             self.assertIs(is_bundle(thing), False)
+
+    def test_bent_at_any_place(self):
+        rng = random.Random(10)
+        let = 0
+        for other in bent(rng, BUNDLE, 300):
+            if is_bundle(other):
+                let += 1
+                self.assertFalse(has_odd_bools(other))
+                Codes(list(other[3]), list(other[2]))
+                self.assertEqual(read_image(image(other))[0], other)
+            else:
+                self.assertRaises(BadBundle, calls_of, other)
+        self.assertGreater(let, 15)
 
     def test_calls_of(self):
         told = calls_of(BUNDLE)
