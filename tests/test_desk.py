@@ -230,7 +230,7 @@ class Making(unittest.TestCase):
         self.assertEqual({place[0] for place in told.session().state()[0][0][3]}, {"r"})
         told.say("level named")
         self.assertEqual({place[0] for place in told.session().state()[0][0][3]}, {"v"})
-        told.say("until one 13")
+        told.say("until one 18")
         self.assertGreater(len(told.session().state()[1]), len(told.session().reached()))
         told.say("collect")
         self.assertEqual(sorted(told.session().state()[1]), sorted(told.session().reached()))
