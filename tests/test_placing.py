@@ -90,7 +90,7 @@ def bent_placings(rng, code, registers, told):
         other = dict(told)
         for _ in range(rng.randint(1, 3)):
             place = rng.choice(list(other))
-            pool = list(set(told.values())) + ["s7", "s30", "r0", "r1", "r2"]
+            pool = sorted(set(told.values())) + ["s7", "s30", "r0", "r1", "r2"]
             other[place] = rng.choice(pool)
         yield other
     registers_told = [f"r{at}" for at in range(registers - 3)]
@@ -351,7 +351,11 @@ class PlacedCode(unittest.TestCase):
             self.assertEqual(placed_code(code, registers), placed(code, registers, told))
 
     def check_runs(self, code, new, arguments):
-        """Whether both codes do the same, event by event, as far as both are led."""
+        """Whether both codes do the same, event by event, as far as both are led.
+
+        Stills of random codes tell of anything, and are come to by unlike many rows: these are left out.
+        """
+        code, new = [(told[0], told[1], {number: without_stills(block) for number, block in told[2].items()}) for told in (code, new)]
         outputs, end, moments = led(Codes([], [code]), "f", arguments, 150)
         other_outputs, other_end, other_moments = led(Codes([], [new]), "f", arguments, 600)
         self.assertEqual(other_outputs[:len(outputs)], outputs)
@@ -408,6 +412,11 @@ class PlacedCode(unittest.TestCase):
         new, paper = placed_code(code, 6)
         self.assertTrue(is_placed(new, scope, 6))
         self.assertIsNone(judge(scope, {"f": code}, new, paper))
+
+
+def without_stills(block):
+    parameters, rows, end = block
+    return parameters, tuple(row for row in rows if row[1] != "still"), end
 
 
 def places_of(formula):
