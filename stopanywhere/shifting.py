@@ -18,10 +18,13 @@ def moved_at_once(pairs, helpers):
 
 def _move_tree(transfer, place, helper, rows):
     """Moves what a place, which is in no ring, holds into its targets, when these have been moved on themselves."""
-    targets = transfer.targets.get(place, [])
-    for target in targets:
-        _move_tree(transfer, target, helper, rows)
-    _copy_out(place, targets, helper, rows)
+    order = [place]
+    at = 0
+    while at < len(order):
+        order.extend(transfer.targets.get(order[at], []))
+        at += 1
+    for other in list(reversed(order)):
+        _copy_out(other, transfer.targets.get(other, []), helper, rows)
 
 
 def _copy_out(place, targets, helper, rows):
