@@ -2,6 +2,7 @@
 
 from stopanywhere.errors import BadCount, BadTexts, NotTold
 from stopanywhere.making import codes_at
+from stopanywhere.moments import narrowed_to
 from stopanywhere.pacing import Pace
 from stopanywhere.plain import Program
 from stopanywhere.sessions import Session
@@ -175,7 +176,9 @@ def _worth(desk, name):
         return "error BadName"
     if worths[name] == ("lost",):
         return "lost"
-    return text_of_worth(worths[name][1], desk.session().moment()[1])
+    moment = desk.session().moment()
+    frames, rows, _ = narrowed_to(moment, [[] for _ in moment[0][1:]] + [[name]])
+    return text_of_worth(frames[-1][2][0][1], rows)
 
 
 def _shown(desk):

@@ -39,7 +39,7 @@ def joined(words):
 
 
 def text_of_worth(picture, rows):
-    """A picture as a text; rows are those that are met through it, by their numbers."""
+    """A picture as a text; rows are those that are met through it alone, by their numbers."""
     found = []
     met = {}
     # Rows may lie in one another as deep as there are boxes, so what is still to be told is kept in a list.
@@ -54,14 +54,14 @@ def text_of_worth(picture, rows):
 
 
 def _pieces(picture, rows, met):
-    """The texts and pictures of which a box's text consists; met tells the numbers of the rows that were met so far."""
+    """The texts and pictures of which a box's text consists; met tells which rows were told so far."""
     word, told = picture
     if word != "row":
         return [word, *_listed("(", told, ")")] if told else [word]
     if told in met:
-        return [f"#{met[told]}"]
-    met[told] = len(met)
-    return [f"#{met[told]}", *_listed("[", rows[told][1], "]")]
+        return [f"#{told}"]
+    met[told] = True
+    return [f"#{told}", *_listed("[", rows[told][1], "]")]
 
 
 def _listed(first, parts, last):

@@ -96,6 +96,13 @@ class Deeds(unittest.TestCase):
         self.assertIn(told.say("worth a"), ("#0[o(#0), p(#1[o(#0)], #1)]", "lost"))
         self.says(told, "next", "point 6 event 8", "worth d", "p(#0[o(#1[o(#1), p(#0, #0)])], #1)")
 
+    def test_rows_are_numbered_by_their_meeting(self):
+        # First those of the worth itself from left to right, then those of row 0, row 1 and so on.
+        told = Desk(["unit u row r of q choice q = e | o(r) | p(r, r) function f() { let c = new r(1, make e) let b = new r(1, make o(c)) let a = new r(2, make o(new r(0, make e))) "
+                     "let d = make p(b, a) match d { p(g, h) { show long r(g) } o(i) { } e { } } return 1 }"], "f", [], 6)
+        self.says(told, "next", "point 2 event 2", "next", "point 3 event 3", "next", "point 4 event 4", "next", "point 5 event 5", "level named", "point 5 event 5",
+                  "worth d", "p(#0[o(#2[e])], #1[o(#3[]), o(#3)])")
+
     def test_change(self):
         told = desk()
         self.says(told, "until one 16", "point 14 event 18")
