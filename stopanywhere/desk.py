@@ -31,7 +31,7 @@ class Desk:
         self._pace = pace
         # By units their statements' places, by functions their units.
         self._places = {unit[1]: places_of(text) for unit, text in zip(units, texts)}
-        self._homes = {function[1]: unit[1] for unit in units for function in unit[4]}
+        self._homes = {tree[1]: unit[1] for unit in units for tree in unit[4]}
         self._codes = {}
         self._session = self._begun("placed")
 

@@ -94,6 +94,39 @@ class Objects(unittest.TestCase):
         faulty = with_item(told, 1, with_item(B, 4, (with_item(B[4][0], 3, (("return", ("name", "zz")),)), B[4][1])))
         self.assertIs(is_object(faulty), False)
 
+    def test_by_the_form_alone(self):
+        told = OBJECTS["b"]
+        (first, first_placed), (second, second_placed) = told[5]
+        parameters, rows, end = first_placed[2][0]
+
+        def with_register(place):
+            blocks = {**first_placed[2], 0: (parameters, (rows[0], (place, "const", 1), *rows[1:]), end)}
+            return (first, (*first_placed[:2], blocks)), told[5][1]
+
+        extra = ("face", "z", (), ())
+        for at, part, wanted in (
+            (0, "objects", False), (1, A, False), (1, D, False), (2, 5, False), (2, 10, False), (2, True, False), (2, 9, True), (3, (), False),
+            (3, (("a", FACES["b"]),), False), (3, (("z", FACES["a"]),), False), (3, (("a", FACES["a"]), ("z", extra)), False), (3, [("a", FACES["a"])], False),
+            (3, (["a", FACES["a"]],), False), (3, (("a", FACES["a"]), ("a", FACES["a"])), False), (3, (("a", with_item(FACES["a"], 2, ())),), False),
+            (4, FACES["a"], False), (4, with_item(FACES["b"], 2, A[3]), False), (4, with_item(FACES["b"], 3, ()), False), (4, list(FACES["b"]), False),
+            (4, with_item(FACES["b"], 3, FACES["b"][3][::-1]), False),
+            (5, (), False), (5, told[5][:1], False), (5, told[5][::-1], False), (5, list(told[5]), False), (5, (*told[5], told[5][0]), False),
+            (5, ((first, first_placed), [second, second_placed]), False), (5, ((first_placed, first_placed), told[5][1]), False),
+            (5, ((first, first), told[5][1]), False), (5, ((first, second_placed), told[5][1]), False), (5, ((second, first_placed), told[5][1]), False),
+            (5, with_register("r6"), False), (5, with_register("r5"), True), (5, ((first,), told[5][1]), False), (5, ((first, None), told[5][1]), False), (5, ((7, first_placed), told[5][1]), False),
+        ):
+            other = with_item(told, at, part)
+            self.assertIs(is_object(other) and not wanted, False, (at, part))
+            if wanted:
+                self.assertRaises(BadOrder, linked, [other], 0)
+                continue
+            with self.assertRaises(BadObject) as caught:
+                linked([OBJECTS["a"], other], ["a", "b"])
+            self.assertEqual(caught.exception.at, 1, (at, part))
+            with self.assertRaises(BadObjects) as caught:
+                stale(UNITS, {"b": other}, 6)
+            self.assertEqual(caught.exception.name, "b")
+
     def test_bent_at_any_place(self):
         rng = random.Random(9)
         told = OBJECTS["b"]
