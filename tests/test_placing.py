@@ -174,7 +174,7 @@ class Found(unittest.TestCase):
             for (number, at), ways in contents_at(code, places, place).items():
                 is_found = all(is_there for is_there, _ in ways)
                 self.assertIs(place in told[number][at], is_found)
-                if rng.random() > 0.05:
+                if rng.random() > 0.02:
                     continue
                 way = lost_way(code, registers, places, (number, at), place)
                 if is_found:
@@ -209,12 +209,12 @@ class Found(unittest.TestCase):
 
     def test_random_codes(self):
         lost = 0
-        for rng, code, _, _ in random_codes_with_scopes(5, 10):
+        for rng, code, _, _ in random_codes_with_scopes(5, 6):
             registers = rng.randint(6, 9)
             for places in [placing(code, registers), *bent_placings(rng, code, registers, placing(code, registers))]:
                 if is_placing(code, registers, places):
                     lost += self.check(rng, code, registers, places)
-        self.assertGreater(lost, 150)
+        self.assertGreater(lost, 40)
 
     def test_all_sorts(self):
         self.assertTrue(is_named(SORTS, SCOPE))
