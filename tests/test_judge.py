@@ -770,7 +770,7 @@ class Parted(unittest.TestCase):
         """Codes with one thing otherwise: what is let runs alike, and what is parted differs."""
         rng = random.Random(11)
         refused, let, parts = 0, 0, 0
-        while refused + let < 200:
+        while refused + let < 150:
             old, taken = random_code(rng)
             scope = Scope([], {"f": (("number",) * taken, "number")})
             for _ in range(12):
@@ -790,8 +790,8 @@ class Parted(unittest.TestCase):
                     if wanted[2] == "terms" and old[2][wanted[0]][2][0] != "try":
                         parts += 1
                         self.check_run(scope, {"f": old}, code, paper, numbers, wanted)
-        self.assertGreater(let, 15)
-        self.assertGreater(parts, 4)
+        self.assertGreater(let, 10)
+        self.assertGreater(parts, 2)
 
     def check_alike(self, old, code, taken, rng):
         runners = [Codes([], [told]) for told in (old, code)]

@@ -45,7 +45,7 @@ class Rewritten(Case):
     def test_random_steps(self):
         rng = random.Random(101)
         seen, asked = {}, 0
-        for program in sound_programs(rng, 20):
+        for program in sound_programs(rng, 14):
             kinds, codes = kinds_and_codes(program)
             scope = scope_of_codes(kinds, list(codes.values()))
             first, rows, told = codes, [], []
@@ -67,7 +67,7 @@ class Rewritten(Case):
             self.assertEqual(rewritten(scope, first, rows), (codes, told))
             for function, arguments in starts_of(program, rng):
                 self.same_runs(kinds, codes, program, function, arguments)
-        self.assertGreater(min(seen[word] for word in ("fold", "same", "spare", "dead", "hoist", "inline")), 5)
+        self.assertGreater(min(seen[word] for word in ("fold", "same", "spare", "dead", "hoist", "inline")), 2)
         self.assertGreater(asked, 1000)
 
     def test_codes_with_joins(self):
@@ -238,7 +238,7 @@ class Lean(Case):
     def test_programs(self):
         rng = random.Random(106)
         many = 0
-        for program in sound_programs(rng, 14):
+        for program in sound_programs(rng, 8):
             kinds, codes = kinds_and_codes(program)
             scope = scope_of_codes(kinds, list(codes.values()))
             found, changes = lean(scope, codes)
@@ -251,7 +251,7 @@ class Lean(Case):
                     self.assertEqual(steps_of(scope, found, name, word), [])
             for function, arguments in starts_of(program, rng):
                 self.same_runs(kinds, found, program, function, arguments)
-        self.assertGreater(many, 200)
+        self.assertGreater(many, 100)
 
     def test_each_function_by_the_codes_as_they_are(self):
         rng = random.Random(107)
