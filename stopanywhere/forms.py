@@ -113,10 +113,15 @@ def scope_of_codes(kinds, codes):
         return None
     if first_again([name for name, _, _ in codes]) is not None:
         return None
+    return scope_of_startable(scope.kinds, codes)
+
+
+def scope_of_startable(kinds, codes):
+    """The scope of kinds and of codes of different functions, all startable by their form."""
     functions = {}
     for name, result, blocks in codes:
         functions[name] = (tuple([kind for _, kind in blocks[0][0]]), result)
-    return Scope(scope.kinds, functions)
+    return Scope(kinds, functions)
 
 
 def is_startable(thing):
@@ -143,15 +148,18 @@ def is_placed(thing, scope, registers):
         raise BadScope("no scope")
     if not is_number_between(registers, 6, 9):
         raise BadRegisters("no number from 6 to 9")
-    if not is_startable(thing):
-        return False
-    _, _, blocks = thing
+    return is_startable(thing) and keeps_placed_rules(thing, scope, registers)
+
+
+def keeps_placed_rules(code, scope, registers):
+    """Whether what is startable by its form is placed code in a scope for so many registers."""
+    _, _, blocks = code
     for block in list(blocks.values()):
         if not all([_is_placed_for(place, registers) for place in given_in(block)]):
             return False
         if not _stands_in_registers(block):
             return False
-    return _is_right(thing, scope) and _has_placed_parameters(blocks)
+    return _is_right(code, scope) and _has_placed_parameters(blocks)
 
 
 def _is_placed_for(place, registers):

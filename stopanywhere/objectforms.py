@@ -1,9 +1,9 @@
 """Objects and bundles by their form."""
 
 from stopanywhere.blocks import copy_of
-from stopanywhere.errors import BadFunctions, BadKinds
+from stopanywhere.errors import BadKinds
 from stopanywhere.faceforms import are_faces_of, has_face_form
-from stopanywhere.forms import Scope, is_named, is_placed, is_startable, scope_of_codes
+from stopanywhere.forms import Scope, is_named, is_placed, is_startable, keeps_placed_rules, scope_of_startable
 from stopanywhere.parts import declared_names, kinds_within
 from stopanywhere.shapes import is_code
 from stopanywhere.trees import is_declaration, is_unit
@@ -81,15 +81,8 @@ def has_bundle_form(thing):
     known = ["number"] + [kind[1] for kind in kinds]
     if not all([_has_known_kinds(code, known) for code in codes]):
         return False
-    scope = _scope_of_bundle(kinds, codes)
-    return scope is not None and all([is_placed(code, scope, registers) for code in codes])
-
-
-def _scope_of_bundle(kinds, codes):
-    try:
-        return scope_of_codes(kinds, codes)
-    except BadFunctions:
-        return None
+    scope = scope_of_startable(kinds, codes)
+    return all([keeps_placed_rules(code, scope, registers) for code in codes])
 
 
 def _are_whole_kinds(kinds):
