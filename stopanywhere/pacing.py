@@ -17,7 +17,7 @@ class Pace:
     def _go_on(self):
         """Goes on to the next point, or to the end."""
         if self._plain.go():
-            function, number, _ = self._plain.moment()[0][-1]
+            function, number = self._plain.passed_point()
             self._points.append((self._plain.events(), function, number))
         else:
             self._is_over = True

@@ -74,6 +74,10 @@ class Plain:
             raise NotNow("begin")
         return self._run.moment()
 
+    def passed_point(self):
+        """The function and the number of the point that go has come to."""
+        return self._run.last_point()
+
     def outputs(self):
         """The list of the numbers shown so far."""
         return list(self._run.shown)

@@ -79,6 +79,11 @@ class Run:
         self.end_told = ("failed", number, trace)
         return None
 
+    def last_point(self):
+        """The function of the last frame, and the number of the point that it passed last."""
+        frame = self.frames[-1]
+        return frame.course.called, frame.point
+
     def moment(self):
         """The moment, told by what the frames passed last."""
         meeting = Meeting()
